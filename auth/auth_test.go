@@ -1,4 +1,4 @@
-package auth
+package auth_test
 
 import (
 	"math"
@@ -6,6 +6,7 @@ import (
 	"testing"
 
 	"rhizome/api"
+	"rhizome/auth"
 	"rhizome/name"
 	"rhizome/rdata"
 	"rhizome/sets"
@@ -28,6 +29,10 @@ func rr(n string, kind int, data string) api.RR {
 	return api.RR{Name: n, Type: kind, Class: api.IN, TTL: 5, Data: data}
 }
 
+func key(n string, kind int) sets.Key {
+	return sets.Key{Name: n, Type: kind, Class: api.IN}
+}
+
 func made(t *testing.T) *zone.Zone {
 	soa, _ := rdata.PutSoa(rdata.Soa{M: ex, R: ex, Serial: 7})
 	z, e := zone.New(ex,
@@ -42,9 +47,15 @@ func made(t *testing.T) *zone.Zone {
 	return z
 }
 
-func same(a, b Reply) bool {
+func same(a, b auth.Reply) bool {
 	like := func(l, m []sets.Set) bool { return slices.EqualFunc(l, m, sets.Set.Same) }
 	return a.Kind == b.Kind && a.Rcode == b.Rcode && like(a.An, b.An) && like(a.Ns, b.Ns) && like(a.Ar, b.Ar)
+}
+
+func TestKinds(t *testing.T) {
+	if got := [...]int{auth.Yes, auth.Alias, auth.Refer, auth.NoName, auth.NoData, auth.Outside}; got != [...]int{1, 2, 3, 4, 5, 6} {
+		t.Errorf("%v", got)
+	}
 }
 
 func TestAnswer(t *testing.T) { // P11.1
@@ -61,30 +72,30 @@ func TestAnswer(t *testing.T) { // P11.1
 		return l
 	}
 	soa, cut := of(key(ex, api.SOA)), of(key(at("cut"), api.NS))
-	outside := Reply{Kind: Outside, Rcode: api.Refused}
-	below := Reply{Kind: Refer, Ns: cut, Ar: of(key(at("ns", "cut"), api.A), key(at("ns"), api.A), key(at("ns"), api.AAAA))}
-	noName, noData := Reply{Kind: NoName, Rcode: api.NXDomain, Ns: soa}, Reply{Kind: NoData, Ns: soa}
+	outside := auth.Reply{Kind: auth.Outside, Rcode: api.Refused}
+	below := auth.Reply{Kind: auth.Refer, Ns: cut, Ar: of(key(at("ns", "cut"), api.A), key(at("ns"), api.A), key(at("ns"), api.AAAA))}
+	noName, noData := auth.Reply{Kind: auth.NoName, Rcode: api.NXDomain, Ns: soa}, auth.Reply{Kind: auth.NoData, Ns: soa}
 	for i, c := range []struct {
 		n           string
 		kind, class int
-		want        Reply
+		want        auth.Reply
 	}{
-		{ex, api.SOA, 1, Reply{Kind: Yes, An: soa}}, {ex, api.MX, 1, Reply{Kind: Yes, An: of(key(ex, api.MX))}}, {at("ns"), api.A, 1, Reply{Kind: Yes, An: of(key(at("ns"), api.A))}},
-		{ex, api.NS, 1, Reply{Kind: Yes, An: of(key(ex, api.NS)), Ar: of(key(at("b"), api.AAAA), key(at("ns"), api.A), key(at("ns"), api.AAAA))}},
+		{ex, api.SOA, 1, auth.Reply{Kind: auth.Yes, An: soa}}, {ex, api.MX, 1, auth.Reply{Kind: auth.Yes, An: of(key(ex, api.MX))}}, {at("ns"), api.A, 1, auth.Reply{Kind: auth.Yes, An: of(key(at("ns"), api.A))}},
+		{ex, api.NS, 1, auth.Reply{Kind: auth.Yes, An: of(key(ex, api.NS)), Ar: of(key(at("b"), api.AAAA), key(at("ns"), api.A), key(at("ns"), api.AAAA))}},
 		{ex, api.A, 1, noData}, {at("ns"), api.TXT, 1, noData}, {at("er"), api.A, 1, noData}, {at("deep", "er"), api.A, 1, noData}, {at("no"), api.A, 1, noName}, {at("no", "ns"), api.A, 1, noName}, {ex, 0, 1, noData},
-		{at("ns"), -1, 1, noData}, {at("no"), math.MaxInt, 1, noName}, {at("c"), api.A, 1, Reply{Kind: Alias, An: of(key(at("c"), api.CNAME))}}, {at("c"), api.CNAME, 1, Reply{Kind: Yes, An: of(key(at("c"), api.CNAME))}},
-		{at("c"), api.DS, 1, Reply{Kind: Alias, An: of(key(at("c"), api.CNAME))}}, {at("x", "c"), api.A, 1, noName},
+		{at("ns"), -1, 1, noData}, {at("no"), math.MaxInt, 1, noName}, {at("c"), api.A, 1, auth.Reply{Kind: auth.Alias, An: of(key(at("c"), api.CNAME))}}, {at("c"), api.CNAME, 1, auth.Reply{Kind: auth.Yes, An: of(key(at("c"), api.CNAME))}},
+		{at("c"), api.DS, 1, auth.Reply{Kind: auth.Alias, An: of(key(at("c"), api.CNAME))}}, {at("x", "c"), api.A, 1, noName},
 		{at("cut"), api.A, 1, below}, {at("cut"), api.NS, 1, below}, {at("a", "b", "cut"), api.A, 1, below}, {at("ns", "cut"), api.A, 1, below}, {at("al", "cut"), api.A, 1, below}, {at("a", "cut"), api.DS, 1, below},
-		{at("low", "cut"), api.DS, 1, below}, {at("low", "cut"), api.NS, 1, below}, {at("cut"), api.DS, 1, Reply{Kind: Yes, An: of(key(at("cut"), api.DS))}}, {at("lame"), api.DS, 1, noData},
-		{at("lame"), api.A, 1, Reply{Kind: Refer, Ns: of(key(at("lame"), api.NS))}},
+		{at("low", "cut"), api.DS, 1, below}, {at("low", "cut"), api.NS, 1, below}, {at("cut"), api.DS, 1, auth.Reply{Kind: auth.Yes, An: of(key(at("cut"), api.DS))}}, {at("lame"), api.DS, 1, noData},
+		{at("lame"), api.A, 1, auth.Reply{Kind: auth.Refer, Ns: of(key(at("lame"), api.NS))}},
 		{ex, api.SOA, 3, outside}, {ex, api.SOA, 0, outside}, {ex, api.AXFR, 1, outside}, {ex, api.ANY, 1, outside}, {ex, api.OPT, 1, outside}, {at("cut"), api.ANY, 1, outside}, {"\x00", api.SOA, 1, outside},
 		{"\x02ey\x00", api.SOA, 1, outside}, {"", api.SOA, 1, outside}, {"\x02EX\x00", api.SOA, 1, outside}, {"ex", api.SOA, 1, outside},
 	} {
-		if r := Answer(z, api.Question{Name: c.n, Type: c.kind, Class: c.class}); !same(r, c.want) {
+		if r := auth.Answer(z, api.Question{Name: c.n, Type: c.kind, Class: c.class}); !same(r, c.want) {
 			t.Errorf("case %d: %v", i, r)
 		}
 	}
-	if r := Answer(nil, api.Question{Name: ex, Type: 1, Class: 1}); !same(r, outside) {
+	if r := auth.Answer(nil, api.Question{Name: ex, Type: 1, Class: 1}); !same(r, outside) {
 		t.Errorf("%v", r)
 	}
 }
@@ -95,13 +106,14 @@ func TestGlue(t *testing.T) { // P11.2
 	y := sets.Set{Key: sets.Key{Name: "\x01r\x00", Type: api.NS, Class: 9}, Data: []string{at("ns", "cut"), at("b")}}
 	mx := sets.Set{Key: key(ex, api.MX), Data: []string{"\x00\x01" + at("ns")}}
 	var keys []sets.Key
-	for _, s := range Glue(z, mx, y, x) {
+	for _, s := range auth.Glue(z, mx, y, x) {
 		keys = append(keys, s.Key)
 	}
 	if want := []sets.Key{key(at("b"), api.AAAA), key(at("ns", "cut"), api.A), key(at("ns"), api.A), key(at("ns"), api.AAAA)}; !slices.Equal(keys, want) {
 		t.Errorf("%v", keys)
 	}
-	if len(Glue(z)) != 0 || len(Glue(z, mx)) != 0 {
+	alias := sets.Set{Key: key(ex, api.CNAME), Data: []string{at("ns")}}
+	if len(auth.Glue(z)) != 0 || len(auth.Glue(z, mx, alias)) != 0 {
 		t.Error("of none")
 	}
 }
@@ -109,15 +121,15 @@ func TestGlue(t *testing.T) { // P11.2
 func TestMessage(t *testing.T) { // P11.2
 	z := made(t)
 	q := api.Question{Name: ex, Type: api.NS, Class: 1}
-	r := Answer(z, q)
-	r.Ns = Answer(z, api.Question{Name: at("no"), Type: 1, Class: 1}).Ns
-	m := Message(77, q, r)
+	r := auth.Answer(z, q)
+	r.Ns = auth.Answer(z, api.Question{Name: at("no"), Type: 1, Class: 1}).Ns
+	m := auth.Message(77, q, r)
 	want := wire.Message{Header: wire.Header{ID: 77, QR: true, AA: true}, Q: []api.Question{q}, An: sets.Flat(r.An...), Ns: sets.Flat(r.Ns...), Ar: sets.Flat(r.Ar...)}
 	if !wire.Same(m, want) || len(m.An) != 3 || len(m.Ns) != 1 || len(m.Ar) != 3 {
 		t.Errorf("%v", m)
 	}
-	for kind, aa := range map[int]bool{Yes: true, Alias: true, Refer: false, NoName: true, NoData: true, Outside: false} {
-		if m := Message(1, q, Reply{Kind: kind, Rcode: 9}); m.AA != aa || m.Rcode != 9 || !m.QR || m.Opcode != 0 || m.RD || m.RA || m.TC {
+	for kind, aa := range map[int]bool{auth.Yes: true, auth.Alias: true, auth.Refer: false, auth.NoName: true, auth.NoData: true, auth.Outside: false} {
+		if m := auth.Message(1, q, auth.Reply{Kind: kind, Rcode: 9}); m.AA != aa || m.Rcode != 9 || !m.QR || m.Opcode != 0 || m.RD || m.RA || m.TC {
 			t.Errorf("kind %d: %v", kind, m)
 		}
 	}
@@ -129,11 +141,11 @@ func TestNothingIsMadeUp(t *testing.T) { // P11.4
 	for _, labels := range [][]string{nil, {"ns"}, {"b"}, {"c"}, {"er"}, {"cut"}, {"x", "cut"}, {"low", "cut"}, {"lame"}, {"no"}} {
 		for kind := range 260 {
 			q := api.Question{Name: at(labels...), Type: kind, Class: 1}
-			r := Answer(z, q)
-			if r.Kind < Yes || r.Kind > Outside {
+			r := auth.Answer(z, q)
+			if r.Kind < auth.Yes || r.Kind > auth.Outside {
 				t.Fatalf("%v: %v", q, r)
 			}
-			for _, x := range Message(1, q, r).All() {
+			for _, x := range auth.Message(1, q, r).All() {
 				if !slices.Contains(all, x) {
 					t.Fatalf("%v: %v", q, x)
 				}
@@ -145,17 +157,17 @@ func TestNothingIsMadeUp(t *testing.T) { // P11.4
 func TestListsAreNew(t *testing.T) { // P11.3
 	z := made(t)
 	q := api.Question{Name: ex, Type: api.NS, Class: 1}
-	want := Message(1, q, Answer(z, q))
-	r := Answer(z, q)
-	m := Message(1, q, r)
+	want := auth.Message(1, q, auth.Answer(z, q))
+	r := auth.Answer(z, q)
+	m := auth.Message(1, q, r)
 	m.An[0].Data = "!"
 	_ = append(m.An, m.An...)
 	r.An[0].Data[0], r.Ar[0].Data[0] = "!", "!"
-	if !wire.Same(Message(1, q, Answer(z, q)), want) {
+	if !wire.Same(auth.Message(1, q, auth.Answer(z, q)), want) {
 		t.Error("the zone is changed")
 	}
 	s := sets.Set{Key: key(ex, api.NS), Data: []string{at("ns"), at("b")}}
-	Glue(z, s)
+	auth.Glue(z, s)
 	if s.Data[0] != at("ns") {
 		t.Errorf("%v", s)
 	}

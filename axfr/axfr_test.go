@@ -1,4 +1,4 @@
-package axfr
+package axfr_test
 
 import (
 	"math"
@@ -8,6 +8,7 @@ import (
 	"testing"
 
 	"rhizome/api"
+	"rhizome/axfr"
 	"rhizome/frame"
 	"rhizome/rdata"
 	"rhizome/wire"
@@ -59,6 +60,12 @@ func stream(t *testing.T, l ...wire.Message) []byte {
 	return b
 }
 
+func TestStates(t *testing.T) {
+	if got := [...]int{axfr.Going, axfr.Done, axfr.Bad}; got != [...]int{0, 1, 2} {
+		t.Errorf("%v", got)
+	}
+}
+
 func TestTake(t *testing.T) { // P16.1
 	with := func(f func(m *wire.Message), l ...api.RR) wire.Message {
 		m := answer(l...)
@@ -75,28 +82,28 @@ func TestTake(t *testing.T) { // P16.1
 		want int
 		n    int // records of one that is Done
 	}{
-		{nil, Going, 0}, {[]wire.Message{answer(s, a, s)}, Done, 2}, {[]wire.Message{answer(s), answer(a), answer(s)}, Done, 2}, {[]wire.Message{answer(s, s)}, Done, 1}, {[]wire.Message{answer(s, a)}, Going, 0}, {[]wire.Message{answer(s, a, other)}, Done, 2},
-		{[]wire.Message{answer(s), answer(), answer(a, s)}, Done, 2}, {[]wire.Message{answer()}, Bad, 0}, {[]wire.Message{answer(), answer(s, s)}, Bad, 0},
-		{[]wire.Message{with(func(m *wire.Message) { m.QR = false }, s, s)}, Bad, 0}, {[]wire.Message{with(func(m *wire.Message) { m.ID = 8 }, s, s)}, Bad, 0}, {[]wire.Message{with(func(m *wire.Message) { m.Opcode = 1 }, s, s)}, Bad, 0},
-		{[]wire.Message{with(func(m *wire.Message) { m.Rcode = 5 }, s, s)}, Bad, 0}, {[]wire.Message{with(func(m *wire.Message) { m.TC = true }, s, s)}, Bad, 0}, {[]wire.Message{with(func(m *wire.Message) { m.AA = false; m.RA = true; m.RD = true }, s, s)}, Done, 1},
-		{[]wire.Message{with(ask(own), s), with(ask(own), s)}, Done, 1}, {[]wire.Message{with(ask(own, own), s, s)}, Bad, 0}, {[]wire.Message{with(ask(api.Question{Name: ns, Type: api.AXFR, Class: 1}), s, s)}, Bad, 0},
-		{[]wire.Message{with(ask(api.Question{Name: ex, Type: api.SOA, Class: 1}), s, s)}, Bad, 0}, {[]wire.Message{with(ask(api.Question{Name: ex, Type: api.AXFR, Class: 3}), s, s)}, Bad, 0},
-		{[]wire.Message{with(func(m *wire.Message) { m.Ns = []api.RR{a} }, s, s)}, Bad, 0}, {[]wire.Message{with(func(m *wire.Message) { m.Ar = []api.RR{rr("\x00", api.OPT, "")} }, s, s)}, Done, 1},
-		{[]wire.Message{answer(a, s)}, Bad, 0}, {[]wire.Message{answer(rr(ns, api.SOA, s.Data), s)}, Bad, 0}, {[]wire.Message{answer(s, rr("\x02ey\x00", api.A, addr), s)}, Bad, 0}, {[]wire.Message{answer(s, rr("\x00", api.A, addr), s)}, Bad, 0}, {[]wire.Message{answer(s, chaos, s)}, Bad, 0},
-		{[]wire.Message{answer(s, soa(2))}, Bad, 0}, {[]wire.Message{answer(s, rr(ns, api.SOA, s.Data))}, Bad, 0}, {[]wire.Message{answer(s, s, a)}, Bad, 0}, {[]wire.Message{answer(s, s, s)}, Bad, 0}, {[]wire.Message{answer(s, a), answer(s, a)}, Bad, 0},
-		{[]wire.Message{answer(append([]api.RR{s}, full...)...), answer(s)}, Done, 300}, {[]wire.Message{answer(append([]api.RR{s}, full...)...), answer(a, s)}, Bad, 0}, {[]wire.Message{answer(s, a, s), answer(a)}, Done, 2}, {[]wire.Message{answer(s, a, s), answer()}, Done, 2},
+		{nil, axfr.Going, 0}, {[]wire.Message{answer(s, a, s)}, axfr.Done, 2}, {[]wire.Message{answer(s), answer(a), answer(s)}, axfr.Done, 2}, {[]wire.Message{answer(s, s)}, axfr.Done, 1}, {[]wire.Message{answer(s, a)}, axfr.Going, 0}, {[]wire.Message{answer(s, a, other)}, axfr.Done, 2},
+		{[]wire.Message{answer(s), answer(), answer(a, s)}, axfr.Done, 2}, {[]wire.Message{answer()}, axfr.Bad, 0}, {[]wire.Message{answer(), answer(s, s)}, axfr.Bad, 0},
+		{[]wire.Message{with(func(m *wire.Message) { m.QR = false }, s, s)}, axfr.Bad, 0}, {[]wire.Message{with(func(m *wire.Message) { m.ID = 8 }, s, s)}, axfr.Bad, 0}, {[]wire.Message{with(func(m *wire.Message) { m.Opcode = 1 }, s, s)}, axfr.Bad, 0},
+		{[]wire.Message{with(func(m *wire.Message) { m.Rcode = 5 }, s, s)}, axfr.Bad, 0}, {[]wire.Message{with(func(m *wire.Message) { m.TC = true }, s, s)}, axfr.Bad, 0}, {[]wire.Message{with(func(m *wire.Message) { m.AA = false; m.RA = true; m.RD = true }, s, s)}, axfr.Done, 1},
+		{[]wire.Message{with(ask(own), s), with(ask(own), s)}, axfr.Done, 1}, {[]wire.Message{with(ask(own, own), s, s)}, axfr.Bad, 0}, {[]wire.Message{with(ask(api.Question{Name: ns, Type: api.AXFR, Class: 1}), s, s)}, axfr.Bad, 0},
+		{[]wire.Message{with(ask(api.Question{Name: ex, Type: api.SOA, Class: 1}), s, s)}, axfr.Bad, 0}, {[]wire.Message{with(ask(api.Question{Name: ex, Type: api.AXFR, Class: 3}), s, s)}, axfr.Bad, 0},
+		{[]wire.Message{with(func(m *wire.Message) { m.Ns = []api.RR{a} }, s, s)}, axfr.Bad, 0}, {[]wire.Message{with(func(m *wire.Message) { m.Ar = []api.RR{rr("\x00", api.OPT, "")} }, s, s)}, axfr.Done, 1},
+		{[]wire.Message{answer(a, s)}, axfr.Bad, 0}, {[]wire.Message{answer(rr(ex, api.NS, ns), s)}, axfr.Bad, 0}, {[]wire.Message{answer(rr(ns, api.SOA, s.Data), s)}, axfr.Bad, 0}, {[]wire.Message{answer(s, rr("\x02ey\x00", api.A, addr), s)}, axfr.Bad, 0}, {[]wire.Message{answer(s, rr("\x00", api.A, addr), s)}, axfr.Bad, 0}, {[]wire.Message{answer(s, chaos, s)}, axfr.Bad, 0},
+		{[]wire.Message{answer(s, soa(2))}, axfr.Bad, 0}, {[]wire.Message{answer(s, rr(ns, api.SOA, s.Data))}, axfr.Bad, 0}, {[]wire.Message{answer(s, s, a)}, axfr.Bad, 0}, {[]wire.Message{answer(s, s, s)}, axfr.Bad, 0}, {[]wire.Message{answer(s, a), answer(s, a)}, axfr.Bad, 0},
+		{[]wire.Message{answer(append([]api.RR{s}, full...)...), answer(s)}, axfr.Done, 300}, {[]wire.Message{answer(append([]api.RR{s}, full...)...), answer(a, s)}, axfr.Bad, 0}, {[]wire.Message{answer(s, a, s), answer(a)}, axfr.Done, 2}, {[]wire.Message{answer(s, a, s), answer()}, axfr.Done, 2},
 	} {
-		r := New(7, ex, api.MaxXfer)
-		if r.State() != Going {
+		r := axfr.New(7, ex, api.MaxXfer)
+		if r.State() != axfr.Going {
 			t.Errorf("case %d: not Going", i)
 		}
 		b := stream(t, c.l...)
 		if got := r.Take(b[:len(b)/2], nil, b[len(b)/2:]); got != c.want || r.State() != c.want || len(r.Records()) != c.n {
 			t.Errorf("case %d: %d, %d records", i, got, len(r.Records()))
 		}
-		if r.State() != Going {
+		if r.State() != axfr.Going {
 			left := r.Left()
-			if r.Take(stream(t, answer(s, a, a, a, s))) != c.want || len(r.Records()) != c.n || r.Left() != left {
+			if r.Take(append(stream(t, answer(s, a, a, a, s)), 0)) != c.want || len(r.Records()) != c.n || r.Left() != left {
 				t.Errorf("case %d: it goes on", i)
 			}
 		}
@@ -108,40 +115,40 @@ func TestTakeOfOtherBytes(t *testing.T) { // P16.1
 	for i, c := range []struct {
 		b    string
 		want int
-	}{{"", Going}, {"\x00", Going}, {"\x00\x00", Bad}, {"\x00\x01", Going}, {"\x00\x01x", Bad}, {"\x00\x0c" + strings.Repeat("\x00", 12), Bad}, {"\xff\xff", Going}} {
-		if got := New(7, ex, 99).Take([]byte(c.b)); got != c.want {
+	}{{"", axfr.Going}, {"\x00", axfr.Going}, {"\x00\x00", axfr.Bad}, {"\x00\x01", axfr.Going}, {"\x00\x01x", axfr.Bad}, {"\x00\x0c" + strings.Repeat("\x00", 12), axfr.Bad}, {"\xff\xff", axfr.Going}} {
+		if got := axfr.New(7, ex, 99).Take([]byte(c.b)); got != c.want {
 			t.Errorf("case %d: %d", i, got)
 		}
 	}
 	b := stream(t, answer(s, a), answer(s))
-	for most, want := range map[int]int{len(b): Done, len(b) - 1: Bad, 0: Bad, -1: Bad} {
-		r := New(7, ex, most)
+	for most, want := range map[int]int{len(b): axfr.Done, len(b) - 1: axfr.Bad, 0: axfr.Bad, -1: axfr.Bad} {
+		r := axfr.New(7, ex, most)
 		if got := r.Take(b); got != want || r.Left() != 0 {
 			t.Errorf("most %d: %d", most, got)
 		}
 	}
-	if New(7, ex, -1).Take() != Bad || New(7, ex, 0).Take() != Going {
+	if axfr.New(7, ex, -1).Take() != axfr.Bad || axfr.New(7, ex, 0).Take() != axfr.Going {
 		t.Error("Take of nothing")
 	}
 	for _, apex := range []string{"", "ex", "\x02EX\x00"} {
-		if r := New(7, apex, 99); r.State() != Bad || r.Take(b) != Bad || r.Left() != 0 || len(r.Records()) != 0 {
+		if r := axfr.New(7, apex, 99); r.State() != axfr.Bad || r.Take(b) != axfr.Bad || r.Left() != 0 || len(r.Records()) != 0 {
 			t.Errorf("%q", apex)
 		}
 	}
 	for _, id := range []int{-1, 65536 + 7, math.MaxInt} {
-		if New(id, ex, 999).Take(b) != Bad {
+		if axfr.New(id, ex, 999).Take(b) != axfr.Bad {
 			t.Errorf("ID %d", id)
 		}
 	}
-	r := New(7, ex, 999)
-	if r.Take(b[:9]) != Going || r.Left() != 9 {
+	r := axfr.New(7, ex, 999)
+	if r.Take(b[:9]) != axfr.Going || r.Left() != 9 {
 		t.Errorf("%d", r.Left())
 	}
 }
 
 func TestMake(t *testing.T) { // P16.2
 	s := soa(1)
-	b, e := Make(7, ex, 2, a, rr(ns, api.TXT, "\x00"), s, rr(ex, api.NS, ns))
+	b, e := axfr.Make(7, ex, 2, a, rr(ns, api.TXT, "\x00"), s, rr(ex, api.NS, ns))
 	first := answer(s, a)
 	first.Q = []api.Question{{Name: ex, Type: api.AXFR, Class: 1}}
 	if want := stream(t, first, answer(rr(ns, api.TXT, "\x00"), rr(ex, api.NS, ns)), answer(s)); string(b) != string(want) || e != api.OK {
@@ -159,7 +166,7 @@ func TestMake(t *testing.T) { // P16.2
 		{-1, ex, 1, []api.RR{s}, api.ErrForm}, {65536, ex, 1, []api.RR{s}, api.ErrForm}, {65535, ex, 1, []api.RR{s}, api.OK}, {7, "x", 1, []api.RR{s}, api.ErrForm}, {7, ex, 1, []api.RR{s, rr(ns, api.A, "123")}, api.ErrForm}, {7, "\x00", 1, []api.RR{s}, api.OK},
 		{7, ex, 20, append([]api.RR{s}, slices.Repeat([]api.RR{rr(ns, 300, strings.Repeat("d", 1000))}, 20)...), api.ErrLong},
 	} {
-		if b, e := Make(c.id, c.apex, c.each, c.l...); e != c.e || (len(b) > 0) != (e == api.OK) {
+		if b, e := axfr.Make(c.id, c.apex, c.each, c.l...); e != c.e || (len(b) > 0) != (e == api.OK) {
 			t.Errorf("case %d: %d bytes, %d", i, len(b), e)
 		}
 	}
@@ -169,13 +176,13 @@ func TestWhatIsMadeIsTaken(t *testing.T) { // P16.4
 	rnd := rand.New(rand.NewSource(16))
 	for range 200 {
 		l := append([]api.RR{soa(rnd.Intn(9))}, many(rnd.Intn(40))...)
-		b, e := Make(9, ex, 1+rnd.Intn(50), l...)
+		b, e := axfr.Make(9, ex, 1+rnd.Intn(50), l...)
 		if e != api.OK {
 			t.Fatal(e)
 		}
-		r := New(9, ex, len(b))
+		r := axfr.New(9, ex, len(b))
 		for rest := b; len(rest) > 0; {
-			if r.State() != Going || len(r.Records()) != 0 {
+			if r.State() != axfr.Going || len(r.Records()) != 0 {
 				t.Fatal("not Going")
 			}
 			n := 1 + rnd.Intn(len(rest))
@@ -183,7 +190,7 @@ func TestWhatIsMadeIsTaken(t *testing.T) { // P16.4
 			r.Take(rest[:m], rest[m:n])
 			rest = rest[n:]
 		}
-		if r.State() != Done || !slices.Equal(r.Records(), l) || r.Left() != 0 {
+		if r.State() != axfr.Done || !slices.Equal(r.Records(), l) || r.Left() != 0 {
 			t.Fatalf("%d", r.State())
 		}
 	}
@@ -192,11 +199,11 @@ func TestWhatIsMadeIsTaken(t *testing.T) { // P16.4
 func TestListsAreNew(t *testing.T) { // P16.3
 	l := append(make([]api.RR, 0, 9), a, soa(1), a)
 	before := slices.Clone(l[:9])
-	b, _ := Make(7, ex, 9, l...)
+	b, _ := axfr.Make(7, ex, 9, l...)
 	if !slices.Equal(l[:9], before) {
 		t.Errorf("%v", l[:9])
 	}
-	r := New(7, ex, 9999)
+	r := axfr.New(7, ex, 9999)
 	r.Take(b)
 	for i := range b {
 		b[i] = 0

@@ -1,4 +1,4 @@
-package cache
+package cache_test
 
 import (
 	"math"
@@ -7,6 +7,7 @@ import (
 	"testing"
 
 	"rhizome/api"
+	"rhizome/cache"
 	"rhizome/sets"
 )
 
@@ -18,8 +19,8 @@ const (
 	root = "\x00"
 )
 
-func made(t *testing.T, most int) *Cache {
-	k, e := New(most)
+func made(t *testing.T, most int) *cache.Cache {
+	k, e := cache.New(most)
 	if e != api.OK {
 		t.Fatal(e)
 	}
@@ -36,7 +37,7 @@ func set(n string, ttl int, last byte) sets.Set {
 func ns(n string) sets.Set { return sets.Set{Key: key(n, api.NS), TTL: 9, Data: []string{a}} }
 
 // told tells the last byte of the address, and the TTL: -1, if there is none.
-func told(k *Cache, now int, n string) (int, int) {
+func told(k *cache.Cache, now int, n string) (int, int) {
 	e, ok := k.Peek(now, key(n, api.A))
 	if !ok {
 		return -1, -1
@@ -44,7 +45,7 @@ func told(k *Cache, now int, n string) (int, int) {
 	return int(e.Data[0][3]), e.TTL
 }
 
-func names(k *Cache) string {
+func names(k *cache.Cache) string {
 	s := ""
 	for _, e := range k.Entries() {
 		s += e.Name[1:2]
@@ -52,9 +53,15 @@ func names(k *Cache) string {
 	return s
 }
 
+func TestRankNumbers(t *testing.T) {
+	if got := [...]int{cache.Glue, cache.Referral, cache.Plain, cache.Auth}; got != [...]int{1, 2, 3, 4} {
+		t.Errorf("%v", got)
+	}
+}
+
 func TestNew(t *testing.T) { // P18.1
 	for most, want := range map[int]api.Errno{1: api.OK, 2000: api.OK, 0: api.ErrRange, -1: api.ErrRange, 2001: api.ErrRange, math.MaxInt: api.ErrRange, math.MinInt: api.ErrRange} {
-		k, e := New(most)
+		k, e := cache.New(most)
 		if e != want || (k == nil) != (e != api.OK) || k != nil && (k.Len() != 0 || len(k.Entries()) != 0) {
 			t.Errorf("%d: %d", most, e)
 		}
@@ -65,7 +72,7 @@ func TestPut(t *testing.T) { // P18.2
 	k := made(t, 9)
 	wrong := set(a, 5, 1)
 	wrong.Data = nil
-	if n := k.Put(10, Plain, set(a, 5, 1), wrong, set("x", 5, 1), set(b, 7, 2), sets.Set{}, set(a, 6, 3)); n != 3 || k.Len() != 2 {
+	if n := k.Put(10, cache.Plain, set(a, 5, 1), wrong, set("x", 5, 1), set(b, 7, 2), sets.Set{}, set(a, 6, 3)); n != 3 || k.Len() != 2 {
 		t.Errorf("%d, %d", n, k.Len())
 	}
 	if d, ttl := told(k, 10, a); d != 3 || ttl != 6 {
@@ -77,19 +84,19 @@ func TestPut(t *testing.T) { // P18.2
 		}
 	}
 	l := k.Entries()
-	want := []Entry{{set(a, 6, 3), Plain, 16, 3}, {set(b, 7, 2), Plain, 17, 2}}
+	want := []cache.Entry{{set(a, 6, 3), cache.Plain, 16, 3}, {set(b, 7, 2), cache.Plain, 17, 2}}
 	if !slices.EqualFunc(l, want, sameEntry) {
 		t.Errorf("%v", l)
 	}
 }
 
-func sameEntry(x, y Entry) bool {
+func sameEntry(x, y cache.Entry) bool {
 	return x.Set.Same(y.Set) && x.Rank == y.Rank && x.Until == y.Until && x.Used == y.Used
 }
 
 func TestRanks(t *testing.T) { // P18.2, P18.6
-	for old := Glue; old <= Auth; old++ {
-		for rank := Glue; rank <= Auth; rank++ {
+	for old := cache.Glue; old <= cache.Auth; old++ {
+		for rank := cache.Glue; rank <= cache.Auth; rank++ {
 			k := made(t, 9)
 			k.Put(0, old, set(a, 10, 1))
 			laid := k.Put(9, rank, set(a, 10, 2)) == 1
@@ -97,7 +104,7 @@ func TestRanks(t *testing.T) { // P18.2, P18.6
 			if laid != (rank >= old) || laid != (d == 2) {
 				t.Errorf("%d behind %d: %d", rank, old, d)
 			}
-			if n := k.Put(10, Glue, set(a, 10, 3)); (n == 1) != (!laid || rank == Glue) {
+			if n := k.Put(10, cache.Glue, set(a, 10, 3)); (n == 1) != (!laid || rank == cache.Glue) {
 				t.Errorf("%d behind %d, past its time: %d", rank, old, n)
 			}
 			k = made(t, 9)
@@ -107,13 +114,13 @@ func TestRanks(t *testing.T) { // P18.2, P18.6
 			}
 			k = made(t, 9)
 			k.Put(0, old, set(a, 10, 1))
-			if k.No(9, rank, 5, key(a, api.A)) != (rank >= old) || !k.No(10, Glue, 5, key(b, api.A)) {
+			if k.No(9, rank, 5, key(a, api.A)) != (rank >= old) || !k.No(10, cache.Glue, 5, key(b, api.A)) {
 				t.Errorf("No of %d behind %d", rank, old)
 			}
 		}
 	}
 	k := made(t, 9)
-	if k.Put(0, Auth, set(a, 10, 1)); k.Put(5, Glue, set(a, 10, 2)) != 0 {
+	if k.Put(0, cache.Auth, set(a, 10, 1)); k.Put(5, cache.Glue, set(a, 10, 2)) != 0 {
 		t.Error("the example")
 	}
 	if d, ttl := told(k, 5, a); d != 1 || ttl != 5 {
@@ -127,7 +134,7 @@ func TestRanks(t *testing.T) { // P18.2, P18.6
 func TestTimes(t *testing.T) { // P18.2, P18.3, P18.6
 	for ttl, until := range map[int]int{0: 1, 1: 1, 604800: 604800, 604801: 604800, 1<<31 - 1: 604800} {
 		k := made(t, 9)
-		k.Put(100, Auth, set(a, ttl, 1))
+		k.Put(100, cache.Auth, set(a, ttl, 1))
 		if _, left := told(k, 100, a); left != until {
 			t.Errorf("%d: %d", ttl, left)
 		}
@@ -143,13 +150,13 @@ func TestTimes(t *testing.T) { // P18.2, P18.3, P18.6
 	}
 	for ttl, until := range map[int]int{1: 1, 10800: 10800, 10801: 10800, math.MaxInt: 10800} {
 		k := made(t, 9)
-		if !k.No(100, Auth, ttl, key(a, api.A)) || k.Absent(100+until-1, key(a, api.A)) != 2 || k.Absent(100+until, key(a, api.A)) != 0 {
+		if !k.No(100, cache.Auth, ttl, key(a, api.A)) || k.Absent(100+until-1, key(a, api.A)) != 2 || k.Absent(100+until, key(a, api.A)) != 0 {
 			t.Errorf("No of %d", ttl)
 		}
 	}
 	k := made(t, 9)
-	k.Put(api.MaxTime, Auth, set(a, 9, 1), ns(root))
-	k.No(api.MaxTime, Auth, 9, key(b, 0))
+	k.Put(api.MaxTime, cache.Auth, set(a, 9, 1), ns(root))
+	k.No(api.MaxTime, cache.Auth, 9, key(b, 0))
 	for _, now := range []int{-1, api.MaxTime + 1, math.MinInt, math.MaxInt} {
 		_, got := k.Get(now, key(a, api.A))
 		_, peeked := k.Peek(now, key(a, api.A))
@@ -176,8 +183,8 @@ func TestNo(t *testing.T) { // P18.2, P18.3
 			t.Errorf("case %d", i)
 		}
 	}
-	k.Put(0, Plain, set(a, 50, 1), set(c, 50, 1))
-	if !k.No(0, Plain, 5, key(a, api.A)) || !k.No(0, Plain, 5, key(b, 0)) || !k.No(1, Auth, 9, sets.Key{Name: c, Type: 7, Class: 3}) {
+	k.Put(0, cache.Plain, set(a, 50, 1), set(c, 50, 1))
+	if !k.No(0, cache.Plain, 5, key(a, api.A)) || !k.No(0, cache.Plain, 5, key(b, 0)) || !k.No(1, cache.Auth, 9, sets.Key{Name: c, Type: 7, Class: 3}) {
 		t.Error("No")
 	}
 	if d, _ := told(k, 0, a); d != -1 {
@@ -200,10 +207,10 @@ func TestNo(t *testing.T) { // P18.2, P18.3
 		t.Error("past its time")
 	}
 	e := k.Entries()[0]
-	if !sameEntry(e, Entry{Set: sets.Set{Key: key(a, api.A)}, Rank: Plain, Until: 5, Used: 3}) || !e.Negative() || (Entry{Set: set(a, 1, 1)}).Negative() {
+	if !sameEntry(e, cache.Entry{Set: sets.Set{Key: key(a, api.A)}, Rank: cache.Plain, Until: 5, Used: 3}) || !e.Negative() || (cache.Entry{Set: set(a, 1, 1)}).Negative() {
 		t.Errorf("%v", e)
 	}
-	k.No(0, Auth, 50, key(b, api.A))
+	k.No(0, cache.Auth, 50, key(b, api.A))
 	if k.Absent(0, key(b, api.A)) != 1 || k.Absent(20, key(b, api.A)) != 2 {
 		t.Error("both")
 	}
@@ -211,19 +218,19 @@ func TestNo(t *testing.T) { // P18.2, P18.3
 
 func TestPutOverNothing(t *testing.T) { // P18.2
 	k := made(t, 9)
-	k.No(0, Auth, 99, key(a, 0))
-	k.No(0, Auth, 99, sets.Key{Name: a, Class: 3})
-	k.No(0, Auth, 99, key(a, api.NS))
-	if k.Put(0, Glue, sets.Set{Key: key(a, 300), TTL: 5, Data: []string{""}}) != 1 || k.Absent(0, key(a, api.A)) != 0 || k.Absent(0, key(a, api.NS)) != 2 || k.Absent(0, sets.Key{Name: a, Type: 1, Class: 3}) != 1 {
+	k.No(0, cache.Auth, 99, key(a, 0))
+	k.No(0, cache.Auth, 99, sets.Key{Name: a, Class: 3})
+	k.No(0, cache.Auth, 99, key(a, api.NS))
+	if k.Put(0, cache.Glue, sets.Set{Key: key(a, 300), TTL: 5, Data: []string{""}}) != 1 || k.Absent(0, key(a, api.A)) != 0 || k.Absent(0, key(a, api.NS)) != 2 || k.Absent(0, sets.Key{Name: a, Type: 1, Class: 3}) != 1 {
 		t.Errorf("%v", k.Entries())
 	}
-	k.No(0, Auth, 99, key(b, 0))
-	k.No(0, Auth, 99, key(b, api.A))
-	if k.Put(0, Plain, set(b, 5, 1)) != 0 || k.Absent(0, key(b, 7)) != 1 {
+	k.No(0, cache.Auth, 99, key(b, 0))
+	k.No(0, cache.Auth, 99, key(b, api.A))
+	if k.Put(0, cache.Plain, set(b, 5, 1)) != 0 || k.Absent(0, key(b, 7)) != 1 {
 		t.Error("one that is passed over counts")
 	}
 	zero := sets.Set{Key: key(c, 0), TTL: 5, Data: []string{"z"}}
-	if k.Put(0, Glue, zero, set(c, 5, 1)) != 2 {
+	if k.Put(0, cache.Glue, zero, set(c, 5, 1)) != 2 {
 		t.Error("Type 0")
 	}
 	if e, ok := k.Peek(0, key(c, 0)); !ok || !e.Has("z") {
@@ -233,23 +240,23 @@ func TestPutOverNothing(t *testing.T) { // P18.2
 
 func TestUses(t *testing.T) { // P18.3
 	k := made(t, 9)
-	k.Put(0, Plain, set(a, 50, 1), set(b, 50, 2))
-	if e, ok := k.Get(20, key(a, api.A)); !ok || !sameEntry(e, Entry{set(a, 30, 1), Plain, 50, 3}) {
+	k.Put(0, cache.Plain, set(a, 50, 1), set(b, 50, 2))
+	if e, ok := k.Get(20, key(a, api.A)); !ok || !sameEntry(e, cache.Entry{set(a, 30, 1), cache.Plain, 50, 3}) {
 		t.Errorf("%v", e)
 	}
-	if e, ok := k.Peek(20, key(b, api.A)); !ok || !sameEntry(e, Entry{set(b, 30, 2), Plain, 50, 2}) {
+	if e, ok := k.Peek(20, key(b, api.A)); !ok || !sameEntry(e, cache.Entry{set(b, 30, 2), cache.Plain, 50, 2}) {
 		t.Errorf("%v", e)
 	}
 	k.Get(20, key(c, api.A))
 	k.Absent(20, key(a, api.A))
-	k.Put(0, Glue, set(a, 50, 9))
+	k.Put(0, cache.Glue, set(a, 50, 9))
 	if e, _ := k.Get(20, key(b, api.A)); e.Used != 4 {
 		t.Errorf("%v", e)
 	}
-	if e, ok := k.Get(20, key(c, api.A)); ok || !sameEntry(e, Entry{}) {
+	if e, ok := k.Get(20, key(c, api.A)); ok || !sameEntry(e, cache.Entry{}) {
 		t.Errorf("%v", e)
 	}
-	if e, ok := k.Peek(20, key(c, api.A)); ok || !sameEntry(e, Entry{}) {
+	if e, ok := k.Peek(20, key(c, api.A)); ok || !sameEntry(e, cache.Entry{}) {
 		t.Errorf("%v", e)
 	}
 	if l := k.Entries(); l[0].TTL != 50 || l[0].Used != 3 || l[1].Used != 4 {
@@ -259,46 +266,52 @@ func TestUses(t *testing.T) { // P18.3
 
 func TestRoom(t *testing.T) { // P18.2, P18.6
 	k := made(t, 2)
-	k.Put(0, Auth, set(a, 50, 1), set(b, 50, 1))
+	k.Put(0, cache.Auth, set(a, 50, 1), set(b, 50, 1))
 	k.Get(0, key(a, api.A))
-	k.Put(0, Glue, set(c, 50, 1))
+	k.Put(0, cache.Glue, set(c, 50, 1))
 	if names(k) != "ac" {
 		t.Errorf("the eldest goes: %s", names(k))
 	}
 	k.Peek(0, key(a, api.A))
-	k.No(0, Glue, 5, key(b, 7))
+	k.No(0, cache.Glue, 5, key(b, 7))
 	if names(k) != "bc" {
 		t.Errorf("Peek is no use: %s", names(k))
 	}
-	k.Put(5, Glue, set(a, 50, 1))
+	k.Put(5, cache.Glue, set(a, 50, 1))
 	if names(k) != "ac" {
 		t.Errorf("what does not count goes ahead: %s", names(k))
 	}
-	k.Put(6, Glue, set(a, 60, 1), set(c, 60, 1))
+	k.Put(6, cache.Glue, set(a, 60, 1), set(c, 60, 1))
 	if k.Len() != 2 {
 		t.Errorf("one that is there takes no room: %s", names(k))
 	}
 	k = made(t, 3)
-	k.Put(0, Auth, set(a, 5, 1), set(b, 5, 1), set(c, 50, 1))
-	k.Put(5, Auth, set(ba, 50, 1))
+	k.Put(0, cache.Auth, set(a, 5, 1), set(b, 5, 1), set(c, 50, 1))
+	k.Put(5, cache.Auth, set(ba, 50, 1))
 	if names(k) != "bc" || k.Len() != 2 {
 		t.Errorf("all that do not count go: %s", names(k))
 	}
 	k = made(t, 3)
-	k.Put(0, Auth, set(a, 50, 1), set(b, 50, 1))
-	k.No(0, Auth, 50, key(c, 0))
-	k.Put(0, Auth, set(c, 50, 1))
+	k.Put(0, cache.Auth, set(a, 50, 1), set(b, 50, 1))
+	k.No(0, cache.Auth, 50, key(c, 0))
+	k.Put(0, cache.Auth, set(c, 50, 1))
 	if names(k) != "abc" {
 		t.Errorf("what Put says is gone goes ahead: %s", names(k))
 	}
+	k = made(t, 2)
+	k.Put(0, cache.Auth, set(a, 5, 1))
+	k.Put(5, cache.Auth, set(b, 50, 1))
+	if names(k) != "ab" {
+		t.Errorf("while there is room nothing goes: %s", names(k))
+	}
 	k = made(t, 1)
-	k.Put(0, Auth, set(a, 50, 1), set(b, 50, 1))
+	k.Put(0, cache.Auth, set(a, 50, 1), set(b, 50, 1))
 	if names(k) != "b" {
 		t.Errorf("the one that is laid stays: %s", names(k))
 	}
 	k = made(t, 2)
-	k.Put(0, Auth, set(a, 5, 1), set(b, 50, 1))
-	k.Put(20, Auth, set(a, 5, 2))
+	k.Put(0, cache.Auth, set(a, 5, 1), set(b, 50, 1))
+	k.Put(20, cache.Auth, set(a, 5, 2))
 	if names(k) != "ab" {
 		t.Errorf("%s", names(k))
 	}
@@ -306,8 +319,8 @@ func TestRoom(t *testing.T) { // P18.2, P18.6
 
 func TestCut(t *testing.T) { // P18.3
 	k := made(t, 9)
-	k.Put(0, Glue, ns(a), ns(ba), ns(root), set(c, 9, 1), sets.Set{Key: sets.Key{Name: b, Type: api.NS, Class: 3}, TTL: 9, Data: []string{a}})
-	k.No(0, Auth, 9, key(c, api.NS))
+	k.Put(0, cache.Glue, ns(a), ns(ba), ns(root), set(c, 9, 1), sets.Set{Key: sets.Key{Name: b, Type: api.NS, Class: 3}, TTL: 9, Data: []string{a}})
+	k.No(0, cache.Auth, 9, key(c, api.NS))
 	deep := "\x01x\x01b\x01a\x00"
 	for i, w := range []struct {
 		n     string
@@ -317,7 +330,7 @@ func TestCut(t *testing.T) { // P18.3
 		{a, false, a}, {a, true, root}, {ba, false, ba}, {ba, true, a}, {deep, false, ba}, {deep, true, ba}, {b, false, root}, {c, false, root}, {root, false, root}, {root, true, ""}, {"", false, ""}, {"x", true, ""}, {"\x01A\x00", false, ""}, {"\x01c\x01a\x00", false, a},
 	} {
 		e, ok := k.Cut(3, w.n, w.above)
-		if ok != (w.want != "") || e.Name != w.want || ok && (!e.Is(api.NS) || e.TTL != 6) || !ok && !sameEntry(e, Entry{}) {
+		if ok != (w.want != "") || e.Name != w.want || ok && (!e.Is(api.NS) || e.TTL != 6) || !ok && !sameEntry(e, cache.Entry{}) {
 			t.Errorf("case %d: %v", i, e)
 		}
 	}
@@ -371,7 +384,7 @@ func TestEntriesRise(t *testing.T) { // P18.4, P18.6
 func TestListsAreNew(t *testing.T) { // P18.5
 	k := made(t, 9)
 	s := set(a, 9, 1)
-	k.Put(0, Auth, s, ns(root))
+	k.Put(0, cache.Auth, s, ns(root))
 	s.Data[0] = "!"
 	g, _ := k.Get(0, key(a, api.A))
 	p, _ := k.Peek(0, key(a, api.A))

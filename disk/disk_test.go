@@ -1,4 +1,4 @@
-package disk
+package disk_test
 
 import (
 	"bytes"
@@ -9,10 +9,11 @@ import (
 	"testing"
 
 	"rhizome/api"
+	"rhizome/disk"
 )
 
-func made(t *testing.T, n int) *Disk {
-	d, e := New(n)
+func made(t *testing.T, n int) *disk.Disk {
+	d, e := disk.New(n)
 	if e != api.OK {
 		t.Fatal(e)
 	}
@@ -20,7 +21,7 @@ func made(t *testing.T, n int) *Disk {
 }
 
 // first tells the first byte of each sector.
-func first(t *testing.T, d *Disk) string {
+func first(t *testing.T, d *disk.Disk) string {
 	var s strings.Builder
 	for k := range d.Sectors() {
 		b, e := d.Read(k)
@@ -48,7 +49,7 @@ func TestNew(t *testing.T) { // P13.1
 		}
 	}
 	for _, n := range []int{2, 0, -1, 2049, math.MaxInt, math.MinInt} {
-		if d, e := New(n); d != nil || e != api.ErrRange {
+		if d, e := disk.New(n); d != nil || e != api.ErrRange {
 			t.Errorf("%d: %d", n, e)
 		}
 	}
@@ -164,6 +165,13 @@ func TestCrashLeavesWhatTheMaskNames(t *testing.T) { // P13.3
 	if first(t, d) != "a\x00\x00\x00\x00\x00\x00h\x00j\x00l" {
 		t.Errorf("%q", first(t, d))
 	}
+	d = made(t, 12)
+	d.Write(0, full("abcdefghijkl"))
+	d.Crash(0xc0)
+	d.Reboot()
+	if first(t, d) != "\x00\x00\x00\x00\x00\x00gh\x00\x00\x00\x00" {
+		t.Errorf("where the mask lacks: %q", first(t, d))
+	}
 }
 
 func TestCrashAt(t *testing.T) { // P13.3, P13.4
@@ -265,6 +273,21 @@ func TestCopy(t *testing.T) { // P13.4
 	c.Reboot()
 	if first(t, c) != "bc\x00" || first(t, d) != "b\x00!" || !d.Up() {
 		t.Errorf("%q, %q", first(t, c), first(t, d))
+	}
+	// What is pending, and the mask of a plan, are no longer shared.
+	d.Crash()
+	d.Reboot()
+	d.Write(0, []byte("1"))
+	d.Write(1, []byte("1"))
+	one, two := d.Copy(), d.Copy()
+	one.Write(0, []byte("2"))
+	two.Write(1, []byte("3"))
+	for _, x := range []*disk.Disk{d, one, two} {
+		x.Crash(7)
+		x.Reboot()
+	}
+	if first(t, d)[:2] != "11" || first(t, one)[:2] != "21" || first(t, two)[:2] != "13" {
+		t.Errorf("%q, %q, %q", first(t, d), first(t, one), first(t, two))
 	}
 	c.Crash()
 	if c.Copy().Up() {

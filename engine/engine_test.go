@@ -1,4 +1,4 @@
-package engine
+package engine_test
 
 import (
 	"math"
@@ -10,6 +10,7 @@ import (
 	"rhizome/api"
 	"rhizome/auth"
 	"rhizome/cache"
+	"rhizome/engine"
 	"rhizome/name"
 	"rhizome/rdata"
 	"rhizome/sets"
@@ -24,6 +25,12 @@ func n(text string) string {
 		panic(text)
 	}
 	return s
+}
+
+const root = "\x00"
+
+func key(n string, kind int) sets.Key {
+	return sets.Key{Name: n, Type: kind, Class: api.IN}
 }
 
 func h(i int) string { return string([]byte{192, 0, 2, byte(i)}) }
@@ -53,8 +60,8 @@ func made(t *testing.T, apex string, l ...api.RR) *zone.Zone {
 
 func hints(l ...api.RR) []sets.Set { return sets.Group(l...) }
 
-func begun(t *testing.T, l ...sets.Set) *Engine {
-	e, bad := New(5, 100, l...)
+func begun(t *testing.T, l ...sets.Set) *engine.Engine {
+	e, bad := engine.New(5, 100, l...)
 	if bad != api.OK {
 		t.Fatal(bad)
 	}
@@ -65,7 +72,7 @@ func ask(text string, kind int) api.Question {
 	return api.Question{Name: n(text), Type: kind, Class: api.IN}
 }
 
-func started(t *testing.T, e *Engine, now int, q api.Question) int {
+func started(t *testing.T, e *engine.Engine, now int, q api.Question) int {
 	id, bad := e.Start(now, q)
 	if bad != api.OK {
 		t.Fatal(bad)
@@ -74,7 +81,7 @@ func started(t *testing.T, e *Engine, now int, q api.Question) int {
 }
 
 // question reads an Out.
-func question(t *testing.T, o Out) (int, api.Question) {
+func question(t *testing.T, o engine.Out) (int, api.Question) {
 	m, bad := wire.Decode(o.Bytes)
 	if bad != api.OK || m.QR || m.RD || m.Opcode != 0 || len(m.Q) != 1 || len(m.All()) != 0 {
 		t.Fatalf("%v, %d", m, bad)
@@ -82,13 +89,13 @@ func question(t *testing.T, o Out) (int, api.Question) {
 	return m.ID, m.Q[0]
 }
 
-func mark(t *testing.T, o Out) table.Mark {
+func mark(t *testing.T, o engine.Out) table.Mark {
 	id, _ := question(t, o)
 	return table.Mark{ID: id, Port: o.Port, To: o.To, TCP: o.TCP}
 }
 
 // reply hands an answer in.
-func reply(t *testing.T, e *Engine, now int, o Out, f func(m *wire.Message)) bool {
+func reply(t *testing.T, e *engine.Engine, now int, o engine.Out, f func(m *wire.Message)) bool {
 	id, q := question(t, o)
 	m := wire.Ask(id, q)
 	m.QR, m.AA = true, true
@@ -104,7 +111,7 @@ func reply(t *testing.T, e *Engine, now int, o Out, f func(m *wire.Message)) boo
 type servers map[string]*zone.Zone
 
 // answer lets the server of an Out answer, if there is one.
-func (s servers) answer(t *testing.T, e *Engine, now int, o Out) {
+func (s servers) answer(t *testing.T, e *engine.Engine, now int, o engine.Out) {
 	z, ok := s[o.To]
 	if !ok {
 		return
@@ -117,7 +124,7 @@ func (s servers) answer(t *testing.T, e *Engine, now int, o Out) {
 }
 
 // run answers whatever goes out, and tells whom it went to.
-func (s servers) run(t *testing.T, e *Engine, now int) []string {
+func (s servers) run(t *testing.T, e *engine.Engine, now int) []string {
 	var to []string
 	for l := e.Outs(); len(l) > 0; l = e.Outs() {
 		for _, o := range l {
@@ -129,7 +136,7 @@ func (s servers) run(t *testing.T, e *Engine, now int) []string {
 }
 
 // same holds results against each other, but for the TTLs.
-func same(x Result, job, rcode int, q api.Question, l ...api.RR) bool {
+func same(x engine.Result, job, rcode int, q api.Question, l ...api.RR) bool {
 	data := func(s sets.Set) []string { return append([]string{s.Name, strconv.Itoa(s.Type)}, s.Data...) }
 	want := make([]sets.Set, len(l))
 	for i, r := range l {
@@ -139,7 +146,7 @@ func same(x Result, job, rcode int, q api.Question, l ...api.RR) bool {
 }
 
 // only tells the one result that there is.
-func only(t *testing.T, e *Engine) Result {
+func only(t *testing.T, e *engine.Engine) engine.Result {
 	l := e.Results()
 	if len(l) != 1 || len(e.Results()) != 0 {
 		t.Fatalf("%d results", len(l))
@@ -161,7 +168,7 @@ func TestNew(t *testing.T) { // P21.1
 		seed, most int
 		e          api.Errno
 	}{{0, 1, api.OK}, {5, 2000, api.OK}, {-1, 5, api.ErrRange}, {5, 0, api.ErrRange}, {5, 2001, api.ErrRange}} {
-		if e, bad := New(c.seed, c.most); bad != c.e || (e == nil) != (bad != api.OK) {
+		if e, bad := engine.New(c.seed, c.most); bad != c.e || (e == nil) != (bad != api.OK) {
 			t.Errorf("case %d: %d", i, bad)
 		}
 	}
@@ -195,7 +202,7 @@ func TestStart(t *testing.T) { // P21.2
 	if started(t, e, 0, q) != 1 || started(t, e, 9, q) != 1 || started(t, e, 0, ask("x.", 65535)) != 2 || started(t, e, api.MaxTime, ask("y.", 1)) != 3 || len(e.Outs()) != 3 {
 		t.Errorf("%v", e.Jobs())
 	}
-	want := Job{Question: q, ID: 1, Top: 1, Sends: 1, Now: q.Name, Out: true}
+	want := engine.Job{Question: q, ID: 1, Top: 1, Sends: 1, Now: q.Name, Out: true}
 	if l := e.Jobs(); len(l) != 3 || l[0] != want || l[2].ID != 3 {
 		t.Errorf("%v", l)
 	}
@@ -337,8 +344,11 @@ func TestCacheAhead(t *testing.T) { // a job's first three steps
 	before = uses("z.", api.CNAME)
 	started(t, e, 5, ask("z.", api.CNAME))
 	started(t, e, 5, ask("z.", api.A))
-	if uses("z.", api.CNAME) < before+2 {
-		t.Error("a use, whatever the rank")
+	first, _ := e.Get(5, key(n("x."), api.A))
+	started(t, e, 5, ask("z.", api.CNAME))
+	second, _ := e.Get(5, key(n("x."), api.A))
+	if uses("z.", api.CNAME) < before+3 || second.Used != first.Used+2 {
+		t.Errorf("a use, whatever the rank, and one alone: %d, %d", first.Used, second.Used)
 	}
 }
 
@@ -355,7 +365,7 @@ func TestChains(t *testing.T) { // a job's third step; an answer that is an alia
 		zoned := begun(t)
 		zoned.SetRoot(made(t, ".", append(l, ns(".", "a."))...))
 		heard := begun(t, hints(ns(".", "a."), a("a.", 1))...)
-		for i, e := range []*Engine{cached, zoned, heard} {
+		for i, e := range []*engine.Engine{cached, zoned, heard} {
 			q := ask("c0.", api.A)
 			started(t, e, 0, q)
 			servers{h(1): made(t, ".", append(l, ns(".", "a."))...)}.run(t, e, 0)
@@ -538,11 +548,15 @@ func TestServersAreSought(t *testing.T) { // a job's sixth step
 	e.SetRoot(top)
 	started(t, e, 0, ask("www.sub.com.", api.A))
 	s.answer(t, e, 0, e.Outs()[0])
-	want := []Job{{Question: ask("www.sub.com.", api.A), ID: 1, Top: 1, Sends: 2, Sub: 2, Now: n("www.sub.com.")}, {Question: ask("other.net.", api.A), ID: 2, Parent: 1, Top: 1, Depth: 1, Now: n("other.net."), Out: true}}
+	want := []engine.Job{{Question: ask("www.sub.com.", api.A), ID: 1, Top: 1, Sends: 2, Sub: 2, Now: n("www.sub.com.")}, {Question: ask("other.net.", api.A), ID: 2, Parent: 1, Top: 1, Depth: 1, Now: n("other.net."), Out: true}}
 	if l := e.Jobs(); !slices.Equal(l, want) {
 		t.Errorf("%v", l)
 	}
-	if to := s.run(t, e, 0); !slices.Equal(to, []string{"3", "4"}) {
+	s.answer(t, e, 0, e.Outs()[0])
+	if l := e.Jobs(); !slices.Equal(l, []engine.Job{{Question: ask("www.sub.com.", api.A), ID: 1, Top: 1, Sends: 3, Now: n("www.sub.com."), Out: true}}) {
+		t.Errorf("it waits for nothing but its own: %v", l)
+	}
+	if to := s.run(t, e, 0); !slices.Equal(to, []string{"4"}) {
 		t.Errorf("%v", to)
 	}
 	if r := only(t, e); !same(r, 1, api.NoError, ask("www.sub.com.", api.A), a("www.sub.com.", 55)) || len(e.Jobs()) != 0 {
@@ -580,8 +594,11 @@ func TestDepth(t *testing.T) { // P21.6
 	e := begun(t)
 	e.Put(0, cache.Auth, l...)
 	started(t, e, 0, ask("www.z0.", api.A))
-	if r := only(t, e); r.Rcode != api.ServFail || e.last != 1+api.MaxDepth {
-		t.Errorf("%d jobs, %v", e.last, r)
+	if r := only(t, e); r.Rcode != api.ServFail {
+		t.Errorf("%v", r)
+	}
+	if id := started(t, e, 0, ask("x.", api.A)); id != 2+api.MaxDepth {
+		t.Errorf("%d jobs", id-1)
 	}
 	// Servers whose addresses lead round: each job ends, however many there are.
 	e = begun(t)
@@ -591,8 +608,11 @@ func TestDepth(t *testing.T) { // P21.6
 	}
 	e.Put(0, cache.Auth, hints(round...)...)
 	started(t, e, 0, ask("www.x.", api.A))
-	if r := only(t, e); r.Rcode != api.ServFail || e.last != 1+20+20*19+20*19*18 {
-		t.Errorf("%d jobs, %v", e.last, r)
+	if r := only(t, e); r.Rcode != api.ServFail {
+		t.Errorf("%v", r)
+	}
+	if id := started(t, e, 0, ask("x.", api.A)); id != 2+20+20*19+20*19*18 {
+		t.Errorf("%d jobs", id-1)
 	}
 }
 
@@ -609,7 +629,7 @@ func TestMaxJobs(t *testing.T) { // P21.6
 }
 
 // holds tells whether what P21.6 says of open jobs is so.
-func holds(e *Engine) bool {
+func holds(e *engine.Engine) bool {
 	out := map[int]int{}
 	for _, w := range e.Waits() {
 		out[w.Job]++
@@ -619,7 +639,9 @@ func holds(e *Engine) bool {
 		if i > 0 && l[i-1].ID >= j.ID || j.Out != (out[j.ID] == 1) || out[j.ID] > 1 || j.Out == (j.Sub != 0) || j.Sends > api.MaxSends || j.Depth > api.MaxDepth {
 			return false
 		}
-		if j.Sub != 0 && !slices.ContainsFunc(l, func(o Job) bool { return o.ID == j.Sub && o.Parent == j.ID && o.Top == j.Top && o.Depth == j.Depth+1 }) {
+		if j.Sub != 0 && !slices.ContainsFunc(l, func(o engine.Job) bool {
+			return o.ID == j.Sub && o.Parent == j.ID && o.Top == j.Top && o.Depth == j.Depth+1
+		}) {
 			return false
 		}
 	}
@@ -631,8 +653,8 @@ func TestBounds(t *testing.T) { // P21.6
 	names := []string{".", "a.", "b.", "x.a.", "x.b.", "y.a.", "y.b.", "z.y.a.", "z.y.b."}
 	some := func() string { return names[r.Intn(len(names))] }
 	for range 300 {
-		e, _ := New(r.Intn(99), 1+r.Intn(100), hints(ns(".", "a."), ns(".", "b."), a("a.", 1), a("b.", 2))...)
-		var all []Out
+		e, _ := engine.New(r.Intn(99), 1+r.Intn(100), hints(ns(".", "a."), ns(".", "b."), a("a.", 1), a("b.", 2))...)
+		var all []engine.Out
 		now, open := 0, map[int]int{}
 		for range 80 {
 			switch k := r.Intn(10); {

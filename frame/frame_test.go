@@ -1,4 +1,4 @@
-package frame
+package frame_test
 
 import (
 	"bytes"
@@ -9,6 +9,7 @@ import (
 	"testing"
 
 	"rhizome/api"
+	"rhizome/frame"
 )
 
 func same(l, m [][]byte) bool { return slices.EqualFunc(l, m, bytes.Equal) }
@@ -23,7 +24,7 @@ func TestPut(t *testing.T) { // P7.1
 		{nil, "", api.OK}, {[][]byte{[]byte("ab")}, "\x00\x02ab", api.OK}, {[][]byte{nil, []byte("a"), {}}, "\x00\x00\x00\x01a\x00\x00", api.OK}, {[][]byte{full}, "\xff\xff" + string(full), api.OK},
 		{[][]byte{[]byte("a"), append(full[:65535:65535], 1)}, "", api.ErrLong},
 	} {
-		if b, e := Put(c.l...); string(b) != c.want || e != c.e {
+		if b, e := frame.Put(c.l...); string(b) != c.want || e != c.e {
 			t.Errorf("case %d: %.40x, %d", i, b, e)
 		}
 	}
@@ -38,7 +39,7 @@ func TestTake(t *testing.T) { // P7.1
 		{"", nil, 0}, {"\x00", nil, 0}, {"\x00\x01", nil, 0}, {"\x00\x00", []string{""}, 2}, {"\x00\x02ab", []string{"ab"}, 4}, {"\x00\x02ab\x00", []string{"ab"}, 4}, {"\x00\x02a", nil, 0},
 		{"\x00\x01a\x00\x00\x00\x02b", []string{"a", ""}, 5}, {"\x01\x00" + strings.Repeat("x", 256) + "y", []string{strings.Repeat("x", 256)}, 258}, {"\x01\x00" + strings.Repeat("x", 255), nil, 0},
 	} {
-		l, end := Take([]byte(c.s))
+		l, end := frame.Take([]byte(c.s))
 		var want [][]byte
 		for _, s := range c.want {
 			want = append(want, []byte(s))
@@ -50,7 +51,7 @@ func TestTake(t *testing.T) { // P7.1
 }
 
 func TestFeed(t *testing.T) { // P7.2
-	r := NewReader(100)
+	r := frame.NewReader(100)
 	if r.Left() != 0 {
 		t.Error("Left of nothing")
 	}
@@ -75,7 +76,7 @@ func TestFeed(t *testing.T) { // P7.2
 }
 
 func TestFeedHasALimit(t *testing.T) { // P7.2
-	r := NewReader(5)
+	r := frame.NewReader(5)
 	if l, e := r.Feed([]byte("\x00\x01a\x00\x02")); !same(l, [][]byte{[]byte("a")}) || e != api.OK || r.Left() != 2 {
 		t.Errorf("%q, %d", l, e)
 	}
@@ -88,12 +89,12 @@ func TestFeedHasALimit(t *testing.T) { // P7.2
 	if l, e := r.Feed(); len(l) != 0 || e != api.ErrLimit || r.Left() != 0 {
 		t.Errorf("ever: %q, %d", l, e)
 	}
-	r = NewReader(4)
+	r = frame.NewReader(4)
 	if l, e := r.Feed([]byte("\x00\x01a"), []byte("\x00\x00")); len(l) != 0 || e != api.ErrLimit || r.Left() != 0 {
 		t.Errorf("%q, %d", l, e)
 	}
 	for most, want := range map[int]api.Errno{0: api.OK, -1: api.ErrLimit, math.MinInt: api.ErrLimit, math.MaxInt: api.OK} {
-		if l, e := NewReader(most).Feed(); len(l) != 0 || e != want {
+		if l, e := frame.NewReader(most).Feed(); len(l) != 0 || e != want {
 			t.Errorf("most %d: %d", most, e)
 		}
 	}
@@ -106,8 +107,8 @@ func TestPiecesDoNotCount(t *testing.T) { // P7.4
 		for i := range b {
 			b[i] = byte(rnd.Intn(4) * rnd.Intn(2))
 		}
-		want, end := Take(b)
-		r := NewReader(len(b))
+		want, end := frame.Take(b)
+		r := frame.NewReader(len(b))
 		var got [][]byte
 		for rest := b; len(rest) > 0; {
 			n := 1 + rnd.Intn(len(rest))
@@ -121,7 +122,7 @@ func TestPiecesDoNotCount(t *testing.T) { // P7.4
 		if !same(got, want) || r.Left() != len(b)-end {
 			t.Fatalf("%x: %x, %d", b, got, r.Left())
 		}
-		if back, _ := Put(got...); string(back) != string(b[:end]) {
+		if back, _ := frame.Put(got...); string(back) != string(b[:end]) {
 			t.Fatalf("%x: %x", b, back)
 		}
 	}
@@ -129,13 +130,13 @@ func TestPiecesDoNotCount(t *testing.T) { // P7.4
 
 func TestListsAreNew(t *testing.T) { // P7.3
 	b := []byte("\x00\x02ab\x00\x02cd\x00")
-	l, _ := Take(b)
+	l, _ := frame.Take(b)
 	_ = append(l[0], "!!!!"...)
 	l[0][0] = '!'
 	if string(l[1]) != "cd" || string(b) != "\x00\x02ab\x00\x02cd\x00" {
 		t.Errorf("%q, %q", l, b)
 	}
-	r := NewReader(99)
+	r := frame.NewReader(99)
 	piece := make([]byte, 3, 9)
 	copy(piece, "\x00\x02a")
 	r.Feed(piece)

@@ -1,4 +1,4 @@
-package front
+package front_test
 
 import (
 	"math"
@@ -8,6 +8,7 @@ import (
 
 	"rhizome/api"
 	"rhizome/edns"
+	"rhizome/front"
 	"rhizome/sets"
 	"rhizome/wire"
 )
@@ -78,37 +79,37 @@ func TestReadTells(t *testing.T) { // P22.1
 		{asked(t, of(api.ANY, 1)), answer(t, 0, api.Refused, kind(api.ANY, 1))}, {asked(t, func(m *wire.Message) { of(api.OPT, 1)(m); opt(t, edns.Opt{Size: 900})(m) }), answer(t, 0, api.Refused, kind(api.OPT, 1))},
 	} {
 		for _, tcp := range []bool{false, true} {
-			if x, b, ok := Read("f", tcp, c.b); ok || x != (Client{}) || string(b) != c.want {
+			if x, b, ok := front.Read("f", tcp, c.b); ok || x != (front.Client{}) || string(b) != c.want {
 				t.Errorf("case %d: %v, %x", i, x, b)
 			}
 		}
 	}
 	noRD := slices.Clone(good[:12])
 	noRD[2] = 0
-	if _, b, _ := Read("f", false, noRD); len(b) != 12 || b[2] != 0x80 || b[3] != 0x81 {
+	if _, b, _ := front.Read("f", false, noRD); len(b) != 12 || b[2] != 0x80 || b[3] != 0x81 {
 		t.Errorf("%x", b)
 	}
 }
 
 func TestReadTakes(t *testing.T) { // P22.1
 	a := api.RR{Name: www, Type: api.A, Class: 1, TTL: 5, Data: "1234"}
-	with := func(size int, has, tcp bool) Client {
-		return Client{Question: q, From: "f", ID: 7, Size: size, RD: true, Edns: has, TCP: tcp}
+	with := func(size int, has, tcp bool) front.Client {
+		return front.Client{Question: q, From: "f", ID: 7, Size: size, RD: true, Edns: has, TCP: tcp}
 	}
 	for i, c := range []struct {
 		f    func(m *wire.Message)
 		tcp  bool
-		want Client
+		want front.Client
 	}{
 		{nil, false, with(512, false, false)}, {nil, true, with(api.MaxMsg, false, true)}, {opt(t, edns.Opt{Size: 900}), false, with(900, true, false)}, {opt(t, edns.Opt{Size: 100, Do: true}), false, with(512, true, false)}, {opt(t, edns.Opt{Size: 4096, Rcode: 3}), false, with(1232, true, false)},
 		{opt(t, edns.Opt{Size: 900}), true, with(api.MaxMsg, true, true)}, {func(m *wire.Message) { m.Add(3, a); m.TC, m.AA, m.RA, m.Rcode = true, true, true, 5 }, false, with(512, false, false)},
 	} {
-		if x, b, ok := Read("f", c.tcp, asked(t, c.f)); !ok || x != c.want || len(b) != 0 {
+		if x, b, ok := front.Read("f", c.tcp, asked(t, c.f)); !ok || x != c.want || len(b) != 0 {
 			t.Errorf("case %d: %v, %x", i, x, b)
 		}
 	}
 	b := []byte("\x00\x07\x00\x00\x00\x01\x00\x00\x00\x00\x00\x00\x03WwW\x03cOm\x00\xff\xff\x00\x01")
-	if x, _, ok := Read("", false, b); !ok || x != (Client{Question: api.Question{Name: www, Type: 65535, Class: 1}, ID: 7, Size: 512}) {
+	if x, _, ok := front.Read("", false, b); !ok || x != (front.Client{Question: api.Question{Name: www, Type: 65535, Class: 1}, ID: 7, Size: 512}) {
 		t.Errorf("%v", x)
 	}
 }
@@ -118,7 +119,7 @@ func TestReply(t *testing.T) { // P22.2, P22.4
 	big := sets.Set{Key: sets.Key{Name: www, Type: 300, Class: 1}, TTL: 5, Data: []string{strings.Repeat("d", 470)}}
 	bad := sets.Set{Key: sets.Key{Name: www, Type: api.A, Class: 1}, Data: []string{"123"}}
 	for _, has := range []bool{false, true} {
-		c := Client{Question: q, From: "f", ID: 7, Size: 512, RD: true, Edns: has}
+		c := front.Client{Question: q, From: "f", ID: 7, Size: 512, RD: true, Edns: has}
 		var l []edns.Opt
 		if has {
 			l = []edns.Opt{{Size: 1232}}
@@ -129,58 +130,58 @@ func TestReply(t *testing.T) { // P22.2, P22.4
 			b, _ := wire.Encode(m, api.MaxMsg)
 			return string(b)
 		}
-		if b := Reply(c, 3, set, big); string(b) != whole(true, true, 3) {
+		if b := front.Reply(c, 3, set, big); string(b) != whole(true, true, 3) {
 			t.Errorf("too long: %x", b)
 		}
-		if b := Reply(c, 3, set); string(b) != whole(true, false, 3, set.Records()...) {
+		if b := front.Reply(c, 3, set); string(b) != whole(true, false, 3, set.Records()...) {
 			t.Errorf("%x", b)
 		}
-		if b := Reply(c, 0, bad, set); string(b) != whole(true, true, 0) {
+		if b := front.Reply(c, 0, bad, set); string(b) != whole(true, true, 0) {
 			t.Errorf("one that may not be: %x", b)
 		}
 		fits := len(whole(true, false, 0, append(set.Records(), big.Records()...)...))
 		for size, want := range map[int]bool{fits: true, fits - 1: false, api.MaxMsg: true} {
 			c.Size = size
-			b := Reply(c, 0, set, big)
+			b := front.Reply(c, 0, set, big)
 			if (string(b) == whole(true, false, 0, append(set.Records(), big.Records()...)...)) != want || len(b) > size {
 				t.Errorf("size %d: %d", size, len(b))
 			}
 		}
 		c.Size, c.RD = 512, false
-		if b := Reply(c, 2); string(b) != whole(false, false, 2) {
+		if b := front.Reply(c, 2); string(b) != whole(false, false, 2) {
 			t.Errorf("%x", b)
 		}
-		for _, f := range []func(c *Client){func(c *Client) { c.Size = 20 }, func(c *Client) { c.Size = 0 }, func(c *Client) { c.Size = -1 }, func(c *Client) { c.ID = -1 }, func(c *Client) { c.ID = 65536 }, func(c *Client) { c.Name = "x" }, func(c *Client) { c.Type = 65536 }} {
+		for _, f := range []func(c *front.Client){func(c *front.Client) { c.Size = 20 }, func(c *front.Client) { c.Size = 0 }, func(c *front.Client) { c.Size = -1 }, func(c *front.Client) { c.ID = -1 }, func(c *front.Client) { c.ID = 65536 }, func(c *front.Client) { c.Name = "x" }, func(c *front.Client) { c.Type = 65536 }} {
 			x := c
 			f(&x)
-			if b := Reply(x, 0, set); len(b) != 0 {
+			if b := front.Reply(x, 0, set); len(b) != 0 {
 				t.Errorf("%v: %x", x, b)
 			}
 		}
 		for _, rcode := range []int{-1, 16, math.MaxInt} {
-			if b := Reply(c, rcode, set); len(b) != 0 {
+			if b := front.Reply(c, rcode, set); len(b) != 0 {
 				t.Errorf("rcode %d: %x", rcode, b)
 			}
 		}
 	}
-	if b := Reply(Client{}, 0); len(b) != 0 {
+	if b := front.Reply(front.Client{}, 0); len(b) != 0 {
 		t.Errorf("%x", b)
 	}
 }
 
 func TestFail(t *testing.T) { // P22.2
-	if b := Fail(258, 2, 5, true, q, q); string(b) != "\x01\x02\x91\x85\x00\x02\x00\x00\x00\x00\x00\x00"+www+"\x00\x01\x00\x01\xc0\x0c\x00\x01\x00\x01" {
+	if b := front.Fail(258, 2, 5, true, q, q); string(b) != "\x01\x02\x91\x85\x00\x02\x00\x00\x00\x00\x00\x00"+www+"\x00\x01\x00\x01\xc0\x0c\x00\x01\x00\x01" {
 		t.Errorf("%x", b)
 	}
-	if b := Fail(258, 0, 0, false); string(b) != "\x01\x02\x80\x80\x00\x00\x00\x00\x00\x00\x00\x00" {
+	if b := front.Fail(258, 0, 0, false); string(b) != "\x01\x02\x80\x80\x00\x00\x00\x00\x00\x00\x00\x00" {
 		t.Errorf("%x", b)
 	}
 	for _, c := range [][3]int{{-1, 0, 0}, {65536, 0, 0}, {0, 16, 0}, {0, -1, 0}, {0, 0, 16}, {0, 0, math.MinInt}} {
-		if b := Fail(c[0], c[1], c[2], true); len(b) != 0 {
+		if b := front.Fail(c[0], c[1], c[2], true); len(b) != 0 {
 			t.Errorf("%v: %x", c, b)
 		}
 	}
-	if len(Fail(0, 0, 0, true, api.Question{})) != 0 || len(Fail(0, 0, 0, true, slices.Repeat([]api.Question{q}, 301)...)) != 0 || len(Fail(0, 0, 0, true, slices.Repeat([]api.Question{q}, 300)...)) == 0 {
+	if len(front.Fail(0, 0, 0, true, api.Question{})) != 0 || len(front.Fail(0, 0, 0, true, slices.Repeat([]api.Question{q}, 301)...)) != 0 || len(front.Fail(0, 0, 0, true, slices.Repeat([]api.Question{q}, 300)...)) == 0 {
 		t.Error("questions that may not be")
 	}
 }
@@ -188,13 +189,13 @@ func TestFail(t *testing.T) { // P22.2
 func TestListsAreNew(t *testing.T) { // P22.3
 	b := asked(t, opt(t, edns.Opt{Version: 1}))
 	before := slices.Clone(b)
-	_, x, _ := Read("f", false, b)
+	_, x, _ := front.Read("f", false, b)
 	x[0]++
 	if !slices.Equal(b, before) {
 		t.Errorf("%x", b)
 	}
 	set := sets.Set{Key: sets.Key{Name: www, Type: api.A, Class: 1}, Data: []string{"5678", "1234"}}
-	Reply(Client{Question: q, Size: 512}, 0, set)
+	front.Reply(front.Client{Question: q, Size: 512}, 0, set)
 	if set.Data[0] != "5678" {
 		t.Errorf("%v", set)
 	}

@@ -1,4 +1,4 @@
-package image
+package image_test
 
 import (
 	"hash/crc32"
@@ -9,6 +9,7 @@ import (
 	"testing"
 
 	"rhizome/api"
+	"rhizome/image"
 	"rhizome/name"
 	"rhizome/rdata"
 	"rhizome/sets"
@@ -56,12 +57,12 @@ func random(t *testing.T, r *rand.Rand) *zone.Zone {
 	return made(t, l...)
 }
 
-func opened(t *testing.T, z *zone.Zone) *Image {
-	s, e := Encode(z)
+func opened(t *testing.T, z *zone.Zone) *image.Image {
+	s, e := image.Encode(z)
 	if e != api.OK {
 		t.Fatal(e)
 	}
-	i, e := Open(s)
+	i, e := image.Open(s)
 	if e != api.OK || i.Len() != len(s) {
 		t.Fatalf("%d", e)
 	}
@@ -82,36 +83,36 @@ func TestEncode(t *testing.T) { // P14.1
 	from := 2 + 4 + 2 + 9
 	place := func(n int) string { return string([]byte{0, byte(n >> 8), byte(n)}) }
 	want := summed("RZ" + ex + "\x00\x03" + place(from) + place(from+len(one)) + place(from+len(one)+len(two)) + one + two + three)
-	s, e := Encode(z)
+	s, e := image.Encode(z)
 	if s != want || e != api.OK {
 		t.Errorf("%x, %d\n%x", s, e, want)
 	}
-	if s, e := Encode(nil); s != "" || e != api.ErrNone {
+	if s, e := image.Encode(nil); s != "" || e != api.ErrNone {
 		t.Errorf("%x, %d", s, e)
 	}
 	i := opened(t, z)
-	if i.Meta != (Meta{Apex: ex, Serial: 77, Count: 3}) {
+	if i.Meta != (image.Meta{Apex: ex, Serial: 77, Count: 3}) {
 		t.Errorf("%v", i.Meta)
 	}
 }
 
 func TestOpenTakesNoOtherBytes(t *testing.T) { // P14.1
 	z := made(t, rr(at("b"), api.A, 5, addr), rr(at("b"), api.A, 5, "\x00\x02\x03\x04"), rr(at("c"), api.TXT, 5, "\x01t"))
-	s, _ := Encode(z)
+	s, _ := image.Encode(z)
 	bare := s[:len(s)-4]
 	for n := range 11 {
-		if i, e := Open(s[:n]); i != nil || e != api.ErrShort {
+		if i, e := image.Open(s[:n]); i != nil || e != api.ErrShort {
 			t.Errorf("%d bytes: %d", n, e)
 		}
 	}
-	if i, e := Open("RZ"); i != nil || e != api.ErrShort {
+	if i, e := image.Open("RZ"); i != nil || e != api.ErrShort {
 		t.Errorf("the example: %d", e)
 	}
 	for n := 11; n < len(s); n++ {
-		if i, e := Open(s[:n]); i != nil || e != api.ErrSum {
+		if i, e := image.Open(s[:n]); i != nil || e != api.ErrSum {
 			t.Errorf("%d bytes: %d", n, e)
 		}
-		if i, e := Open(summed(s[:n])); n != len(bare) && (i != nil || e != api.ErrForm) {
+		if i, e := image.Open(summed(s[:n])); n != len(bare) && (i != nil || e != api.ErrForm) {
 			t.Errorf("%d bytes, summed: %d", n, e)
 		}
 	}
@@ -119,20 +120,20 @@ func TestOpenTakesNoOtherBytes(t *testing.T) { // P14.1
 		for _, bit := range []byte{1, 2, 0x20, 0x80} {
 			b := []byte(s)
 			b[k] ^= bit
-			if i, e := Open(string(b)); i != nil || e != api.ErrSum {
+			if i, e := image.Open(string(b)); i != nil || e != api.ErrSum {
 				t.Errorf("bit %x of byte %d: %d", bit, k, e)
 			}
 			if k >= len(bare) {
 				continue
 			}
 			again := summed(string(b[:len(bare)]))
-			i, e := Open(again)
+			i, e := image.Open(again)
 			if e != api.OK && e != api.ErrForm || (i == nil) != (e != api.OK) {
 				t.Errorf("bit %x of byte %d, summed: %d", bit, k, e)
 			}
 			if e == api.OK {
 				y, _ := i.Zone()
-				if own, _ := Encode(y); own != again {
+				if own, _ := image.Encode(y); own != again {
 					t.Errorf("bit %x of byte %d is taken", bit, k)
 				}
 			}
@@ -142,14 +143,14 @@ func TestOpenTakesNoOtherBytes(t *testing.T) { // P14.1
 	for i, w := range []string{
 		"", bare + "\x00", "RY" + bare[2:], "RZ" + bare, "RZ\x00\x00\x00\x00\x00", "RZ\x00\xff\xff\x00\x00\x00", "RZ" + strings.Repeat("\x01a", 200), "RZ" + ex + "\x00\x01\x00\x00\x0b" + none,
 	} {
-		if im, e := Open(summed(w)); im != nil || e != api.ErrForm && len(w) > 6 || e == api.OK {
+		if im, e := image.Open(summed(w)); im != nil || e != api.ErrForm && len(w) > 6 || e == api.OK {
 			t.Errorf("case %d: %d", i, e)
 		}
 	}
 	// Sets out of order, places that lead astray.
 	b := []byte(bare)
 	b[10], b[13] = b[13], b[10]
-	if im, e := Open(summed(string(b))); im != nil || e != api.ErrForm {
+	if im, e := image.Open(summed(string(b))); im != nil || e != api.ErrForm {
 		t.Errorf("%d", e)
 	}
 }
@@ -205,8 +206,8 @@ func TestAnswersAsTheZone(t *testing.T) { // P14.2, P14.4
 }
 
 func TestSame(t *testing.T) { // P14.2
-	m := Meta{Apex: ex, Serial: 1, Count: 2}
-	for _, o := range []Meta{{}, {ex, 1, 3}, {ex, 2, 2}, {"\x00", 1, 2}} {
+	m := image.Meta{Apex: ex, Serial: 1, Count: 2}
+	for _, o := range []image.Meta{{}, {ex, 1, 3}, {ex, 2, 2}, {"\x00", 1, 2}} {
 		if m.Same(o) || o.Same(m) {
 			t.Errorf("%v", o)
 		}

@@ -1,4 +1,4 @@
-package mirror
+package mirror_test
 
 import (
 	"math"
@@ -11,6 +11,7 @@ import (
 	"rhizome/disk"
 	"rhizome/frame"
 	"rhizome/md"
+	"rhizome/mirror"
 	"rhizome/rdata"
 	"rhizome/slots"
 	"rhizome/wire"
@@ -54,8 +55,8 @@ func holding(t *testing.T, serial, time int, c times) *slots.Store {
 	return s
 }
 
-func made(t *testing.T, s *slots.Store, masters ...string) *Mirror {
-	m, e := New(s, ex, masters...)
+func made(t *testing.T, s *slots.Store, masters ...string) *mirror.Mirror {
+	m, e := mirror.New(s, ex, masters...)
 	if e != api.OK {
 		t.Fatal(e)
 	}
@@ -63,7 +64,7 @@ func made(t *testing.T, s *slots.Store, masters ...string) *Mirror {
 }
 
 // serialOf tells what is held: -1, if nothing is.
-func serialOf(t *testing.T, m *Mirror) int {
+func serialOf(t *testing.T, m *mirror.Mirror) int {
 	z, ok := m.Held()
 	if ok != (z != nil) {
 		t.Fatal("Held")
@@ -97,8 +98,8 @@ func stream(t *testing.T, id int, l []api.RR) []byte {
 	return b
 }
 
-func sameSends(l, m []Send) bool {
-	return slices.EqualFunc(l, m, func(a, b Send) bool {
+func sameSends(l, m []mirror.Send) bool {
+	return slices.EqualFunc(l, m, func(a, b mirror.Send) bool {
 		return a.To == b.To && a.Stream == b.Stream && string(a.Bytes) == string(b.Bytes)
 	})
 }
@@ -111,28 +112,34 @@ func asked(t *testing.T, id, kind int) []byte {
 	return b
 }
 
+func TestPhases(t *testing.T) {
+	if got := [...]int{mirror.Idle, mirror.Asking, mirror.Pulling}; got != [...]int{0, 1, 2} {
+		t.Errorf("%v", got)
+	}
+}
+
 func TestNew(t *testing.T) { // P17.1
 	for _, apex := range []string{"", "ex", "\x02EX\x00"} {
-		if m, e := New(empty(t), apex, "m"); m != nil || e != api.ErrName {
+		if m, e := mirror.New(empty(t), apex, "m"); m != nil || e != api.ErrName {
 			t.Errorf("%q: %d", apex, e)
 		}
 	}
 	m := made(t, empty(t), "m")
-	if m.Plan != (Plan{}) || serialOf(t, m) != -1 {
+	if m.Plan != (mirror.Plan{}) || serialOf(t, m) != -1 {
 		t.Errorf("%v", m.Plan)
 	}
 	m = made(t, holding(t, 5, 77, usual), "m")
-	if m.Plan != (Plan{Time: 77}) || serialOf(t, m) != 5 {
+	if m.Plan != (mirror.Plan{Time: 77}) || serialOf(t, m) != 5 {
 		t.Errorf("%v", m.Plan)
 	}
-	m, e := New(holding(t, 5, 77, usual), "\x00", "m")
-	if e != api.OK || m.Plan != (Plan{}) || serialOf(t, m) != -1 {
+	m, e := mirror.New(holding(t, 5, 77, usual), "\x00", "m")
+	if e != api.OK || m.Plan != (mirror.Plan{}) || serialOf(t, m) != -1 {
 		t.Errorf("another apex: %v", m.Plan)
 	}
 	s := empty(t)
 	z, _ := zone.New(ex, append(signed(t, 5, usual), api.RR{Name: ex, Type: 300, Class: 1})...)
 	s.Install(z, 9)
-	if m := made(t, s); m.Plan != (Plan{}) || serialOf(t, m) != -1 {
+	if m := made(t, s); m.Plan != (mirror.Plan{}) || serialOf(t, m) != -1 {
 		t.Errorf("a wrong digest: %v", m.Plan)
 	}
 }
@@ -148,14 +155,16 @@ func TestCopyAndDue(t *testing.T) { // P17.1, P17.6
 		t.Error("Copy of none")
 	}
 	for i, c := range []struct {
-		p    Plan
+		p    mirror.Plan
 		now  int
 		want bool
 	}{
-		{Plan{Next: 5}, 5, true}, {Plan{Next: 5}, 4, false}, {Plan{Next: 5, Until: 99}, 6, true}, {Plan{Phase: Asking, Until: 5}, 5, true}, {Plan{Phase: Asking, Until: 5}, 4, false}, {Plan{Phase: Pulling, Until: 5, Next: 99}, 6, true},
-		{Plan{}, -1, false}, {Plan{}, api.MaxTime, true}, {Plan{}, api.MaxTime + 1, false}, {Plan{Phase: Pulling, Until: -9}, -1, false}, {Plan{Phase: Pulling}, math.MaxInt, false},
+		{mirror.Plan{Next: 5}, 5, true}, {mirror.Plan{Next: 5}, 4, false}, {mirror.Plan{Next: 5, Until: 99}, 6, true}, {mirror.Plan{Phase: mirror.Asking, Until: 5}, 5, true}, {mirror.Plan{Phase: mirror.Asking, Until: 5}, 4, false}, {mirror.Plan{Phase: mirror.Pulling, Until: 5, Next: 99}, 6, true},
+		{mirror.Plan{}, -1, false}, {mirror.Plan{}, api.MaxTime, true}, {mirror.Plan{}, api.MaxTime + 1, false}, {mirror.Plan{Phase: mirror.Pulling, Until: -9}, -1, false}, {mirror.Plan{Phase: mirror.Pulling}, math.MaxInt, false},
 	} {
-		if c.p.Due(c.now) != c.want || (&Mirror{Plan: c.p}).Due(c.now) != c.want {
+		m := made(t, empty(t))
+		m.Plan = c.p
+		if c.p.Due(c.now) != c.want || m.Due(c.now) != c.want {
 			t.Errorf("case %d", i)
 		}
 	}
@@ -163,37 +172,45 @@ func TestCopyAndDue(t *testing.T) { // P17.1, P17.6
 
 func TestTick(t *testing.T) { // P17.2
 	m := made(t, empty(t), "m", "n")
-	if l := m.Tick(-1, 5); len(l) != 0 || len(m.Tick(api.MaxTime+1, 5)) != 0 || m.Plan != (Plan{}) {
+	if l := m.Tick(-1, 5); len(l) != 0 || len(m.Tick(api.MaxTime+1, 5)) != 0 || m.Plan != (mirror.Plan{}) {
 		t.Errorf("%v", l)
 	}
-	if l := m.Tick(10, 65536+5); !sameSends(l, []Send{{To: "m", Bytes: asked(t, 5, api.SOA)}}) || m.Plan != (Plan{Phase: Asking, ID: 5, Until: 13}) {
+	if l := m.Tick(10, 65536+5); !sameSends(l, []mirror.Send{{To: "m", Bytes: asked(t, 5, api.SOA)}}) || m.Plan != (mirror.Plan{Phase: mirror.Asking, ID: 5, Until: 13}) {
 		t.Errorf("%v, %v", l, m.Plan)
 	}
-	if l := m.Tick(12, 9); len(l) != 0 || m.Phase != Asking {
+	if l := m.Tick(12, 9); len(l) != 0 || m.Phase != mirror.Asking {
 		t.Errorf("%v, %v", l, m.Plan)
 	}
-	if l := m.Tick(13, 9); len(l) != 0 || m.Plan != (Plan{Turn: 1, Next: 18}) {
+	if l := m.Tick(13, 9); len(l) != 0 || m.Plan != (mirror.Plan{Turn: 1, Next: 18}) {
 		t.Errorf("%v, %v", l, m.Plan)
 	}
-	if l := m.Tick(17, 9); len(l) != 0 || m.Phase != Idle {
+	if l := m.Tick(17, 9); len(l) != 0 || m.Phase != mirror.Idle {
 		t.Errorf("%v", m.Plan)
 	}
-	if l := m.Tick(18, -9); !sameSends(l, []Send{{To: "n", Bytes: asked(t, 0, api.SOA)}}) || m.Plan != (Plan{Phase: Asking, Turn: 1, Until: 21, Next: 18}) {
+	if l := m.Tick(18, -9); !sameSends(l, []mirror.Send{{To: "n", Bytes: asked(t, 0, api.SOA)}}) || m.Plan != (mirror.Plan{Phase: mirror.Asking, Turn: 1, Until: 21, Next: 18}) {
 		t.Errorf("%v, %v", l, m.Plan)
 	}
 	m.Tick(99, 0)
-	if m.Plan != (Plan{Next: 104}) {
+	if m.Plan != (mirror.Plan{Next: 104}) {
 		t.Errorf("the last master: %v", m.Plan)
 	}
+	m = made(t, empty(t), "m")
+	if l := m.Tick(0, 5+65535); !sameSends(l, []mirror.Send{{To: "m", Bytes: asked(t, 4, api.SOA)}}) {
+		t.Errorf("the example, with a greater draw: %v", l)
+	}
+	m = made(t, empty(t), "m")
+	if l := m.Tick(0, 65535); !sameSends(l, []mirror.Send{{To: "m", Bytes: asked(t, 65535, api.SOA)}}) {
+		t.Errorf("%v", l)
+	}
 	m = made(t, empty(t))
-	if l := m.Tick(10, 5); len(l) != 0 || m.Plan != (Plan{}) {
+	if l := m.Tick(10, 5); len(l) != 0 || m.Plan != (mirror.Plan{}) {
 		t.Errorf("no masters: %v", l)
 	}
 	for retry, wait := range map[int]int{0: 1, 20: 20, 3600: 3600, 3601: 3600, 1<<32 - 1: 3600} {
 		m := made(t, holding(t, 5, 7, times{100, retry, 400}), "m")
 		m.Tick(10, 5)
 		m.Tick(20, 5)
-		if m.Plan != (Plan{Next: 20 + wait, Time: 7}) {
+		if m.Plan != (mirror.Plan{Next: 20 + wait, Time: 7}) {
 			t.Errorf("retry %d: %v", retry, m.Plan)
 		}
 	}
@@ -202,7 +219,7 @@ func TestTick(t *testing.T) { // P17.2
 func TestPacketThatDoesNotFit(t *testing.T) { // P17.3
 	m := made(t, holding(t, 5, 7, usual), "m", "n")
 	good := reply(t, 9, 6, nil)
-	if l := m.Packet(10, 1, "m", good); len(l) != 0 || m.Phase != Idle {
+	if l := m.Packet(10, 1, "m", good); len(l) != 0 || m.Phase != mirror.Idle {
 		t.Error("it is Idle")
 	}
 	m.Tick(10, 9)
@@ -230,7 +247,7 @@ func TestPacketFails(t *testing.T) { // P17.3
 	} {
 		m := made(t, holding(t, 5, 7, usual), "m", "n")
 		m.Tick(10, 9)
-		if l := m.Packet(12, 1, "m", reply(t, 9, 6, f)); len(l) != 0 || m.Plan != (Plan{Turn: 1, Next: 32, Time: 7}) {
+		if l := m.Packet(12, 1, "m", reply(t, 9, 6, f)); len(l) != 0 || m.Plan != (mirror.Plan{Turn: 1, Next: 32, Time: 7}) {
 			t.Errorf("case %d: %v", i, m.Plan)
 		}
 	}
@@ -242,7 +259,7 @@ func TestPacketOfTheSame(t *testing.T) { // P17.3
 			s := holding(t, 5, 7, times{refresh, 20, 400})
 			m := made(t, s, "m", "n")
 			m.Tick(10, 9)
-			if l := m.Packet(12, 1, "m", reply(t, 9, serial, nil)); len(l) != 0 || m.Plan != (Plan{Next: 12 + wait, Time: 12}) || s.Time != 12 || serialOf(t, m) != 5 {
+			if l := m.Packet(12, 1, "m", reply(t, 9, serial, nil)); len(l) != 0 || m.Plan != (mirror.Plan{Next: 12 + wait, Time: 12}) || s.Time != 12 || serialOf(t, m) != 5 {
 				t.Errorf("%d, %d: %v, %v", serial, refresh, m.Plan, s.Super)
 			}
 			if o, _ := slots.Open(s.Disk()); o.Time != 12 {
@@ -254,7 +271,7 @@ func TestPacketOfTheSame(t *testing.T) { // P17.3
 	m := made(t, s, "m", "n")
 	m.Tick(10, 9)
 	s.Disk().CrashAt(1)
-	if l := m.Packet(12, 1, "m", reply(t, 9, 5, nil)); len(l) != 0 || m.Plan != (Plan{Turn: 1, Next: 32, Time: 7}) || serialOf(t, m) != 5 {
+	if l := m.Packet(12, 1, "m", reply(t, 9, 5, nil)); len(l) != 0 || m.Plan != (mirror.Plan{Turn: 1, Next: 32, Time: 7}) || serialOf(t, m) != 5 {
 		t.Errorf("%v", m.Plan)
 	}
 }
@@ -263,6 +280,7 @@ func TestPacketOfANewer(t *testing.T) { // P17.3
 	framed, _ := frame.Put(asked(t, 44, api.AXFR))
 	first := func(a *wire.Message) {
 		a.An = append(a.An, signed(t, 4, usual)[0])
+		a.An = append([]api.RR{{Name: ex, Type: api.NS, Class: 1, Data: ex}, {Name: "\x00", Type: api.SOA, Class: 1, Data: signed(t, 3, usual)[0].Data}}, a.An...)
 		a.An[0].Class = 3
 		a.TC = true
 	}
@@ -275,18 +293,18 @@ func TestPacketOfANewer(t *testing.T) { // P17.3
 		m := made(t, c.s, "m", "n")
 		m.Tick(10, 9)
 		l := m.Packet(12, 3*65536+44, "m", reply(t, 9, c.serial, c.f))
-		if !sameSends(l, []Send{{To: "m", Stream: true, Bytes: framed}}) || m.Plan != (Plan{Phase: Pulling, ID: 44, Until: 42, Next: m.Next, Time: c.time}) {
+		if !sameSends(l, []mirror.Send{{To: "m", Stream: true, Bytes: framed}}) || m.Plan != (mirror.Plan{Phase: mirror.Pulling, ID: 44, Until: 42, Next: m.Next, Time: c.time}) {
 			t.Errorf("case %d: %v, %v", i, l, m.Plan)
 		}
-		if l := m.Packet(13, 1, "m", reply(t, 44, 6, nil)); len(l) != 0 || m.Phase != Pulling {
+		if l := m.Packet(13, 1, "m", reply(t, 44, 6, nil)); len(l) != 0 || m.Phase != mirror.Pulling {
 			t.Errorf("case %d: %v", i, m.Plan)
 		}
 		m.Tick(41, 5)
-		if m.Phase != Pulling {
+		if m.Phase != mirror.Pulling {
 			t.Errorf("case %d: %v", i, m.Plan)
 		}
 		m.Tick(42, 5)
-		if m.Phase != Idle || m.Turn != 1 {
+		if m.Phase != mirror.Idle || m.Turn != 1 {
 			t.Errorf("case %d: %v", i, m.Plan)
 		}
 	}
@@ -298,11 +316,11 @@ func TestPacketOfANewer(t *testing.T) { // P17.3
 }
 
 // pulling is a mirror that waits for a stream with the ID 44, since 12.
-func pulling(t *testing.T, s *slots.Store) *Mirror {
+func pulling(t *testing.T, s *slots.Store) *mirror.Mirror {
 	m := made(t, s, "m", "n")
 	m.Tick(10, 9)
 	m.Packet(12, 44, "m", reply(t, 9, 6, nil))
-	if m.Phase != Pulling {
+	if m.Phase != mirror.Pulling {
 		t.Fatal("it does not pull")
 	}
 	return m
@@ -318,11 +336,11 @@ func TestStream(t *testing.T) { // P17.4, P17.6
 		m.Stream(-1, b[30:])
 		m.Stream(api.MaxTime+1, b[30:])
 		m.Stream(15)
-		if m.Phase != Pulling || serialOf(t, m) != had {
+		if m.Phase != mirror.Pulling || serialOf(t, m) != had {
 			t.Fatalf("%v", m.Plan)
 		}
 		m.Stream(16, b[30:40], b[40:])
-		if m.Plan != (Plan{Next: 216, Time: 16}) || serialOf(t, m) != 6 {
+		if m.Plan != (mirror.Plan{Next: 216, Time: 16}) || serialOf(t, m) != 6 {
 			t.Errorf("%v", m.Plan)
 		}
 		z, _ := m.Held()
@@ -360,7 +378,7 @@ func TestStreamFails(t *testing.T) { // P17.4, P17.6
 	} {
 		m := pulling(t, holding(t, 5, 7, usual))
 		m.Stream(14, stream(t, c.id, c.l))
-		if m.Plan != (Plan{Turn: 1, Next: 34, Time: 7}) || serialOf(t, m) != 5 {
+		if m.Plan != (mirror.Plan{Turn: 1, Next: 34, Time: 7}) || serialOf(t, m) != 5 {
 			t.Errorf("case %d: %v", i, m.Plan)
 		}
 	}
@@ -372,23 +390,23 @@ func TestStreamFails(t *testing.T) { // P17.4, P17.6
 		m := pulling(t, s)
 		s.Disk().CrashAt(c.at, c.mask)
 		m.Stream(14, stream(t, 44, good))
-		if s.Disk().Up() || m.Plan != (Plan{Turn: 1, Next: 34, Time: 7}) || serialOf(t, m) != 5 {
+		if s.Disk().Up() || m.Plan != (mirror.Plan{Turn: 1, Next: 34, Time: 7}) || serialOf(t, m) != 5 {
 			t.Errorf("a fall at %d: %v", c.at, m.Plan)
 		}
 	}
 	m := pulling(t, empty(t))
 	m.Stream(14, make([]byte, api.MaxXfer))
-	if m.Plan != (Plan{Turn: 1, Next: 19}) {
+	if m.Plan != (mirror.Plan{Turn: 1, Next: 19}) {
 		t.Errorf("%v", m.Plan)
 	}
 	m = pulling(t, empty(t))
 	m.Closed(-1)
 	m.Closed(api.MaxTime + 1)
-	if m.Phase != Pulling {
+	if m.Phase != mirror.Pulling {
 		t.Errorf("%v", m.Plan)
 	}
 	m.Closed(20)
-	if m.Plan != (Plan{Turn: 1, Next: 25}) {
+	if m.Plan != (mirror.Plan{Turn: 1, Next: 25}) {
 		t.Errorf("%v", m.Plan)
 	}
 	m.Tick(25, 9)

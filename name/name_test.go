@@ -1,4 +1,4 @@
-package name
+package name_test
 
 import (
 	"math/rand"
@@ -7,6 +7,7 @@ import (
 	"testing"
 
 	"rhizome/api"
+	"rhizome/name"
 )
 
 // of makes a name without asking the package.
@@ -24,7 +25,7 @@ var long = strings.Repeat("x", 63)
 func TestMay(t *testing.T) { // P2.1
 	full := of(long, long, long, long[:61])
 	for _, n := range []string{"\x00", of("a"), of("a", "b"), of(long), full, of("\x00\xff.\\"), of("@["), of("z")} {
-		if !May(n) {
+		if !name.May(n) {
 			t.Errorf("%q may be", n)
 		}
 	}
@@ -35,7 +36,7 @@ func TestMay(t *testing.T) { // P2.1
 		"", "a", "\x01", "\x01a", "\x00\x00", of("a") + "\x00", of("a") + "b", "\x02a\x00", of("A"), of("aZ", "b"), of("b", "M"),
 		of(long + "x"), of(long, long, long, long[:62]), "\x40" + long + "x\x00", "\xc0\x0c", "\xff",
 	} {
-		if May(n) {
+		if name.May(n) {
 			t.Errorf("%q may not be", n)
 		}
 	}
@@ -43,7 +44,7 @@ func TestMay(t *testing.T) { // P2.1
 
 func TestLower(t *testing.T) { // P2.1
 	for s, want := range map[string]string{"": "", "AZ": "az", "az": "az", "@[`{": "@[`{", "\x01A\x00": "\x01a\x00", "\xc3\x84É": "\xc3\x84É", "K\xff": "k\xff", "\u212a": "\u212a"} {
-		if got := Lower(s); got != want {
+		if got := name.Lower(s); got != want {
 			t.Errorf("Lower(%q): %q", s, got)
 		}
 	}
@@ -61,16 +62,16 @@ func TestJoinAndLabels(t *testing.T) { // P2.1, P2.5
 		{[]string{long + "x", ""}, "", api.ErrLong}, {[]string{"", long + "x"}, "", api.ErrForm},
 		{[]string{long, long, long, long, long, ""}, "", api.ErrForm}, {[]string{long + "x"}, "", api.ErrLong},
 	} {
-		n, e := Join(c.labels...)
+		n, e := name.Join(c.labels...)
 		if n != c.want || e != c.e {
 			t.Errorf("Join(%q): %q, %d", c.labels, n, e)
 		}
-		if e == api.OK && of(Labels(n)...) != n {
-			t.Errorf("Labels(%q): %q", n, Labels(n))
+		if e == api.OK && of(name.Labels(n)...) != n {
+			t.Errorf("Labels(%q): %q", n, name.Labels(n))
 		}
 	}
 	for _, n := range []string{"\x00", "", of("A"), "\x01a", of("a") + "x"} {
-		if l := Labels(n); len(l) != 0 {
+		if l := name.Labels(n); len(l) != 0 {
 			t.Errorf("Labels(%q): %q", n, l)
 		}
 	}
@@ -82,7 +83,7 @@ func TestParse(t *testing.T) { // P2.2
 		`\000\255`: of("\x00\xff"), `\065`: of("a"), `\046.`: of("."), `a\.`: of("a."), `!~`: of("!~"), `\0921`: of(`\1`),
 		strings.Repeat("a.", 127): strings.Repeat("\x01a", 127) + "\x00",
 	} {
-		if n, e := Parse(text); n != want || e != api.OK {
+		if n, e := name.Parse(text); n != want || e != api.OK {
 			t.Errorf("Parse(%q): %q, %d", text, n, e)
 		}
 	}
@@ -93,7 +94,7 @@ func TestParse(t *testing.T) { // P2.2
 		long + "x": api.ErrLong, long + "x..": api.ErrForm, long + "x. ": api.ErrForm, long + `x.\256`: api.ErrForm,
 		strings.Repeat("a.", 128): api.ErrLong, strings.Repeat("a.", 128) + ".": api.ErrForm,
 	} {
-		if n, e := Parse(text); n != "" || e != want {
+		if n, e := name.Parse(text); n != "" || e != want {
 			t.Errorf("Parse(%q): %q, %d", text, n, e)
 		}
 	}
@@ -103,12 +104,12 @@ func TestPrint(t *testing.T) { // P2.2, P2.5
 	for n, want := range map[string]string{
 		"\x00": ".", of("ab", "c"): "ab.c.", of("a.b", `c\`): `a\.b.c\\.`, of("\x00 !~\x7f\xff"): `\000\032!~\127\255.`,
 	} {
-		if text, e := Print(n); text != want || e != api.OK {
+		if text, e := name.Print(n); text != want || e != api.OK {
 			t.Errorf("Print(%q): %q, %d", n, text, e)
 		}
 	}
 	for _, n := range []string{"", "a", of("A"), of("a") + "\x00"} {
-		if text, e := Print(n); text != "" || e != api.ErrName {
+		if text, e := name.Print(n); text != "" || e != api.ErrName {
 			t.Errorf("Print(%q): %q, %d", n, text, e)
 		}
 	}
@@ -117,8 +118,8 @@ func TestPrint(t *testing.T) { // P2.2, P2.5
 			continue
 		}
 		n := of("x"+string([]byte{byte(c)}), string([]byte{byte(c), 'y'}))
-		text, _ := Print(n)
-		if back, e := Parse(text); back != n || e != api.OK {
+		text, _ := name.Print(n)
+		if back, e := name.Parse(text); back != n || e != api.OK {
 			t.Errorf("Parse of Print(%q): %q, %d", n, back, e)
 		}
 	}
@@ -137,12 +138,12 @@ func TestCompareIsRFC4034(t *testing.T) { // P2.3, P2.5
 			} else if i > j {
 				want = 1
 			}
-			if got := Compare(a, b); got != want {
+			if got := name.Compare(a, b); got != want {
 				t.Errorf("Compare(%q, %q): %d", a, b, got)
 			}
 		}
 	}
-	if Compare(of("a", "b"), of("z", "a")) != 1 {
+	if name.Compare(of("a", "b"), of("z", "a")) != 1 {
 		t.Error("the example")
 	}
 	r := rand.New(rand.NewSource(2))
@@ -154,10 +155,10 @@ func TestCompareIsRFC4034(t *testing.T) { // P2.3, P2.5
 		}
 		l = append(l, of(labels...))
 	}
-	sort.Slice(l, func(i, j int) bool { return Compare(l[i], l[j]) < 0 })
+	sort.Slice(l, func(i, j int) bool { return name.Compare(l[i], l[j]) < 0 })
 	for i := range l {
 		for j := range l {
-			if c := Compare(l[i], l[j]); i < j && c > 0 || c == 0 && l[i] != l[j] || Under(l[j], l[i]) && c > 0 {
+			if c := name.Compare(l[i], l[j]); i < j && c > 0 || c == 0 && l[i] != l[j] || name.Under(l[j], l[i]) && c > 0 {
 				t.Fatalf("%q, %q: %d", l[i], l[j], c)
 			}
 		}
@@ -173,21 +174,21 @@ func TestUnder(t *testing.T) { // P2.3
 		{of("ab"), of("b"), false}, {of("b"), of("a", "b"), false}, {of("a", "b"), of("a"), false}, {of("x\x01b"), of("b"), false},
 		{of("A", "b"), of("b"), false}, {of("a", "B"), of("B"), false}, {"", "", false}, {of("a"), "", false}, {"a", "a", false}, {of("x\x00"), "\x00\x00", false},
 	} {
-		if Under(c.n, c.zone) != c.want {
+		if name.Under(c.n, c.zone) != c.want {
 			t.Errorf("Under(%q, %q)", c.n, c.zone)
 		}
 	}
 }
 
 func TestParent(t *testing.T) { // P2.3
-	if p, ok := Parent(of("a", "b")); p != of("b") || !ok {
+	if p, ok := name.Parent(of("a", "b")); p != of("b") || !ok {
 		t.Errorf("%q, %t", p, ok)
 	}
-	if p, ok := Parent(of("a")); p != "\x00" || !ok {
+	if p, ok := name.Parent(of("a")); p != "\x00" || !ok {
 		t.Errorf("%q, %t", p, ok)
 	}
 	for _, n := range []string{"\x00", "", of("A", "b"), "\x01a", of("a") + "x"} {
-		if p, ok := Parent(n); p != "" || ok {
+		if p, ok := name.Parent(n); p != "" || ok {
 			t.Errorf("Parent(%q): %q", n, p)
 		}
 	}
@@ -203,7 +204,7 @@ func TestCommon(t *testing.T) { // P2.3
 		{[]string{of("a", "b", "c"), of("x", "b", "c"), of("y", "c")}, of("c")}, {[]string{""}, ""}, {[]string{of("A")}, ""}, {[]string{of("a"), ""}, ""}, {[]string{"", of("a")}, ""},
 		{[]string{of("a"), of("b"), "x"}, ""},
 	} {
-		if got := Common(c.l[0], c.l[1:]...); got != c.want {
+		if got := name.Common(c.l[0], c.l[1:]...); got != c.want {
 			t.Errorf("Common(%q): %q", c.l, got)
 		}
 	}
@@ -211,14 +212,14 @@ func TestCommon(t *testing.T) { // P2.3
 
 func TestArgumentsStay(t *testing.T) { // P2.4
 	l := []string{"A", "b", "c"}
-	n, _ := Join(l[:2]...)
-	labels := Labels(n)
+	n, _ := name.Join(l[:2]...)
+	labels := name.Labels(n)
 	labels[0] = "q"
-	if l[0] != "A" || l[2] != "c" || Labels(n)[0] != "a" {
-		t.Errorf("%q, %q", l, Labels(n))
+	if l[0] != "A" || l[2] != "c" || name.Labels(n)[0] != "a" {
+		t.Errorf("%q, %q", l, name.Labels(n))
 	}
 	more := []string{of("a"), of("b")}
-	Common(of("a"), more[:1]...)
+	name.Common(of("a"), more[:1]...)
 	if more[0] != of("a") || more[1] != of("b") {
 		t.Errorf("%q", more)
 	}

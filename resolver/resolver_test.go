@@ -1,4 +1,4 @@
-package resolver
+package resolver_test
 
 import (
 	"fmt"
@@ -16,6 +16,7 @@ import (
 	"rhizome/md"
 	"rhizome/name"
 	"rhizome/rdata"
+	"rhizome/resolver"
 	"rhizome/sets"
 	"rhizome/slots"
 	"rhizome/table"
@@ -94,8 +95,8 @@ func store(t *testing.T, zones ...*zone.Zone) *slots.Store {
 	return s
 }
 
-func begun(t *testing.T, s *slots.Store, masters ...string) *Resolver {
-	r, e := New(5, 100, s, hints(), masters...)
+func begun(t *testing.T, s *slots.Store, masters ...string) *resolver.Resolver {
+	r, e := resolver.New(5, 100, s, hints(), masters...)
 	if e != api.OK {
 		t.Fatal(e)
 	}
@@ -110,10 +111,10 @@ func asked(id int, text string, kind int) []byte {
 }
 
 // told tells the answers to clients of what went out, each as from, ID, rcode and how many records.
-func told(t *testing.T, l []Out) []string {
+func told(t *testing.T, l []resolver.Out) []string {
 	var all []string
 	for _, o := range l {
-		if o.Kind != ToClient {
+		if o.Kind != resolver.ToClient {
 			continue
 		}
 		m, e := wire.Decode(o.Bytes)
@@ -125,16 +126,16 @@ func told(t *testing.T, l []Out) []string {
 	return all
 }
 
-func markOf(t *testing.T, o Out) (table.Mark, api.Question) {
+func markOf(t *testing.T, o resolver.Out) (table.Mark, api.Question) {
 	m, e := wire.Decode(o.Bytes)
 	if e != api.OK || m.QR || len(m.Q) != 1 {
 		t.Fatalf("%v", o)
 	}
-	return table.Mark{ID: m.ID, Port: o.Port, To: o.To, TCP: o.Kind == AskTCP}, m.Q[0]
+	return table.Mark{ID: m.ID, Port: o.Port, To: o.To, TCP: o.Kind == resolver.AskTCP}, m.Q[0]
 }
 
 // serve answers an Ask or AskTCP from the world.
-func serve(t *testing.T, r *Resolver, now int, o Out, w map[string]*zone.Zone) {
+func serve(t *testing.T, r *resolver.Resolver, now int, o resolver.Out, w map[string]*zone.Zone) {
 	k, q := markOf(t, o)
 	b, e := wire.Encode(auth.Message(k.ID, q, auth.Answer(w[o.To], q)), api.MaxMsg)
 	if e != api.OK {
@@ -144,11 +145,11 @@ func serve(t *testing.T, r *Resolver, now int, o Out, w map[string]*zone.Zone) {
 }
 
 // run serves all that goes out, and tells all of it.
-func run(t *testing.T, r *Resolver, now int, w map[string]*zone.Zone) []Out {
-	var all []Out
+func run(t *testing.T, r *resolver.Resolver, now int, w map[string]*zone.Zone) []resolver.Out {
+	var all []resolver.Out
 	for l := r.Outs(); len(l) > 0; l = r.Outs() {
 		for _, o := range l {
-			if o.Kind == Ask || o.Kind == AskTCP {
+			if o.Kind == resolver.Ask || o.Kind == resolver.AskTCP {
 				serve(t, r, now, o, w)
 			}
 		}
@@ -157,7 +158,7 @@ func run(t *testing.T, r *Resolver, now int, w map[string]*zone.Zone) []Out {
 	return all
 }
 
-func kinds(l []Out) []int {
+func kinds(l []resolver.Out) []int {
 	var all []int
 	for _, o := range l {
 		all = append(all, o.Kind)
@@ -165,12 +166,18 @@ func kinds(l []Out) []int {
 	return all
 }
 
+func TestKinds(t *testing.T) {
+	if got := [...]int{resolver.ToClient, resolver.Ask, resolver.AskTCP, resolver.AskMaster, resolver.PullMaster}; got != [...]int{1, 2, 3, 4, 5} {
+		t.Errorf("%v", got)
+	}
+}
+
 func TestNew(t *testing.T) { // P23.1
 	for i, c := range []struct {
 		seed, most int
 		e          api.Errno
 	}{{0, 1, api.OK}, {math.MaxInt, 2000, api.OK}, {-1, 9, api.ErrRange}, {5, 0, api.ErrRange}, {5, 2001, api.ErrRange}} {
-		r, e := New(c.seed, c.most, store(t), nil)
+		r, e := resolver.New(c.seed, c.most, store(t), nil)
 		if e != c.e || (r == nil) != (e != api.OK) || r != nil && (r.Open() != 0 || r.Engine() == nil || len(r.Outs()) != 0) {
 			t.Errorf("case %d: %d", i, e)
 		}
@@ -191,8 +198,22 @@ func TestBadTimes(t *testing.T) { // P23.2
 		r.Close(now)
 		r.Time(now)
 	}
-	if len(r.Outs()) != 0 || r.Open() != 0 || r.drawn != begun(t, store(t)).drawn {
+	if len(r.Outs()) != 0 || r.Open() != 0 {
 		t.Error("something was done")
+	}
+	r.Time(api.MaxTime)
+	l := r.Outs()
+	if k, _ := markOf(t, l[0]); len(l) != 1 || k.ID != draws(5, 1)[0] {
+		t.Errorf("it was drawn: %v", l)
+	}
+}
+
+func TestTheLastTime(t *testing.T) { // P23.2
+	r := begun(t, store(t), "m")
+	r.Time(api.MaxTime)
+	r.Client(api.MaxTime, "c", false, asked(1, "x.", api.ANY))
+	if l := r.Outs(); !slices.Equal(kinds(l), []int{resolver.AskMaster, resolver.ToClient}) {
+		t.Errorf("%v", l)
 	}
 }
 
@@ -208,7 +229,7 @@ func TestClient(t *testing.T) { // P23.2, P23.3
 		t.Errorf("%v", l)
 	}
 	r.Client(0, "c", false, asked(3, "www.com.", 1))
-	if l := r.Outs(); !slices.Equal(kinds(l), []int{Ask}) || l[0].To != h(1) || l[0].Port < 1024 || r.Open() != 1 || len(r.Outs()) != 0 {
+	if l := r.Outs(); !slices.Equal(kinds(l), []int{resolver.Ask}) || l[0].To != h(1) || l[0].Port < 1024 || r.Open() != 1 || len(r.Outs()) != 0 {
 		t.Errorf("%v", l)
 	}
 	for i := range 21 {
@@ -257,11 +278,11 @@ func TestCopyIsTheRoot(t *testing.T) { // P23.2, P23.5
 		t.Errorf("the copy is held: %v", l)
 	}
 	r.Client(399, "c", false, asked(2, "none2.", 1))
-	if l := r.Outs(); len(l) != 1 || l[0].Kind != ToClient {
+	if l := r.Outs(); len(l) != 1 || l[0].Kind != resolver.ToClient {
 		t.Errorf("%v", l)
 	}
 	r.Client(400, "c", false, asked(3, "none3.", 1))
-	if l := r.Outs(); len(l) != 1 || l[0].Kind != Ask || l[0].To != h(1) {
+	if l := r.Outs(); len(l) != 1 || l[0].Kind != resolver.Ask || l[0].To != h(1) {
 		t.Errorf("too old: %v", l)
 	}
 	// What the zone refers to is asked behind an answer, too: each call lays the copy.
@@ -285,13 +306,13 @@ func draws(seed, count int) []int {
 
 func TestMasters(t *testing.T) { // P23.2, P23.5
 	for _, seed := range []int{5, 1<<32 - 1, 1<<33 + 7} {
-		r, e := New(seed, 100, store(t), hints(), "m", "o")
+		r, e := resolver.New(seed, 100, store(t), hints(), "m", "o")
 		if e != api.OK {
 			t.Fatal(e)
 		}
 		d := draws(seed, 9)
-		id := func(o Out, kind int) int {
-			k, q := markOf(t, Out{Bytes: o.Bytes[2*(kind-AskMaster):]})
+		id := func(o resolver.Out, kind int) int {
+			k, q := markOf(t, resolver.Out{Bytes: o.Bytes[2*(kind-resolver.AskMaster):]})
 			if o.Kind != kind || o.To != "m" || o.Port != 0 || q.Name != "\x00" {
 				t.Fatalf("%v", o)
 			}
@@ -299,7 +320,7 @@ func TestMasters(t *testing.T) { // P23.2, P23.5
 		}
 		r.Time(0)
 		l := r.Outs()
-		if len(l) != 1 || id(l[0], AskMaster) != d[0] {
+		if len(l) != 1 || id(l[0], resolver.AskMaster) != d[0] {
 			t.Fatalf("seed %d: %v", seed, l)
 		}
 		r.Time(1)
@@ -311,13 +332,13 @@ func TestMasters(t *testing.T) { // P23.2, P23.5
 		r.Master(2, "o", b)
 		r.Master(2, "m", b)
 		l = r.Outs()
-		if len(l) != 1 || id(l[0], PullMaster) != d[3] {
+		if len(l) != 1 || id(l[0], resolver.PullMaster) != d[3] {
 			t.Fatalf("%v", l)
 		}
 		s, _ := axfr.Make(d[3], "\x00", 3, z.Records()...)
 		r.Pull(3, s[:50])
 		r.Client(3, "c", false, asked(1, "none.", 1))
-		if l := r.Outs(); len(l) != 1 || l[0].Kind != Ask {
+		if l := r.Outs(); len(l) != 1 || l[0].Kind != resolver.Ask {
 			t.Errorf("%v", l)
 		}
 		r.Pull(3, s[50:])
@@ -346,7 +367,7 @@ func TestMasters(t *testing.T) { // P23.2, P23.5
 }
 
 func TestOrder(t *testing.T) { // P23.2: Sends, Outs, Results
-	r, e := New(5, 100, store(t), sets.Group(ns(".", "a."), a("a.", 1), a("a.", 2)), "m")
+	r, e := resolver.New(5, 100, store(t), sets.Group(ns(".", "a."), a("a.", 1), a("a.", 2)), "m")
 	if e != api.OK {
 		t.Fatal(e)
 	}
@@ -355,13 +376,13 @@ func TestOrder(t *testing.T) { // P23.2: Sends, Outs, Results
 	r.Client(3, "d", false, asked(2, "y.", 1))
 	r.Outs()
 	r.Time(50)
-	if l := r.Outs(); !slices.Equal(kinds(l), []int{Ask, ToClient}) {
+	if l := r.Outs(); !slices.Equal(kinds(l), []int{resolver.Ask, resolver.ToClient}) {
 		t.Errorf("%v", l)
 	}
 	r.Client(50, "e", false, asked(3, "z.", 1))
 	r.Outs()
 	r.Time(60)
-	if l := r.Outs(); !slices.Equal(kinds(l), []int{AskMaster, Ask, ToClient}) {
+	if l := r.Outs(); !slices.Equal(kinds(l), []int{resolver.AskMaster, resolver.Ask, resolver.ToClient}) {
 		t.Errorf("%v", l)
 	}
 }
@@ -375,7 +396,7 @@ func TestTCP(t *testing.T) { // P23.2
 	b, _ := wire.Encode(m, 512)
 	r.Answer(0, k, b)
 	l := r.Outs()
-	if !slices.Equal(kinds(l), []int{AskTCP}) || l[0].To != h(1) {
+	if !slices.Equal(kinds(l), []int{resolver.AskTCP}) || l[0].To != h(1) {
 		t.Fatalf("%v", l)
 	}
 	serve(t, r, 0, l[0], world(t))
@@ -420,7 +441,7 @@ func TestTruth(t *testing.T) { // P23.6, P23.8
 					q := api.Question{Name: n(text), Type: kind, Class: 1}
 					rcode, an := follow(w, q)
 					want := front.Reply(front.Client{Question: q, ID: id, Size: api.MaxMsg, RD: true}, rcode, an...)
-					if o := all[len(all)-1]; o.Kind != ToClient || string(o.Bytes) != string(want) || len(told(t, all)) != 1 {
+					if o := all[len(all)-1]; o.Kind != resolver.ToClient || string(o.Bytes) != string(want) || len(told(t, all)) != 1 {
 						t.Errorf("%s %d: %x, not %x", text, kind, o.Bytes, want)
 					}
 				}
@@ -435,11 +456,11 @@ func TestEachIsAnsweredOnce(t *testing.T) { // P23.6, P23.7
 	for range 60 {
 		r := begun(t, store(t), "m")
 		open := map[int]bool{}
-		var out []Out
+		var out []resolver.Out
 		now, id := 0, 0
 		take := func() {
 			for _, o := range r.Outs() {
-				if o.Kind != ToClient {
+				if o.Kind != resolver.ToClient {
 					out = append(out, o)
 					continue
 				}
@@ -470,7 +491,7 @@ func TestEachIsAnsweredOnce(t *testing.T) { // P23.6, P23.7
 				r.Pull(now, b)
 			case len(out) > 0:
 				at := rnd.Intn(len(out))
-				if o := out[at]; o.Kind == Ask || o.Kind == AskTCP {
+				if o := out[at]; o.Kind == resolver.Ask || o.Kind == resolver.AskTCP {
 					serve(t, r, now, o, w)
 				}
 				out = slices.Delete(out, at, at+1)
@@ -490,7 +511,7 @@ func TestEachIsAnsweredOnce(t *testing.T) { // P23.6, P23.7
 
 func TestListsAreNew(t *testing.T) { // P23.4
 	l := hints()
-	r, _ := New(5, 100, store(t), l)
+	r, _ := resolver.New(5, 100, store(t), l)
 	for i := range l {
 		l[i].Data[0] = "!"
 	}

@@ -1,4 +1,4 @@
-package script
+package script_test
 
 import (
 	"fmt"
@@ -14,11 +14,16 @@ import (
 	"rhizome/md"
 	"rhizome/name"
 	"rhizome/rdata"
+	"rhizome/script"
 	"rhizome/sets"
 	"rhizome/wire"
 	"rhizome/world"
 	"rhizome/zone"
 )
+
+const root = "\x00"
+
+func h(i int) string { return string([]byte{192, 0, 2, byte(i)}) }
 
 func n(text string) string {
 	s, e := name.Parse(text)
@@ -55,7 +60,7 @@ func lines(l []api.RR) []string {
 
 func TestRoot(t *testing.T) { // P25.1
 	for _, serial := range []int{0, 1, 6, 7, 1<<32 - 1} {
-		z, e := Root(serial)
+		z, e := script.Root(serial)
 		if e != api.OK || z.Apex() != root || md.Check(root, z.Records()...) != api.OK {
 			t.Fatalf("%d: %d", serial, e)
 		}
@@ -71,7 +76,7 @@ func TestRoot(t *testing.T) { // P25.1
 		}
 	}
 	for _, serial := range []int{-1, 1 << 32, math.MinInt, math.MaxInt} {
-		if z, e := Root(serial); z != nil || e != api.ErrRange {
+		if z, e := script.Root(serial); z != nil || e != api.ErrRange {
 			t.Errorf("%d: %d", serial, e)
 		}
 	}
@@ -79,7 +84,7 @@ func TestRoot(t *testing.T) { // P25.1
 
 func TestChild(t *testing.T) { // P25.1
 	for _, c := range []struct{ n, ns, www int }{{0, 2, 100}, {1, 3, 101}, {2, 4, 102}, {49, 3, 149}, {50, 4, 100}, {1<<32 - 1, 2, 100 + (1<<32-1)%50}} {
-		z, e := Child(n("x.y."), c.n)
+		z, e := script.Child(n("x.y."), c.n)
 		if e != api.OK || z.Apex() != n("x.y.") {
 			t.Fatalf("%d: %d", c.n, e)
 		}
@@ -99,19 +104,19 @@ func TestChild(t *testing.T) { // P25.1
 		n    int
 		e    api.Errno
 	}{{"", 0, api.ErrName}, {"com", -1, api.ErrName}, {"\x03COM\x00", 0, api.ErrName}, {root, 0, api.ErrName}, {n("com."), -1, api.ErrRange}, {n("com."), 1 << 32, api.ErrRange}, {long(251), 0, api.OK}, {long(252), 0, api.ErrLong}, {long(252), -1, api.ErrLong}, {long(255), 0, api.ErrLong}} {
-		if z, e := Child(c.apex, c.n); e != c.e || (z == nil) != (e != api.OK) {
+		if z, e := script.Child(c.apex, c.n); e != c.e || (z == nil) != (e != api.OK) {
 			t.Errorf("case %d: %d", i, e)
 		}
 	}
 }
 
 func TestHintsAndServers(t *testing.T) { // P25.2
-	l := Hints()
+	l := script.Hints()
 	if len(l) != 2 || !slices.Equal(lines(l[:1][0].Records()), []string{". 1 60 2 a."}) || !slices.Equal(lines(l[1].Records()), []string{"a. 1 60 1 192 0 2 1"}) {
 		t.Errorf("%v", l)
 	}
 	for serial, count := range map[int]int{0: 1, 7: 1, -1: 0, 1 << 32: 0} {
-		l := Servers(serial)
+		l := script.Servers(serial)
 		var got []string
 		for _, s := range l {
 			for _, z := range s.Zones {
@@ -129,7 +134,7 @@ func TestHintsAndServers(t *testing.T) { // P25.2
 func TestAsk(t *testing.T) { // P25.3
 	texts := []string{"www.com.", "al.com.", "www.net.", "al.net.", "www.dn.com.", "none.com.", "none.", "www.org.", "."}
 	for _, k := range []int{0, 1, 8, 9, 17, 18, 26, 27, 35, 36, 100, 65535, 65536, 65536*9 + 5, math.MaxInt} {
-		m, e := wire.Decode(Ask(k))
+		m, e := wire.Decode(script.Ask(k))
 		want := wire.Ask(k%65536, api.Question{Name: n(texts[k%9]), Type: []int{1, 2, 5, 6}[k/9%4], Class: 1})
 		want.RD = true
 		if e != api.OK || !wire.Same(m, want) {
@@ -137,7 +142,7 @@ func TestAsk(t *testing.T) { // P25.3
 		}
 	}
 	for _, k := range []int{-1, math.MinInt} {
-		if string(Ask(k)) != string(Ask(0)) {
+		if string(script.Ask(k)) != string(script.Ask(0)) {
 			t.Errorf("%d", k)
 		}
 	}
@@ -153,22 +158,22 @@ func TestActs(t *testing.T) { // P25.3
 		k, x, y byte
 		want    world.Act
 	}{
-		{0, 0, 0, world.Act{Kind: world.Query, From: "c0", Bytes: Ask(0)}}, {4, 5, 200, world.Act{Kind: world.Query, From: "c2", Bytes: Ask(5*256 + 200)}}, {16 + 3, 4, 201, world.Act{Kind: world.Query, From: "c1", Bytes: Ask(4*256 + 201), Flag: true}}, {2, 255, 255, world.Act{Kind: world.Query, From: "c0", Bytes: Ask(65535), Flag: true}},
+		{0, 0, 0, world.Act{Kind: world.Query, From: "c0", Bytes: script.Ask(0)}}, {4, 5, 200, world.Act{Kind: world.Query, From: "c2", Bytes: script.Ask(5*256 + 200)}}, {16 + 3, 4, 201, world.Act{Kind: world.Query, From: "c1", Bytes: script.Ask(4*256 + 201), Flag: true}}, {2, 255, 255, world.Act{Kind: world.Query, From: "c0", Bytes: script.Ask(65535), Flag: true}},
 		{5, 4, 6, world.Act{Kind: world.Deliver, K: 1, N: 2}}, {9, 5, 230, world.Act{Kind: world.Deliver, K: 2, N: 1}}, {240 + 7, 3, 231, world.Act{Kind: world.Deliver, N: 2, Flag: true}}, {10, 8, 99, world.Act{Kind: world.Lose, K: 2}},
 		{11, 15, 1, world.Act{Kind: world.Tick, N: 7}}, {12, 15, 1, world.Act{Kind: world.Tick, N: 140}}, {12, 8, 1, world.Act{Kind: world.Tick}},
-		{13, 6, 3, world.Act{Kind: world.Serve, Server: Servers(6)[0]}}, {13, 7, 4, world.Act{Kind: world.Serve, Server: Servers(7)[1]}}, {13, 7, 255, world.Act{Kind: world.Serve, Server: Servers(7)[0]}}, {13, 255, 5, world.Act{Kind: world.Serve, Server: Servers(255)[2]}},
+		{13, 6, 3, world.Act{Kind: world.Serve, Server: script.Servers(6)[0]}}, {13, 7, 4, world.Act{Kind: world.Serve, Server: script.Servers(7)[1]}}, {13, 7, 255, world.Act{Kind: world.Serve, Server: script.Servers(7)[0]}}, {13, 255, 5, world.Act{Kind: world.Serve, Server: script.Servers(255)[2]}},
 		{14, 200, 9, world.Act{Kind: world.Plan, N: 3, Bytes: []byte{9}}}, {14, 5, 0, world.Act{Kind: world.Plan, N: 6, Bytes: []byte{0}}}, {14, 201, 9, world.Act{Kind: world.Fall, Bytes: []byte{9}}},
-		{15, 77, 99, world.Act{Kind: world.Start, N: 77}}, {15, 77, 240, world.Act{Kind: world.Start, N: 77}}, {15, 77, 241, world.Act{Kind: world.Start, N: 77, Flag: true}}, {15, 77, 141, world.Act{Kind: world.Start, N: 77}},
+		{15, 77, 99, world.Act{Kind: world.Start, N: 77}}, {15, 201, 99, world.Act{Kind: world.Start, N: 201}}, {15, 255, 255, world.Act{Kind: world.Start, N: 255, Flag: true}}, {14, 255, 255, world.Act{Kind: world.Fall, Bytes: []byte{255}}}, {15, 77, 240, world.Act{Kind: world.Start, N: 77}}, {15, 77, 241, world.Act{Kind: world.Start, N: 77, Flag: true}}, {15, 77, 141, world.Act{Kind: world.Start, N: 77}},
 		{15, 77, 100, world.Act{Kind: world.Raw, K: 2, Bytes: []byte{77, 100, 15}}}, {31, 78, 140, world.Act{Kind: world.Raw, Bytes: []byte{78, 140, 31}}},
 	} {
-		if l := Acts(c.k, c.x, c.y); len(l) != 1 || !sameAct(l[0], c.want) {
+		if l := script.Acts(c.k, c.x, c.y); len(l) != 1 || !sameAct(l[0], c.want) {
 			t.Errorf("%d %d %d: %v, not %v", c.k, c.x, c.y, l, c.want)
 		}
 	}
-	if len(Acts()) != 0 || len(Acts(1)) != 0 || len(Acts(1, 2)) != 0 || len(Acts(1, 2, 3, 4, 5)) != 1 || len(Acts(make([]byte, 1500)...)) != 500 || len(Acts(make([]byte, 1503)...)) != 500 || len(Acts(make([]byte, 1499)...)) != 499 {
+	if len(script.Acts()) != 0 || len(script.Acts(1)) != 0 || len(script.Acts(1, 2)) != 0 || len(script.Acts(1, 2, 3, 4, 5)) != 1 || len(script.Acts(make([]byte, 1500)...)) != 500 || len(script.Acts(make([]byte, 1503)...)) != 500 || len(script.Acts(make([]byte, 1499)...)) != 499 {
 		t.Error("how many")
 	}
-	if l := Acts(10, 1, 0, 11, 2, 0); !sameAct(l[0], world.Act{Kind: world.Lose, K: 1}) || !sameAct(l[1], world.Act{Kind: world.Tick, N: 2}) {
+	if l := script.Acts(10, 1, 0, 11, 2, 0); !sameAct(l[0], world.Act{Kind: world.Lose, K: 1}) || !sameAct(l[1], world.Act{Kind: world.Tick, N: 2}) {
 		t.Errorf("%v", l)
 	}
 }
@@ -183,19 +188,19 @@ func TestLine(t *testing.T) { // P25.4
 	}{
 		{q, nil, "www.com. 1"}, {q, []sets.Set{s, {}, {Key: sets.Key{Type: -3}, Data: []string{"a"}}}, "www.com. 1 28:01ff 28: -3:61"}, {api.Question{Name: "", Type: -7}, nil, "? -7"}, {api.Question{Name: root}, nil, ". 0"}, {api.Question{Name: "\x01A\x00"}, []sets.Set{s}, "? 0 28:01ff 28:"},
 	} {
-		if got := Line(c.q, c.l...); got != c.want {
+		if got := script.Line(c.q, c.l...); got != c.want {
 			t.Errorf("%q, not %q", got, c.want)
 		}
 	}
 }
 
 func TestListsAreNew(t *testing.T) { // P25.5
-	Hints()[0].Data[0], Ask(0)[0], Servers(1)[1].Zones[0] = "!", 9, nil
+	script.Hints()[0].Data[0], script.Ask(0)[0], script.Servers(1)[1].Zones[0] = "!", 9, nil
 	b := []byte{15, 77, 100}
-	l := Acts(b...)
+	l := script.Acts(b...)
 	b[1] = 0
-	Acts(13, 1, 1)[0].Server.Zones[0] = nil
-	if Hints()[0].Data[0] != n("a.") || Ask(0)[0] != 0 || Servers(1)[1].Zones[0] == nil || string(l[0].Bytes) != "Md\x0f" || Acts(13, 1, 1)[0].Server.Zones[0] == nil {
+	script.Acts(13, 1, 1)[0].Server.Zones[0] = nil
+	if script.Hints()[0].Data[0] != n("a.") || script.Ask(0)[0] != 0 || script.Servers(1)[1].Zones[0] == nil || string(l[0].Bytes) != "Md\x0f" || script.Acts(13, 1, 1)[0].Server.Zones[0] == nil {
 		t.Error("what is handed out is kept")
 	}
 }
@@ -221,11 +226,11 @@ func follow(l []world.Server, q api.Question) (int, []sets.Set) {
 func TestEachQuestionIsAnsweredAsTheZonesSay(t *testing.T) { // P25.6
 	for _, serial := range []int{6, 7} {
 		for _, pulled := range []bool{false, true} {
-			w, e := world.New(40, serial, 100, Hints(), h(1))
+			w, e := world.New(40, serial, 100, script.Hints(), h(1))
 			if e != api.OK {
 				t.Fatal(e)
 			}
-			l := Servers(serial)
+			l := script.Servers(serial)
 			for _, s := range l {
 				w.Do(world.Act{Kind: world.Serve, Server: s})
 			}
@@ -237,16 +242,16 @@ func TestEachQuestionIsAnsweredAsTheZonesSay(t *testing.T) { // P25.6
 			}
 			for k := range 144 {
 				before := len(w.Told())
-				w.Do(world.Act{Kind: world.Query, From: "c", Flag: true, Bytes: Ask(k)})
+				w.Do(world.Act{Kind: world.Query, From: "c", Flag: true, Bytes: script.Ask(k)})
 				for len(w.Out()) > 0 {
 					w.Do(world.Act{Kind: world.Deliver, Flag: k%3 == 0})
 				}
-				m, _ := wire.Decode(Ask(k))
+				m, _ := wire.Decode(script.Ask(k))
 				rcode, an := follow(l, m.Q[0])
 				want := front.Reply(front.Client{Question: m.Q[0], ID: k, Size: api.MaxMsg, RD: true}, rcode, an...)
 				told := w.Told()
 				if len(told) != before+1 || string(told[before].Bytes) != string(want) {
-					t.Errorf("%s: %x, not %x", Line(m.Q[0], an...), told[before:], want)
+					t.Errorf("%s: %x, not %x", script.Line(m.Q[0], an...), told[before:], want)
 				}
 			}
 		}
@@ -259,14 +264,14 @@ func TestWorldsOfBytes(t *testing.T) { // P25.3: the whole holds in each of them
 		b := make([]byte, 900)
 		r.Read(b)
 		run := func() ([]world.Told, *world.World) {
-			w, e := world.New(20+int(b[0])%20, 5, 1+int(b[1])%60, Hints(), h(1), h(2))
+			w, e := world.New(20+int(b[0])%20, 5, 1+int(b[1])%60, script.Hints(), h(1), h(2))
 			if e != api.OK {
 				t.Fatal(e)
 			}
-			for _, s := range Servers(int(b[2])) {
+			for _, s := range script.Servers(int(b[2])) {
 				w.Do(world.Act{Kind: world.Serve, Server: s})
 			}
-			w.Run(Acts(b...)...)
+			w.Run(script.Acts(b...)...)
 			return w.Told(), w
 		}
 		told, w := run()

@@ -1,4 +1,4 @@
-package sha
+package sha_test
 
 import (
 	"bytes"
@@ -6,14 +6,16 @@ import (
 	"encoding/hex"
 	"math/rand"
 	"testing"
+
+	"rhizome/sha"
 )
 
 func TestSum(t *testing.T) { // P8.1
 	const abc = "cb00753f45a35e8bb5a03d699ac65007272c32ab0eded1631a8b605a43ff5bed8086072ba1e7cc2358baeca134c825a7"
-	if s := hex.EncodeToString(Sum([]byte("abc"))); s != abc {
+	if s := hex.EncodeToString(sha.Sum([]byte("abc"))); s != abc {
 		t.Error(s)
 	}
-	if s := hex.EncodeToString(Sum([]byte("a"), nil, []byte("bc"), []byte{})); s != abc {
+	if s := hex.EncodeToString(sha.Sum([]byte("a"), nil, []byte("bc"), []byte{})); s != abc {
 		t.Error(s)
 	}
 	r := rand.New(rand.NewSource(8))
@@ -21,34 +23,18 @@ func TestSum(t *testing.T) { // P8.1
 	r.Read(b)
 	for n := range b {
 		want := sha512.Sum384(b[:n])
-		if s := Sum(b[:n]); !bytes.Equal(s, want[:]) {
+		if s := sha.Sum(b[:n]); !bytes.Equal(s, want[:]) {
 			t.Fatalf("of %d bytes: %x", n, s)
 		}
 	}
 	b = make([]byte, 1<<20)
 	want := sha512.Sum384(b)
-	if s := Sum(b); !bytes.Equal(s, want[:]) {
+	if s := sha.Sum(b); !bytes.Equal(s, want[:]) {
 		t.Errorf("of 2^20 bytes: %x", s)
 	}
 	want = sha512.Sum384(nil)
-	if s := Sum(); !bytes.Equal(s, want[:]) || !bytes.Equal(New().Sum(), s) {
+	if s := sha.Sum(); !bytes.Equal(s, want[:]) || !bytes.Equal(sha.New().Sum(), s) {
 		t.Errorf("of nothing: %x", s)
-	}
-}
-
-func TestEndingTellsGreatLengths(t *testing.T) { // P8.1
-	for _, length := range []int{0, 1, 111, 112, 127, 128, 1<<31 - 1, 1 << 31, 1 << 40} {
-		b := ending(length)
-		if (length+len(b))%128 != 0 || b[0] != 0x80 || len(b) > 128+16 {
-			t.Errorf("%d: %x", length, b)
-		}
-		n := 0
-		for _, c := range b[len(b)-8:] {
-			n = n<<8 | int(c)
-		}
-		if n != 8*length || len(bytes.Trim(b[1:len(b)-8], "\x00")) != 0 {
-			t.Errorf("%d: %x", length, b)
-		}
 	}
 }
 
@@ -57,7 +43,7 @@ func TestPiecesDoNotCount(t *testing.T) { // P8.1, P8.3
 	for range 200 {
 		b := make([]byte, r.Intn(600))
 		r.Read(b)
-		s := New()
+		s := sha.New()
 		for rest, had := b, 0; len(rest) > 0; {
 			n := 1 + r.Intn(len(rest))
 			m := r.Intn(n + 1)
@@ -69,7 +55,7 @@ func TestPiecesDoNotCount(t *testing.T) { // P8.1, P8.3
 			}
 		}
 		s.Write()
-		if s.Len() != len(b) || !bytes.Equal(s.Sum(), Sum(b)) {
+		if s.Len() != len(b) || !bytes.Equal(s.Sum(), sha.Sum(b)) {
 			t.Fatalf("%d", len(b))
 		}
 	}
@@ -77,19 +63,19 @@ func TestPiecesDoNotCount(t *testing.T) { // P8.1, P8.3
 
 func TestCopyGoesItsOwnWay(t *testing.T) { // P8.1, P8.2
 	b := []byte("begun")
-	s := New()
+	s := sha.New()
 	s.Write(b)
 	b[0] = '!'
 	c := s.Copy()
 	c.Write([]byte(", copied"))
 	s.Write([]byte(", kept"))
-	if !bytes.Equal(s.Sum(), Sum([]byte("begun, kept"))) || !bytes.Equal(c.Sum(), Sum([]byte("begun, copied"))) || s.Len() != 11 || c.Len() != 13 {
+	if !bytes.Equal(s.Sum(), sha.Sum([]byte("begun, kept"))) || !bytes.Equal(c.Sum(), sha.Sum([]byte("begun, copied"))) || s.Len() != 11 || c.Len() != 13 {
 		t.Error("they are mixed")
 	}
 	x := s.Sum()
 	_ = append(x, "more"...)
 	x[0]++
-	if !bytes.Equal(s.Sum(), Sum([]byte("begun, kept"))) || len(x) != 48 {
+	if !bytes.Equal(s.Sum(), sha.Sum([]byte("begun, kept"))) || len(x) != 48 {
 		t.Error("a sum that was handed out counts")
 	}
 }

@@ -1,4 +1,4 @@
-package slots
+package slots_test
 
 import (
 	"hash/crc32"
@@ -11,6 +11,7 @@ import (
 	"rhizome/disk"
 	"rhizome/image"
 	"rhizome/rdata"
+	"rhizome/slots"
 	"rhizome/zone"
 )
 
@@ -39,14 +40,14 @@ func made(t *testing.T, serial, size int) *zone.Zone {
 
 func formatted(t *testing.T, sectors int) *disk.Disk {
 	d, e := disk.New(sectors)
-	if e != api.OK || Format(d) != api.OK {
+	if e != api.OK || slots.Format(d) != api.OK {
 		t.Fatal(e)
 	}
 	return d
 }
 
-func opened(t *testing.T, d *disk.Disk) *Store {
-	s, e := Open(d)
+func opened(t *testing.T, d *disk.Disk) *slots.Store {
+	s, e := slots.Open(d)
 	if e != api.OK || s.Disk() != d {
 		t.Fatal(e)
 	}
@@ -54,9 +55,9 @@ func opened(t *testing.T, d *disk.Disk) *Store {
 }
 
 // serial tells which zone a store has: -1, if it is empty.
-func serial(t *testing.T, s *Store) int {
+func serial(t *testing.T, s *slots.Store) int {
 	i, ok := s.Image()
-	if ok != (i != nil) || !ok && s.Super != (Super{}) {
+	if ok != (i != nil) || !ok && s.Super != (slots.Super{}) {
 		t.Fatalf("%v", s.Super)
 	}
 	if !ok {
@@ -69,7 +70,7 @@ func serial(t *testing.T, s *Store) int {
 }
 
 func TestSuper(t *testing.T) { // P15.1
-	u := Super{Gen: 0x010203040506, Slot: 1, Size: 0x0a0b0c, Time: api.MaxTime, Sum: 1<<32 - 1}
+	u := slots.Super{Gen: 0x010203040506, Slot: 1, Size: 0x0a0b0c, Time: api.MaxTime, Sum: 1<<32 - 1}
 	ahead := "RS" + "\x01\x02\x03\x04\x05\x06" + "\x01" + "\x0a\x0b\x0c" + maxTime + "\xff\xff\xff\xff"
 	crc := crc32.ChecksumIEEE([]byte(ahead))
 	want := ahead + string([]byte{byte(crc >> 24), byte(crc >> 16), byte(crc >> 8), byte(crc)}) + strings.Repeat("\x00", 256-26)
@@ -77,13 +78,13 @@ func TestSuper(t *testing.T) { // P15.1
 	if string(b) != want || e != api.OK {
 		t.Errorf("%x, %d", b, e)
 	}
-	for _, u := range []Super{u, {Gen: 1}, {Gen: top, Size: 1<<24 - 1, Slot: 1}} {
+	for _, u := range []slots.Super{u, {Gen: 1}, {Gen: top, Size: 1<<24 - 1, Slot: 1}} {
 		b, e := u.Bytes()
-		if g, ok := Read(b); !ok || g != u || e != api.OK {
+		if g, ok := slots.Read(b); !ok || g != u || e != api.OK {
 			t.Errorf("%v: %v, %d", u, g, e)
 		}
 	}
-	for _, u := range []Super{
+	for _, u := range []slots.Super{
 		{}, {Gen: -1}, {Gen: top + 1}, {Gen: 1, Slot: 2}, {Gen: 1, Slot: -1}, {Gen: 1, Size: -1}, {Gen: 1, Size: 1 << 24}, {Gen: 1, Time: -1}, {Gen: 1, Time: api.MaxTime + 1}, {Gen: 1, Sum: -1}, {Gen: 1, Sum: 1 << 32}, {Gen: math.MinInt},
 	} {
 		if b, e := u.Bytes(); len(b) > 0 || e != api.ErrRange {
@@ -94,13 +95,13 @@ func TestSuper(t *testing.T) { // P15.1
 		for _, bit := range []byte{1, 16, 128} {
 			c := slices.Clone(b)
 			c[k] ^= bit
-			if g, ok := Read(c); ok || g != (Super{}) {
+			if g, ok := slots.Read(c); ok || g != (slots.Super{}) {
 				t.Errorf("byte %d: %v", k, g)
 			}
 		}
 	}
 	for _, c := range [][]byte{nil, b[:255], append(slices.Clone(b), 0), make([]byte, 256)} {
-		if g, ok := Read(c); ok || g != (Super{}) {
+		if g, ok := slots.Read(c); ok || g != (slots.Super{}) {
 			t.Errorf("%d bytes: %v", len(c), g)
 		}
 	}
@@ -108,7 +109,7 @@ func TestSuper(t *testing.T) { // P15.1
 	bad := []byte("RS\x00\x00\x00\x00\x00\x00\x00\x00\x00\x00\x00\x00\x00\x00\x00\x00\x00\x00\x00\x00")
 	crc = crc32.ChecksumIEEE(bad)
 	bad = append(append(bad, byte(crc>>24), byte(crc>>16), byte(crc>>8), byte(crc)), make([]byte, 230)...)
-	if g, ok := Read(bad); ok {
+	if g, ok := slots.Read(bad); ok {
 		t.Errorf("%v", g)
 	}
 }
@@ -131,16 +132,22 @@ func TestFormatAndOpen(t *testing.T) { // P15.2
 	if serial(t, o) != 9 || o.Super != s.Super {
 		t.Errorf("%v", o.Super)
 	}
-	if Format(d) != api.OK || serial(t, opened(t, d)) != -1 || serial(t, s) != 9 {
+	image, _ := d.Read(1)
+	if slots.Format(d) != api.OK || serial(t, opened(t, d)) != -1 || serial(t, s) != 9 {
 		t.Error("Format")
 	}
+	b, _ := d.Read(0)
+	after, _ := d.Read(1)
+	if string(b) != strings.Repeat("\x00", 256) || string(after) != string(image) || d.Pending() != 0 {
+		t.Error("Format writes sector 0 alone")
+	}
 	d.Crash()
-	if s, e := Open(d); s != nil || e != api.ErrDown || Format(d) != api.ErrDown {
+	if s, e := slots.Open(d); s != nil || e != api.ErrDown || slots.Format(d) != api.ErrDown {
 		t.Errorf("%d", e)
 	}
 	d.Reboot()
 	d.CrashAt(1)
-	if Format(d) != api.ErrDown {
+	if slots.Format(d) != api.ErrDown {
 		t.Error("Format of one that falls")
 	}
 	// What was there before it was ever formatted counts for nothing.
@@ -152,7 +159,7 @@ func TestFormatAndOpen(t *testing.T) { // P15.2
 }
 
 // put lays an image and a Super down by hand.
-func put(t *testing.T, d *disk.Disk, at int, bytes string, u Super) {
+func put(t *testing.T, d *disk.Disk, at int, bytes string, u slots.Super) {
 	b, e := u.Bytes()
 	if e != api.OK || d.Write(at, []byte(bytes)) != api.OK || d.Write(0, b) != api.OK {
 		t.Fatal(e)
@@ -162,16 +169,16 @@ func put(t *testing.T, d *disk.Disk, at int, bytes string, u Super) {
 func TestOpenTakesWhatFits(t *testing.T) { // P15.2
 	bytes, _ := image.Encode(made(t, 5, 600))
 	sum := int(crc32.ChecksumIEEE([]byte(bytes)))
-	good := Super{Gen: 4, Slot: 0, Size: len(bytes), Time: 3, Sum: sum}
+	good := slots.Super{Gen: 4, Slot: 0, Size: len(bytes), Time: 3, Sum: sum}
 	for i, c := range []struct {
 		at     int
 		bytes  string
-		change func(u *Super)
+		change func(u *slots.Super)
 		want   int
 	}{
-		{1, bytes, func(u *Super) {}, 5}, {4, bytes, func(u *Super) { u.Slot = 1 }, 5}, {4, bytes, func(u *Super) {}, -1}, {1, bytes, func(u *Super) { u.Slot = 1 }, -1}, {1, bytes, func(u *Super) { u.Sum++ }, -1}, {1, bytes, func(u *Super) { u.Size++ }, -1},
-		{1, bytes, func(u *Super) { u.Size-- }, -1}, {1, bytes, func(u *Super) { u.Size = 0; u.Sum = 0 }, -1}, {1, bytes, func(u *Super) { u.Size = 1<<24 - 1 }, -1}, {1, bytes, func(u *Super) { u.Size = 256 * 8; u.Sum = 1 }, -1},
-		{1, "rubbish", func(u *Super) { u.Size = 7; u.Sum = int(crc32.ChecksumIEEE([]byte("rubbish"))) }, -1},
+		{1, bytes, func(u *slots.Super) {}, 5}, {4, bytes, func(u *slots.Super) { u.Slot = 1 }, 5}, {4, bytes, func(u *slots.Super) {}, -1}, {1, bytes, func(u *slots.Super) { u.Slot = 1 }, -1}, {1, bytes, func(u *slots.Super) { u.Sum++ }, -1}, {1, bytes, func(u *slots.Super) { u.Size++ }, -1},
+		{1, bytes, func(u *slots.Super) { u.Size-- }, -1}, {1, bytes, func(u *slots.Super) { u.Size = 0; u.Sum = 0 }, -1}, {1, bytes, func(u *slots.Super) { u.Size = 1<<24 - 1 }, -1}, {1, bytes, func(u *slots.Super) { u.Size = 256 * 8; u.Sum = 1 }, -1},
+		{1, "rubbish", func(u *slots.Super) { u.Size = 7; u.Sum = int(crc32.ChecksumIEEE([]byte("rubbish"))) }, -1},
 	} {
 		d := formatted(t, 8) // slots of 3 sectors
 		u := good
@@ -185,7 +192,7 @@ func TestOpenTakesWhatFits(t *testing.T) { // P15.2
 	// An image that goes on beyond its slot is read there, too.
 	bytes, _ = image.Encode(made(t, 6, 1100))
 	d := formatted(t, 8)
-	put(t, d, 1, bytes, Super{Gen: 1, Size: len(bytes), Sum: int(crc32.ChecksumIEEE([]byte(bytes)))})
+	put(t, d, 1, bytes, slots.Super{Gen: 1, Size: len(bytes), Sum: int(crc32.ChecksumIEEE([]byte(bytes)))})
 	if s := opened(t, d); serial(t, s) != 6 || len(bytes) <= s.Room() {
 		t.Errorf("%v", s.Super)
 	}
@@ -213,7 +220,7 @@ func TestInstall(t *testing.T) { // P15.3
 			t.Fatalf("case %d: %d", i, e)
 		}
 		bytes, _ := image.Encode(c.z)
-		want := Super{Gen: i + 1, Slot: c.slot, Size: len(bytes), Time: c.time, Sum: int(crc32.ChecksumIEEE([]byte(bytes)))}
+		want := slots.Super{Gen: i + 1, Slot: c.slot, Size: len(bytes), Time: c.time, Sum: int(crc32.ChecksumIEEE([]byte(bytes)))}
 		if s.Super != want || serial(t, s) != c.z.Soa().Serial || d.Pending() != 0 {
 			t.Errorf("case %d: %v", i, s.Super)
 		}
@@ -233,12 +240,38 @@ func TestInstall(t *testing.T) { // P15.3
 	}
 }
 
+func TestInstallFillsASlot(t *testing.T) { // P15.2, P15.3
+	// With an uneven number of sectors, slot 1 goes up to the disk's end.
+	filled := 0
+	for size := 1; filled < 3; size++ {
+		z := made(t, 1, size)
+		bytes, _ := image.Encode(z)
+		if len(bytes)%256 != 0 {
+			continue
+		}
+		filled++
+		d := formatted(t, 1+2*(len(bytes)/256))
+		s := opened(t, d)
+		for slot := range 2 {
+			if e := s.Install(z, 5); e != api.OK || s.Slot != slot || s.Room() != len(bytes) {
+				t.Errorf("slot %d: %d", slot, e)
+			}
+			if o := opened(t, d); serial(t, o) != 1 || o.Super != s.Super {
+				t.Errorf("slot %d is not read", slot)
+			}
+		}
+		if e := s.Install(made(t, 1, size+1), 5); e != api.ErrFull {
+			t.Errorf("one byte more: %d", e)
+		}
+	}
+}
+
 func TestTheLastGeneration(t *testing.T) { // P15.3
 	bytes, _ := image.Encode(made(t, 5, 0))
 	for gen, want := range map[int]api.Errno{top - 1: api.OK, top: api.ErrLimit} {
 		for _, touch := range []bool{true, false} {
 			d := formatted(t, 12)
-			put(t, d, 1, bytes, Super{Gen: gen, Size: len(bytes), Sum: int(crc32.ChecksumIEEE([]byte(bytes)))})
+			put(t, d, 1, bytes, slots.Super{Gen: gen, Size: len(bytes), Sum: int(crc32.ChecksumIEEE([]byte(bytes)))})
 			s := opened(t, d)
 			e := api.OK
 			if touch {
@@ -310,11 +343,11 @@ func TestFalls(t *testing.T) { // P15.5
 }
 
 func TestListsAreNew(t *testing.T) { // P15.4
-	u := Super{Gen: 1}
+	u := slots.Super{Gen: 1}
 	b, _ := u.Bytes()
 	c, _ := u.Bytes()
 	b[0] = '!'
-	g, _ := Read(c)
+	g, _ := slots.Read(c)
 	c[2] = '!'
 	if string(c[:2]) != "RS" || g != u {
 		t.Errorf("%q, %v", c[:2], g)

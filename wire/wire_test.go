@@ -1,4 +1,4 @@
-package wire
+package wire_test
 
 import (
 	"bytes"
@@ -12,6 +12,7 @@ import (
 	"rhizome/name"
 	"rhizome/num"
 	"rhizome/rdata"
+	"rhizome/wire"
 )
 
 const (
@@ -19,47 +20,48 @@ const (
 	www  = "\x03www\x03com\x00"
 	al   = "\x02al\x03com\x00"
 	addr = "\x01\x02\x03\x04"
+	root = "\x00"
 )
 
 func rr(n string, kind, ttl int, data string) api.RR {
 	return api.RR{Name: n, Type: kind, Class: api.IN, TTL: ttl, Data: data}
 }
 
-func asked(l ...api.Question) Message { return Ask(7, l...) }
+func asked(l ...api.Question) wire.Message { return wire.Ask(7, l...) }
 
 func TestFlags(t *testing.T) { // P5.1
 	for _, c := range []struct {
-		h    Header
+		h    wire.Header
 		want int
 	}{
-		{Header{}, 0}, {Header{ID: -9, QR: true}, 0x8000}, {Header{Opcode: 15}, 0x7800}, {Header{Opcode: 1}, 0x0800}, {Header{AA: true}, 0x0400}, {Header{TC: true}, 0x0200},
-		{Header{RD: true}, 0x0100}, {Header{RA: true}, 0x0080}, {Header{Rcode: 15}, 15}, {Header{Opcode: 15, Rcode: 15, QR: true, AA: true, TC: true, RD: true, RA: true}, 0xff8f},
+		{wire.Header{}, 0}, {wire.Header{ID: -9, QR: true}, 0x8000}, {wire.Header{Opcode: 15}, 0x7800}, {wire.Header{Opcode: 1}, 0x0800}, {wire.Header{AA: true}, 0x0400}, {wire.Header{TC: true}, 0x0200},
+		{wire.Header{RD: true}, 0x0100}, {wire.Header{RA: true}, 0x0080}, {wire.Header{Rcode: 15}, 15}, {wire.Header{Opcode: 15, Rcode: 15, QR: true, AA: true, TC: true, RD: true, RA: true}, 0xff8f},
 	} {
 		if n, e := c.h.Flags(); n != c.want || e != api.OK {
 			t.Errorf("%v: %x, %d", c.h, n, e)
 		}
-		if n, e := (Message{Header: c.h}).Flags(); n != c.want || e != api.OK {
+		if n, e := (wire.Message{Header: c.h}).Flags(); n != c.want || e != api.OK {
 			t.Errorf("%v: %x, %d", c.h, n, e)
 		}
 		h := c.h
 		h.ID = 3
 		for _, more := range []int{0, 0x10, 0x20, 0x40, 0x70} {
-			if g, e := Unflag(3, c.want|more); g != h || e != api.OK {
+			if g, e := wire.Unflag(3, c.want|more); g != h || e != api.OK {
 				t.Errorf("Unflag(%x): %v, %d", c.want|more, g, e)
 			}
 		}
 	}
-	for _, h := range []Header{{Opcode: 16}, {Opcode: -1}, {Rcode: 16}, {Rcode: -1}, {Rcode: math.MinInt}} {
+	for _, h := range []wire.Header{{Opcode: 16}, {Opcode: -1}, {Rcode: 16}, {Rcode: -1}, {Rcode: math.MinInt}} {
 		if n, e := h.Flags(); n != 0 || e != api.ErrRange {
 			t.Errorf("%v: %x, %d", h, n, e)
 		}
 	}
 	for _, c := range [][2]int{{-1, 0}, {65536, 0}, {0, -1}, {0, 65536}, {math.MaxInt, math.MinInt}} {
-		if h, e := Unflag(c[0], c[1]); h != (Header{}) || e != api.ErrRange {
+		if h, e := wire.Unflag(c[0], c[1]); h != (wire.Header{}) || e != api.ErrRange {
 			t.Errorf("%v: %v, %d", c, h, e)
 		}
 	}
-	if h, e := Unflag(65535, 65535); h.ID != 65535 || !h.RA || e != api.OK {
+	if h, e := wire.Unflag(65535, 65535); h.ID != 65535 || !h.RA || e != api.OK {
 		t.Errorf("%v, %d", h, e)
 	}
 }
@@ -67,25 +69,25 @@ func TestFlags(t *testing.T) { // P5.1
 func TestMay(t *testing.T) { // P5.1
 	good := rr(www, api.A, 5, addr)
 	opt := api.RR{Name: root, Type: api.OPT, Class: 65535, TTL: 1<<32 - 1, Data: strings.Repeat("o", 1000)}
-	with := func(f func(m *Message)) Message {
-		m := Message{Q: []api.Question{{Name: www, Type: 65535, Class: 65535}}, An: []api.RR{good}, Ns: []api.RR{good}, Ar: []api.RR{good, opt}}
+	with := func(f func(m *wire.Message)) wire.Message {
+		m := wire.Message{Q: []api.Question{{Name: www, Type: 65535, Class: 65535}}, An: []api.RR{good}, Ns: []api.RR{good}, Ar: []api.RR{good, opt}}
 		f(&m)
 		return m
 	}
 	for i, c := range []struct {
-		f    func(m *Message)
+		f    func(m *wire.Message)
 		want bool
 	}{
-		{func(m *Message) {}, true}, {func(m *Message) { m.ID = 65535; m.Opcode = 15; m.Rcode = 15 }, true}, {func(m *Message) { m.ID = 65536 }, false}, {func(m *Message) { m.ID = -1 }, false},
-		{func(m *Message) { m.Opcode = 16 }, false}, {func(m *Message) { m.Rcode = -1 }, false}, {func(m *Message) { m.Q[0].Name = "x" }, false}, {func(m *Message) { m.Q[0].Type = 65536 }, false},
-		{func(m *Message) { m.Q[0].Class = -1 }, false}, {func(m *Message) { m.An[0].TTL = -1 }, false}, {func(m *Message) { m.Ns[0].Data = "123" }, false}, {func(m *Message) { m.Ar[0].Name = "" }, false},
-		{func(m *Message) { m.An[0] = opt }, false}, {func(m *Message) { m.Ns[0] = opt }, false}, {func(m *Message) { m.Ar[0] = opt }, true}, {func(m *Message) { m.Ar[1].Name = com }, false},
-		{func(m *Message) { m.Ar[1].Class = 65536 }, false}, {func(m *Message) { m.Ar[1].TTL = 1 << 32 }, false}, {func(m *Message) { m.Ar[1].Data += "o" }, false}, {func(m *Message) { m.Ar[1].TTL = -1 }, false},
-		{func(m *Message) { m.Add(1, slices.Repeat([]api.RR{good}, 295)...) }, true}, {func(m *Message) { m.Add(1, slices.Repeat([]api.RR{good}, 296)...) }, false},
+		{func(m *wire.Message) {}, true}, {func(m *wire.Message) { m.ID = 65535; m.Opcode = 15; m.Rcode = 15 }, true}, {func(m *wire.Message) { m.ID = 65536 }, false}, {func(m *wire.Message) { m.ID = -1 }, false},
+		{func(m *wire.Message) { m.Opcode = 16 }, false}, {func(m *wire.Message) { m.Rcode = -1 }, false}, {func(m *wire.Message) { m.Q[0].Name = "x" }, false}, {func(m *wire.Message) { m.Q[0].Type = 65536 }, false},
+		{func(m *wire.Message) { m.Q[0].Class = -1 }, false}, {func(m *wire.Message) { m.An[0].TTL = -1 }, false}, {func(m *wire.Message) { m.Ns[0].Data = "123" }, false}, {func(m *wire.Message) { m.Ar[0].Name = "" }, false},
+		{func(m *wire.Message) { m.An[0] = opt }, false}, {func(m *wire.Message) { m.Ns[0] = opt }, false}, {func(m *wire.Message) { m.Ar[0] = opt }, true}, {func(m *wire.Message) { m.Ar[1].Name = com }, false},
+		{func(m *wire.Message) { m.Ar[1].Class = 65536 }, false}, {func(m *wire.Message) { m.Ar[1].TTL = 1 << 32 }, false}, {func(m *wire.Message) { m.Ar[1].Data += "o" }, false}, {func(m *wire.Message) { m.Ar[1].TTL = -1 }, false},
+		{func(m *wire.Message) { m.Add(1, slices.Repeat([]api.RR{good}, 295)...) }, true}, {func(m *wire.Message) { m.Add(1, slices.Repeat([]api.RR{good}, 296)...) }, false},
 	} {
-		if m := with(c.f); May(m) != c.want {
+		if m := with(c.f); wire.May(m) != c.want {
 			t.Errorf("case %d", i)
-		} else if _, e := Encode(m, 1); e == api.ErrForm == c.want {
+		} else if _, e := wire.Encode(m, 1); e == api.ErrForm == c.want {
 			t.Errorf("Encode, case %d: %d", i, e)
 		}
 	}
@@ -93,13 +95,13 @@ func TestMay(t *testing.T) { // P5.1
 
 func TestAddAllAsk(t *testing.T) { // P5.2
 	x, y, z := rr(www, api.A, 1, addr), rr(al, api.A, 2, addr), rr(com, api.A, 3, addr)
-	m := Ask(9, api.Question{Name: com, Type: 2, Class: 1})
+	m := wire.Ask(9, api.Question{Name: com, Type: 2, Class: 1})
 	if m.ID != 9 || m.RD || m.QR || !slices.Equal(m.Q, []api.Question{{Name: com, Type: 2, Class: 1}}) || len(m.All()) != 0 {
 		t.Errorf("%v", m)
 	}
 	for _, k := range []int{0, 4, -1, math.MaxInt} {
 		before := m
-		if m.Add(k, x) || !Same(m, before) {
+		if m.Add(k, x) || !wire.Same(m, before) {
 			t.Errorf("section %d: %v", k, m)
 		}
 	}
@@ -109,13 +111,13 @@ func TestAddAllAsk(t *testing.T) { // P5.2
 	if !slices.Equal(m.An, []api.RR{x, y, x}) || !slices.Equal(m.Ns, []api.RR{y}) || !slices.Equal(m.Ar, []api.RR{z}) || !slices.Equal(m.All(), []api.RR{x, y, x, y, z}) {
 		t.Errorf("%v", m)
 	}
-	if !Same(asked(), Message{Header: Header{ID: 7}}) {
+	if !wire.Same(asked(), wire.Message{Header: wire.Header{ID: 7}}) {
 		t.Error("Ask without questions")
 	}
 }
 
 func TestEncodeTellsNamesByPlaces(t *testing.T) { // P5.3
-	m := Message{Header: Header{ID: 0x102, QR: true, Rcode: 3}, Q: []api.Question{{Name: www, Type: 1, Class: 1}}}
+	m := wire.Message{Header: wire.Header{ID: 0x102, QR: true, Rcode: 3}, Q: []api.Question{{Name: www, Type: 1, Class: 1}}}
 	m.Add(1, rr(www, api.CNAME, 5, al), rr(al, api.MX, 6, "\x00\x09"+com), rr(root, api.NS, 7, root))
 	soa, _ := rdata.PutSoa(rdata.Soa{M: "\x01a\x02al\x03com\x00", R: www, Serial: 1})
 	m.Add(2, rr(com, api.SOA, 8, soa), rr("\x03xom\x00", 99, 1, www))
@@ -127,46 +129,46 @@ func TestEncodeTellsNamesByPlaces(t *testing.T) { // P5.3
 		"\xc0\x10\x00\x06\x00\x01\x00\x00\x00\x08\x00\x1a\x01a\xc0\x25\xc0\x0c" + soa[len(soa)-20:] +
 		"\x03xom\x00\x00\x63\x00\x01\x00\x00\x00\x01\x00\x09" + www + // xom at 108
 		"\x03www\xc0\x6c\x00\x01\x00\x01\x00\x00\x00\x09\x00\x04" + addr
-	b, e := Encode(m, 512)
+	b, e := wire.Encode(m, 512)
 	if string(b) != want || e != api.OK {
 		t.Errorf("%x, %d\n%x", b, e, want)
 	}
-	if g, e := Decode(b); !Same(g, m) || e != api.OK {
+	if g, e := wire.Decode(b); !wire.Same(g, m) || e != api.OK {
 		t.Errorf("%v, %d", g, e)
 	}
 	for _, most := range []int{len(want), math.MaxInt} {
-		if b, e := Encode(m, most); len(b) != len(want) || e != api.OK {
+		if b, e := wire.Encode(m, most); len(b) != len(want) || e != api.OK {
 			t.Errorf("most %d: %d", most, e)
 		}
 	}
 	for _, most := range []int{len(want) - 1, 0, -1, math.MinInt} {
-		if b, e := Encode(m, most); len(b) != 0 || e != api.ErrLong {
+		if b, e := wire.Encode(m, most); len(b) != 0 || e != api.ErrLong {
 			t.Errorf("most %d: %d", most, e)
 		}
 	}
-	if b, e := Encode(Ask(1, api.Question{Name: root, Type: api.NS, Class: api.IN}), 17); string(b) != "\x00\x01\x00\x00\x00\x01\x00\x00\x00\x00\x00\x00\x00\x00\x02\x00\x01" || e != api.OK {
+	if b, e := wire.Encode(wire.Ask(1, api.Question{Name: root, Type: api.NS, Class: api.IN}), 17); string(b) != "\x00\x01\x00\x00\x00\x01\x00\x00\x00\x00\x00\x00\x00\x00\x02\x00\x01" || e != api.OK {
 		t.Errorf("the example: %x, %d", b, e)
 	}
 }
 
 func TestEncodeAtMaxMsg(t *testing.T) { // P5.3
-	m := Message{}
+	m := wire.Message{}
 	m.Add(1, slices.Repeat([]api.RR{rr(root, 99, 1, strings.Repeat("d", 988))}, 15)...) // 999 bytes each
 	m.Add(1, rr(root, 99, 1, strings.Repeat("d", 1000)))                                // 1011
 	room := api.MaxMsg - 12 - 15*999 - 1011
 	m.An[15].Data = m.An[15].Data[:1000+room]
-	b, e := Encode(m, math.MaxInt)
+	b, e := wire.Encode(m, math.MaxInt)
 	if len(b) != api.MaxMsg || e != api.OK {
 		t.Fatalf("%d, %d", len(b), e)
 	}
-	if g, e := Decode(b); !Same(g, m) || e != api.OK {
+	if g, e := wire.Decode(b); !wire.Same(g, m) || e != api.OK {
 		t.Errorf("%d", e)
 	}
 	m.An[0].Data += "d"
-	if b, e := Encode(m, math.MaxInt); len(b) != 0 || e != api.ErrLong {
+	if b, e := wire.Encode(m, math.MaxInt); len(b) != 0 || e != api.ErrLong {
 		t.Errorf("%d, %d", len(b), e)
 	}
-	if _, e := Decode(append(b, 0)); e != api.ErrLong {
+	if _, e := wire.Decode(append(b, 0)); e != api.ErrLong {
 		t.Errorf("%d", e)
 	}
 }
@@ -187,28 +189,28 @@ func TestDecodeNames(t *testing.T) { // P5.3
 		{"\x01a\xc0\x0b", "\x01a\x00", api.OK}, {"\x01a\xc0\x0c", "", api.ErrForm}, {"\xff\xff", "", api.ErrForm}, {"\x40" + strings.Repeat("a", 64) + "\x00", "", api.ErrForm}, {"\x80\x00", "", api.ErrForm},
 		{strings.Repeat("\x01a", 127) + "\x00", strings.Repeat("\x01a", 127) + "\x00", api.OK}, {strings.Repeat("\x01a", 128) + "\x00", "", api.ErrForm}, {strings.Repeat("\x01a", 127) + "\x01a\xc0\x0b", "", api.ErrForm},
 	} {
-		m, e := Decode(message(1, 0, 0, 0, c.rest+"\x00\x01\x00\x01"))
-		if e != c.e || e == api.OK && (len(m.Q) != 1 || m.Q[0] != api.Question{Name: c.want, Type: 1, Class: 1}) || e != api.OK && !Same(m, Message{}) {
+		m, e := wire.Decode(message(1, 0, 0, 0, c.rest+"\x00\x01\x00\x01"))
+		if e != c.e || e == api.OK && (len(m.Q) != 1 || m.Q[0] != api.Question{Name: c.want, Type: 1, Class: 1}) || e != api.OK && !wire.Same(m, wire.Message{}) {
 			t.Errorf("case %d: %v, %d", i, m, e)
 		}
 	}
 	// Places must lead ahead, step by step: 20 tells 16, which tells 12.
-	m, e := Decode(message(1, 1, 0, 0, "\x01x\x00"+"\x00\x01\x00\x01"+"\x01y\xc0\x0c"+"\x00\x02\x00\x01\x00\x00\x00\x01\x00\x02"+"\xc0\x13"))
+	m, e := wire.Decode(message(1, 1, 0, 0, "\x01x\x00"+"\x00\x01\x00\x01"+"\x01y\xc0\x0c"+"\x00\x02\x00\x01\x00\x00\x00\x01\x00\x02"+"\xc0\x13"))
 	if e != api.OK || m.An[0].Name != "\x01y\x01x\x00" || m.An[0].Data != "\x01y\x01x\x00" {
 		t.Errorf("%v, %d", m, e)
 	}
 	// A place that is gone to and tells a later one, or itself.
 	for _, rest := range []string{"\xc0\x15\x00\x01\x00\x01", "\x01a\xc0\x11\xc0\x0e\x00\x01\x00\x01"} {
-		if m, e := Decode(message(1, 0, 0, 0, rest)); e != api.ErrForm {
+		if m, e := wire.Decode(message(1, 0, 0, 0, rest)); e != api.ErrForm {
 			t.Errorf("%x: %v, %d", rest, m, e)
 		}
 	}
 	// The first name's label holds a place that tells its own beginning: 13 is gone to, and says 13.
-	if m, e := Decode(message(2, 0, 0, 0, "\x02\xc0\x0d\x00"+"\x00\x01\x00\x01"+"\xc0\x0d"+"\x00\x01\x00\x01")); e != api.ErrForm {
+	if m, e := wire.Decode(message(2, 0, 0, 0, "\x02\xc0\x0d\x00"+"\x00\x01\x00\x01"+"\xc0\x0d"+"\x00\x01\x00\x01")); e != api.ErrForm {
 		t.Errorf("%v, %d", m, e)
 	}
 	// 14 says 20, which lies ahead of the second name, but not of 14.
-	if m, e := Decode(message(2, 0, 0, 0, "\x03a\xc0\x14\x00"+"\x00\x01\x00\x01"+"\x00\xc0\x0e"+"\x00\x01\x00\x01")); e == api.OK {
+	if m, e := wire.Decode(message(2, 0, 0, 0, "\x03a\xc0\x14\x00"+"\x00\x01\x00\x01"+"\x00\xc0\x0e"+"\x00\x01\x00\x01")); e == api.OK {
 		t.Errorf("%v, %d", m, e)
 	}
 }
@@ -220,6 +222,7 @@ func TestDecodeErrors(t *testing.T) { // P5.3
 		return "\x00" + s + data
 	}
 	soa := strings.Repeat("\x00", 22)
+	const some = api.Errno(-1) // some error, where it is open which one it is
 	for i, c := range []struct {
 		b []byte
 		e api.Errno
@@ -228,9 +231,9 @@ func TestDecodeErrors(t *testing.T) { // P5.3
 		{message(1, 0, 0, 0, ""), api.ErrShort}, {message(1, 0, 0, 0, "\x00\x00\x01\x00"), api.ErrShort}, {message(1, 0, 0, 0, "\x03www"), api.ErrShort}, {message(1, 0, 0, 0, "\x03ww"), api.ErrShort},
 		{message(1, 0, 0, 0, "\x01a\xc0"), api.ErrShort}, {message(0, 1, 0, 0, head+"\x00\x04\x01\x02\x03"), api.ErrShort}, {message(0, 1, 0, 0, head+"\x00"), api.ErrShort}, {message(0, 1, 0, 0, head+"\x00\x04"+addr), api.OK},
 		{message(0, 1, 0, 0, head+"\x00\x04"+addr+"x"), api.ErrLong}, {message(0, 1, 0, 0, head+"\x00\x03\x01\x02\x03"), api.ErrForm},
-		{message(0, 1, 0, 0, record(api.NS, "\x00")), api.OK}, {message(0, 1, 0, 0, record(api.NS, "\x00x")), api.ErrForm}, {message(0, 1, 0, 0, record(api.NS, "")), api.ErrForm},
-		{message(0, 2, 0, 0, record(api.NS, "\x01a")+record(api.NS, "\x00")), api.ErrForm}, {message(0, 1, 0, 0, record(api.MX, "\x00")), api.ErrForm}, {message(0, 1, 0, 0, record(api.MX, "\x00\x01\x00")), api.OK},
-		{message(0, 1, 0, 0, record(api.MX, "\x00\x01\x00x")), api.ErrForm}, {message(0, 1, 0, 0, record(api.SOA, soa)), api.OK}, {message(0, 1, 0, 0, record(api.SOA, soa[1:])), api.ErrForm}, {message(0, 1, 0, 0, record(api.SOA, soa+"x")), api.ErrForm},
+		{message(0, 1, 0, 0, record(api.NS, "\x00")), api.OK}, {message(0, 1, 0, 0, record(api.NS, "\x00x")), api.ErrForm}, {message(0, 1, 0, 0, record(api.NS, "")), some},
+		{message(0, 2, 0, 0, record(api.NS, "\x01a")+record(api.NS, "\x00")), some}, {message(0, 1, 0, 0, record(api.MX, "\x00")), some}, {message(0, 1, 0, 0, record(api.MX, "\x00\x01\x00")), api.OK},
+		{message(0, 1, 0, 0, record(api.MX, "\x00\x01\x00x")), api.ErrForm}, {message(0, 1, 0, 0, record(api.SOA, soa)), api.OK}, {message(0, 1, 0, 0, record(api.SOA, soa[1:])), some}, {message(0, 1, 0, 0, record(api.SOA, soa+"x")), api.ErrForm},
 		{message(0, 1, 0, 0, record(api.CNAME, "\xc0\x04")), api.OK}, {message(0, 1, 0, 0, record(api.CNAME, "\xc0\x17")), api.ErrForm}, {message(0, 1, 0, 0, record(api.TXT, "\x02a")), api.ErrForm},
 		{message(0, 0, 0, 1, record(api.OPT, "")), api.OK}, {message(0, 0, 1, 0, record(api.OPT, "")), api.ErrForm}, {message(0, 1, 0, 0, record(api.OPT, "")), api.ErrForm}, {message(0, 0, 0, 1, "\x01a"+record(api.OPT, "")), api.ErrForm},
 		{message(0, 0, 0, 1, record(api.AXFR, "")), api.ErrForm}, {message(0, 0, 0, 1, record(api.ANY, "")), api.ErrForm}, {message(0, 1, 0, 0, "\x00\x00\x63\x00\x01\x80\x00\x00\x00\x00\x00"), api.ErrForm},
@@ -238,38 +241,55 @@ func TestDecodeErrors(t *testing.T) { // P5.3
 		{message(0, 300, 0, 0, strings.Repeat(record(99, ""), 300)), api.OK}, {message(1, 300, 0, 0, "\x00\x00\x01\x00\x01"+strings.Repeat(record(99, ""), 300)), api.ErrLimit},
 		{message(0, 100, 100, 101, strings.Repeat(record(99, ""), 301)), api.ErrLimit},
 	} {
-		m, e := Decode(c.b)
-		if e != c.e || e != api.OK && !Same(m, Message{}) || e == api.OK && !May(m) {
+		m, e := wire.Decode(c.b)
+		if e != c.e && (c.e != some || e == api.OK) || e != api.OK && !wire.Same(m, wire.Message{}) || e == api.OK && !wire.May(m) {
 			t.Errorf("case %d: %v, %d", i, m, e)
 		}
 	}
 }
 
-func TestSame(t *testing.T) { // P5.3
-	base := func() Message {
-		x := []api.RR{rr(www, api.A, 1, addr)}
-		return Message{Header: Header{ID: 1}, Q: []api.Question{{Name: com, Type: 2, Class: 1}}, An: x, Ns: slices.Clone(x), Ar: slices.Clone(x)}
+func TestDecodeOfLongNamesAndMessages(t *testing.T) { // P5.3
+	label := strings.Repeat("x", 63)
+	long := "\x3f" + label + "\x3f" + label + "\x3f" + label + "\x3d" + label[:61] + "\x00"
+	m, e := wire.Decode(message(1, 0, 0, 0, long+"\x00\x01\x00\x01"))
+	if e != api.OK || m.Q[0].Name != long || len(long) != 255 {
+		t.Errorf("%d", e)
 	}
-	for i, f := range []func(m *Message){
-		func(m *Message) { m.ID = 2 }, func(m *Message) { m.RA = true }, func(m *Message) { m.Q[0].Type = 3 }, func(m *Message) { m.Q = nil }, func(m *Message) { m.An[0].TTL = 2 },
-		func(m *Message) { m.Ns = append(m.Ns, m.Ns[0]) }, func(m *Message) { m.Ar[0].Data = "4321" },
+	// More than MaxMsg bytes that would else be a message.
+	record := "\x00\x00\x63\x00\x01\x00\x00\x00\x05\x03\xe8" + strings.Repeat("d", 1000)
+	if _, e := wire.Decode(message(0, 15, 0, 0, strings.Repeat(record, 15))); e != api.OK {
+		t.Errorf("%d", e)
+	}
+	if m, e := wire.Decode(message(0, 16, 0, 0, strings.Repeat(record, 16))); e != api.ErrLong || !wire.Same(m, wire.Message{}) {
+		t.Errorf("%d", e)
+	}
+}
+
+func TestSame(t *testing.T) { // P5.3
+	base := func() wire.Message {
+		x := []api.RR{rr(www, api.A, 1, addr)}
+		return wire.Message{Header: wire.Header{ID: 1}, Q: []api.Question{{Name: com, Type: 2, Class: 1}}, An: x, Ns: slices.Clone(x), Ar: slices.Clone(x)}
+	}
+	for i, f := range []func(m *wire.Message){
+		func(m *wire.Message) { m.ID = 2 }, func(m *wire.Message) { m.RA = true }, func(m *wire.Message) { m.Q[0].Type = 3 }, func(m *wire.Message) { m.Q = nil }, func(m *wire.Message) { m.An[0].TTL = 2 },
+		func(m *wire.Message) { m.Ns = append(m.Ns, m.Ns[0]) }, func(m *wire.Message) { m.Ar[0].Data = "4321" },
 	} {
 		a, b := base(), base()
-		if !Same(a, b) {
+		if !wire.Same(a, b) {
 			t.Fatal("not the same")
 		}
 		f(&b)
-		if Same(a, b) || Same(b, a) {
+		if wire.Same(a, b) || wire.Same(b, a) {
 			t.Errorf("case %d", i)
 		}
 	}
-	if !Same(Message{}, Message{Q: []api.Question{}, An: []api.RR{}}) {
+	if !wire.Same(wire.Message{}, wire.Message{Q: []api.Question{}, An: []api.RR{}}) {
 		t.Error("of none")
 	}
 }
 
 // random makes a message that may be.
-func random(r *rand.Rand) Message {
+func random(r *rand.Rand) wire.Message {
 	some := func() string {
 		var l []string
 		for range r.Intn(5) {
@@ -295,8 +315,8 @@ func random(r *rand.Rand) Message {
 		}
 		return rr(n, api.A, 7, addr)
 	}
-	m := Message{}
-	m.Header, _ = Unflag(r.Intn(65536), r.Intn(65536))
+	m := wire.Message{}
+	m.Header, _ = wire.Unflag(r.Intn(65536), r.Intn(65536))
 	for range r.Intn(3) {
 		m.Q = append(m.Q, api.Question{Name: some(), Type: r.Intn(65536), Class: r.Intn(65536)})
 	}
@@ -315,12 +335,12 @@ func TestDecodeOfEncode(t *testing.T) { // P5.5
 	r := rand.New(rand.NewSource(5))
 	for range 2000 {
 		m := random(r)
-		b, e := Encode(m, api.MaxMsg)
+		b, e := wire.Encode(m, api.MaxMsg)
 		if e != api.OK {
 			t.Fatalf("%v: %d", m, e)
 		}
-		g, e := Decode(b)
-		if e != api.OK || !Same(g, m) {
+		g, e := wire.Decode(b)
+		if e != api.OK || !wire.Same(g, m) {
 			t.Fatalf("%v: %v, %d", m, g, e)
 		}
 		for range 20 {
@@ -331,19 +351,19 @@ func TestDecodeOfEncode(t *testing.T) { // P5.5
 			if r.Intn(4) == 0 {
 				c = c[:r.Intn(len(c))]
 			}
-			g, e := Decode(c)
-			if e == api.OK && !May(g) || e != api.OK && !Same(g, Message{}) {
+			g, e := wire.Decode(c)
+			if e == api.OK && !wire.May(g) || e != api.OK && !wire.Same(g, wire.Message{}) {
 				t.Fatalf("%x: %v, %d", c, g, e)
 			}
 			if e == api.OK {
-				again, e := Encode(g, api.MaxMsg)
-				if back, f := Decode(again); e == api.OK && (f != api.OK || !Same(back, g)) {
+				again, e := wire.Encode(g, api.MaxMsg)
+				if back, f := wire.Decode(again); e == api.OK && (f != api.OK || !wire.Same(back, g)) {
 					t.Fatalf("%x: %v, %d", c, back, f)
 				}
 			}
 		}
 		for cut := range b {
-			if _, e := Decode(b[:cut]); e != api.ErrShort {
+			if _, e := wire.Decode(b[:cut]); e != api.ErrShort {
 				t.Fatalf("%x cut at %d: %d", b, cut, e)
 			}
 		}
@@ -354,7 +374,7 @@ func TestListsAreNew(t *testing.T) { // P5.4
 	x, y := rr(www, api.A, 1, addr), rr(al, api.A, 2, addr)
 	room := make([]api.RR, 1, 9)
 	room[0] = x
-	m := Message{An: room}
+	m := wire.Message{An: room}
 	m.Add(1, y)
 	if z := room[:2][1]; z != (api.RR{}) {
 		t.Errorf("what lies behind was written: %v", z)
@@ -365,19 +385,19 @@ func TestListsAreNew(t *testing.T) { // P5.4
 	all := m.All()
 	all[0] = y
 	q := []api.Question{{Name: com}}
-	a := Ask(1, q...)
+	a := wire.Ask(1, q...)
 	q[0].Name = al
 	if m.Ns[0] != x || m.An[0] != x || a.Q[0].Name != com {
 		t.Errorf("%v, %v", m, a)
 	}
-	b, _ := Encode(m, 512)
-	g, _ := Decode(b)
+	b, _ := wire.Encode(m, 512)
+	g, _ := wire.Decode(b)
 	_ = append(g.An, y, y, y)
 	_ = append(g.Ns, y, y, y)
 	for i := range b {
 		b[i] = 0xff
 	}
-	if !Same(g, m) {
+	if !wire.Same(g, m) {
 		t.Errorf("%v", g)
 	}
 }

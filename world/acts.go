@@ -89,7 +89,6 @@ func (w *World) restart(a Act) bool {
 	if w.start() != api.OK {
 		return false
 	}
-	w.out = nil
 	if a.Flag && a.N >= 0 && a.N <= api.MaxTime {
 		w.now = a.N
 	}

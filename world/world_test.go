@@ -1,4 +1,4 @@
-package world
+package world_test
 
 import (
 	"fmt"
@@ -17,6 +17,7 @@ import (
 	"rhizome/sets"
 	"rhizome/slots"
 	"rhizome/wire"
+	"rhizome/world"
 	"rhizome/zone"
 )
 
@@ -62,8 +63,8 @@ func comZone(t *testing.T) *zone.Zone {
 func hints() []sets.Set { return sets.Group(ns(".", "a."), a("a.", 1)) }
 
 // begun is a world with a server of the root (which is the master, too) and one of com.
-func begun(t *testing.T) *World {
-	w, e := New(40, 5, 100, hints(), h(1))
+func begun(t *testing.T) *world.World {
+	w, e := world.New(40, 5, 100, hints(), h(1))
 	if e != api.OK {
 		t.Fatal(e)
 	}
@@ -73,14 +74,14 @@ func begun(t *testing.T) *World {
 	return w
 }
 
-func serve(addr string, l ...*zone.Zone) Act {
-	return Act{Kind: Serve, Server: Server{Addr: addr, Zones: l}}
+func serve(addr string, l ...*zone.Zone) world.Act {
+	return world.Act{Kind: world.Serve, Server: world.Server{Addr: addr, Zones: l}}
 }
 
-func query(id int, text string, kind int) Act {
+func query(id int, text string, kind int) world.Act {
 	m := wire.Ask(id, api.Question{Name: n(text), Type: kind, Class: api.IN})
 	b, _ := wire.Encode(m, api.MaxMsg)
-	return Act{Kind: Query, From: "c", Bytes: b}
+	return world.Act{Kind: world.Query, From: "c", Bytes: b}
 }
 
 func kinds(l []resolver.Out) []int {
@@ -92,7 +93,7 @@ func kinds(l []resolver.Out) []int {
 }
 
 // told tells who was told what, in short.
-func told(t *testing.T, w *World) []string {
+func told(t *testing.T, w *world.World) []string {
 	var all []string
 	for _, x := range w.Told() {
 		m, e := wire.Decode(x.Bytes)
@@ -104,12 +105,19 @@ func told(t *testing.T, w *World) []string {
 	return all
 }
 
+func TestKinds(t *testing.T) {
+	got := [...]int{world.Query, world.Deliver, world.Lose, world.Raw, world.Tick, world.Serve, world.Fall, world.Start, world.Plan, world.Forge}
+	if got != [...]int{1, 2, 3, 4, 5, 6, 7, 8, 9, 10} {
+		t.Errorf("%v", got)
+	}
+}
+
 func TestNew(t *testing.T) { // P24.1
 	for i, c := range []struct {
 		sectors, seed, most int
 		e                   api.Errno
 	}{{3, 0, 1, api.OK}, {2048, math.MaxInt, 2000, api.OK}, {2, 0, 1, api.ErrRange}, {2049, -1, 1, api.ErrRange}, {3, -1, 1, api.ErrRange}, {3, 0, 0, api.ErrRange}, {3, 0, 2001, api.ErrRange}} {
-		w, e := New(c.sectors, c.seed, c.most, nil)
+		w, e := world.New(c.sectors, c.seed, c.most, nil)
 		if e != c.e || (w == nil) != (e != api.OK) {
 			t.Errorf("case %d: %d", i, e)
 		}
@@ -117,7 +125,7 @@ func TestNew(t *testing.T) { // P24.1
 			t.Errorf("case %d", i)
 		}
 	}
-	w, _ := New(3, 0, 9, nil)
+	w, _ := world.New(3, 0, 9, nil)
 	if !w.Do(query(1, "x.", 1)) || !slices.Equal(told(t, w), []string{"0 0 c 1 2 0"}) {
 		t.Errorf("the example: %v", told(t, w))
 	}
@@ -129,42 +137,42 @@ func TestQueryAndDeliver(t *testing.T) { // P24.1, P24.2
 		t.Fatalf("%v", w.Out())
 	}
 	for _, k := range []int{1, -1, math.MaxInt, math.MinInt} {
-		if w.Do(Act{Kind: Deliver, K: k}) || w.Do(Act{Kind: Lose, K: k}) || w.Do(Act{Kind: Raw, K: k}) || len(w.Out()) != 1 {
+		if w.Do(world.Act{Kind: world.Deliver, K: k}) || w.Do(world.Act{Kind: world.Lose, K: k}) || w.Do(world.Act{Kind: world.Raw, K: k}) || len(w.Out()) != 1 {
 			t.Errorf("%d", k)
 		}
 	}
-	if !w.Do(Act{Kind: Deliver}) || len(w.Out()) != 1 || w.Out()[0].To != h(2) {
+	if !w.Do(world.Act{Kind: world.Deliver}) || len(w.Out()) != 1 || w.Out()[0].To != h(2) {
 		t.Fatalf("%v", w.Out())
 	}
-	if !w.Do(Act{Kind: Deliver, Flag: true}) || !slices.Equal(kinds(w.Out()), []int{resolver.AskTCP}) {
+	if !w.Do(world.Act{Kind: world.Deliver, Flag: true}) || !slices.Equal(kinds(w.Out()), []int{resolver.AskTCP}) {
 		t.Fatalf("cut off: %v", w.Out())
 	}
-	if !w.Do(Act{Kind: Deliver, Flag: true}) || len(w.Out()) != 0 || !slices.Equal(told(t, w), []string{"17 0 c 1 0 1"}) {
+	if !w.Do(world.Act{Kind: world.Deliver, Flag: true}) || len(w.Out()) != 0 || !slices.Equal(told(t, w), []string{"17 0 c 1 0 1"}) {
 		t.Fatalf("%v", told(t, w))
 	}
 	// TCP of a client; one of which no server is; one that is lost.
 	tcp := query(2, "none.com.", 1)
 	tcp.Flag, tcp.From = true, "d"
-	if w.Do(tcp); !w.Do(Act{Kind: Lose}) || w.Do(Act{Kind: Lose}) || len(w.Out()) != 0 || w.Resolver().Open() != 1 {
+	if w.Do(tcp); !w.Do(world.Act{Kind: world.Lose}) || w.Do(world.Act{Kind: world.Lose}) || len(w.Out()) != 0 || w.Resolver().Open() != 1 {
 		t.Error("Lose")
 	}
-	w.Do(Act{Kind: Tick, N: 3})
+	w.Do(world.Act{Kind: world.Tick, N: 3})
 	if l := told(t, w); l[1] != "21 3 d 2 2 0" || !slices.Equal(kinds(w.Out()), []int{resolver.AskMaster}) {
 		t.Errorf("%v", l)
 	}
 	x := begun(t)
-	x.Do(Act{Kind: Serve, Server: Server{Addr: h(1)}})
+	x.Do(world.Act{Kind: world.Serve, Server: world.Server{Addr: h(1)}})
 	x.Do(query(3, "x.", 1))
-	if !x.Do(Act{Kind: Deliver}) || !slices.Equal(told(t, x), []string{"4 0 c 3 2 0"}) {
+	if !x.Do(world.Act{Kind: world.Deliver}) || !slices.Equal(told(t, x), []string{"4 0 c 3 2 0"}) {
 		t.Errorf("a server without zones: %v", told(t, x))
 	}
-	y, _ := New(40, 5, 100, hints())
+	y, _ := world.New(40, 5, 100, hints())
 	y.Do(query(3, "x.", 1))
-	if !y.Do(Act{Kind: Deliver}) || len(y.Out()) != 0 || len(y.Told()) != 0 || y.Resolver().Open() != 1 {
+	if !y.Do(world.Act{Kind: world.Deliver}) || len(y.Out()) != 0 || len(y.Told()) != 0 || y.Resolver().Open() != 1 {
 		t.Errorf("no server: %v", y.Told())
 	}
 	for _, k := range []int{0, 11, -1, math.MaxInt} {
-		if y.Do(Act{Kind: k}) {
+		if y.Do(world.Act{Kind: k}) {
 			t.Errorf("kind %d", k)
 		}
 	}
@@ -173,16 +181,16 @@ func TestQueryAndDeliver(t *testing.T) { // P24.1, P24.2
 func TestTick(t *testing.T) { // P24.1
 	w := begun(t)
 	for _, k := range []int{-1, 10001, math.MaxInt, math.MinInt} {
-		if w.Do(Act{Kind: Tick, N: k}) || w.Now() != 0 || len(w.Out()) != 0 {
+		if w.Do(world.Act{Kind: world.Tick, N: k}) || w.Now() != 0 || len(w.Out()) != 0 {
 			t.Errorf("%d", k)
 		}
 	}
-	if !w.Do(Act{Kind: Tick, N: 10000}) || w.Now() != 10000 || !w.Do(Act{Kind: Tick}) || w.Now() != 10000 || len(w.Out()) != 1 {
+	if !w.Do(world.Act{Kind: world.Tick, N: 10000}) || w.Now() != 10000 || !w.Do(world.Act{Kind: world.Tick}) || w.Now() != 10000 || len(w.Out()) != 1 {
 		t.Errorf("%d", w.Now())
 	}
-	w.Do(Act{Kind: Fall})
-	w.Do(Act{Kind: Start, Flag: true, N: api.MaxTime - 5})
-	if w.Do(Act{Kind: Tick, N: 6}) || !w.Do(Act{Kind: Tick, N: 5}) || w.Now() != api.MaxTime {
+	w.Do(world.Act{Kind: world.Fall})
+	w.Do(world.Act{Kind: world.Start, Flag: true, N: api.MaxTime - 5})
+	if w.Do(world.Act{Kind: world.Tick, N: 6}) || !w.Do(world.Act{Kind: world.Tick, N: 5}) || w.Now() != api.MaxTime {
 		t.Errorf("%d", w.Now())
 	}
 }
@@ -190,10 +198,10 @@ func TestTick(t *testing.T) { // P24.1
 func TestMaster(t *testing.T) { // P24.1
 	for _, each := range []int{-5, 0, 1, 3, 40, 100, math.MaxInt, math.MinInt} {
 		w := begun(t)
-		if w.Run(Act{Kind: Tick, N: 1}, Act{Kind: Deliver, Flag: true}) != 2 || !slices.Equal(kinds(w.Out()), []int{resolver.PullMaster}) {
+		if w.Run(world.Act{Kind: world.Tick, N: 1}, world.Act{Kind: world.Deliver, Flag: true}) != 2 || !slices.Equal(kinds(w.Out()), []int{resolver.PullMaster}) {
 			t.Fatalf("%v", w.Out())
 		}
-		if !w.Do(Act{Kind: Deliver, N: each}) || len(w.Out()) != 0 {
+		if !w.Do(world.Act{Kind: world.Deliver, N: each}) || len(w.Out()) != 0 {
 			t.Errorf("%v", w.Out())
 		}
 		if z, ok := w.Resolver().Held(); !ok || z.Soa().Serial != 7 {
@@ -211,13 +219,13 @@ func TestMaster(t *testing.T) { // P24.1
 	long := made(t, ".", 7, append(big, ns(".", "a."))...)
 	for i, l := range [][]*zone.Zone{nil, {nil, comZone(t)}, {long}} {
 		w := begun(t)
-		w.Run(Act{Kind: Tick, N: 1}, Act{Kind: Deliver}, serve(h(1), l...))
-		if !w.Do(Act{Kind: Deliver, N: 50}) || w.Resolver().Phase != 0 || w.Resolver().Next != 6 {
+		w.Run(world.Act{Kind: world.Tick, N: 1}, world.Act{Kind: world.Deliver}, serve(h(1), l...))
+		if !w.Do(world.Act{Kind: world.Deliver, N: 50}) || w.Resolver().Phase != 0 || w.Resolver().Next != 6 {
 			t.Errorf("case %d: %v", i, w.Resolver().Plan)
 		}
 	}
 	w := begun(t)
-	w.Run(Act{Kind: Tick, N: 1}, serve(h(1), nil, comZone(t), rootZone(t, 8), rootZone(t, 9)), Act{Kind: Deliver}, Act{Kind: Deliver, N: 2})
+	w.Run(world.Act{Kind: world.Tick, N: 1}, serve(h(1), nil, comZone(t), rootZone(t, 8), rootZone(t, 9)), world.Act{Kind: world.Deliver}, world.Act{Kind: world.Deliver, N: 2})
 	if z, ok := w.Resolver().Held(); !ok || z.Soa().Serial != 8 {
 		t.Error("the first zone of that apex")
 	}
@@ -230,10 +238,10 @@ func TestRawAndForge(t *testing.T) { // P24.1
 	m, _ := wire.Decode(o.Bytes)
 	m.QR, m.AA, m.Rcode = true, true, 3
 	b, _ := wire.Encode(m, 512)
-	if !w.Do(Act{Kind: Raw, Bytes: b[:20]}) || len(w.Told()) != 0 || !w.Do(Act{Kind: Raw, Bytes: b}) || len(w.Out()) != 1 || !slices.Equal(told(t, w), []string{"4 0 c 1 3 0"}) {
+	if !w.Do(world.Act{Kind: world.Raw, Bytes: b[:20]}) || len(w.Told()) != 0 || !w.Do(world.Act{Kind: world.Raw, Bytes: b}) || len(w.Out()) != 1 || !slices.Equal(told(t, w), []string{"4 0 c 1 3 0"}) {
 		t.Errorf("%v", told(t, w))
 	}
-	if !w.Do(Act{Kind: Deliver}) || len(w.Told()) != 1 {
+	if !w.Do(world.Act{Kind: world.Deliver}) || len(w.Told()) != 1 {
 		t.Error("one that is answered already")
 	}
 	w.Do(query(2, "y.", 1))
@@ -241,36 +249,39 @@ func TestRawAndForge(t *testing.T) { // P24.1
 	m, _ = wire.Decode(o.Bytes)
 	m.QR, m.AA, m.Rcode = true, true, 3
 	b, _ = wire.Encode(m, 512)
-	for _, x := range []Act{{N: -1, K: o.Port, From: o.To}, {N: m.ID, K: -1, From: o.To}, {N: math.MinInt}} {
-		x.Kind, x.Bytes = Forge, b
+	for _, x := range []world.Act{{N: -1, K: o.Port, From: o.To}, {N: m.ID, K: -1, From: o.To}, {N: math.MinInt}} {
+		x.Kind, x.Bytes = world.Forge, b
 		if w.Do(x) || len(w.Told()) != 1 {
 			t.Errorf("%v", x)
 		}
 	}
-	for _, x := range []Act{{N: m.ID + 1, K: o.Port, From: o.To}, {N: m.ID, K: o.Port + 1, From: o.To}, {N: m.ID, K: o.Port, From: "z"}, {N: m.ID, K: o.Port, From: o.To, Flag: true}, {N: math.MaxInt, K: math.MaxInt}} {
-		x.Kind, x.Bytes = Forge, b
+	if !w.Do(world.Act{Kind: world.Forge}) || len(w.Told()) != 1 {
+		t.Error("an ID and a port of 0 may be forged")
+	}
+	for _, x := range []world.Act{{N: m.ID + 1, K: o.Port, From: o.To}, {N: m.ID, K: o.Port + 1, From: o.To}, {N: m.ID, K: o.Port, From: "z"}, {N: m.ID, K: o.Port, From: o.To, Flag: true}, {N: math.MaxInt, K: math.MaxInt}} {
+		x.Kind, x.Bytes = world.Forge, b
 		if !w.Do(x) || len(w.Told()) != 1 {
 			t.Errorf("%v", x)
 		}
 	}
-	if !w.Do(Act{Kind: Forge, N: m.ID, K: o.Port, From: o.To, Bytes: b}) || len(w.Told()) != 2 {
+	if !w.Do(world.Act{Kind: world.Forge, N: m.ID, K: o.Port, From: o.To, Bytes: b}) || len(w.Told()) != 2 {
 		t.Error("Forge of what fits")
 	}
 	// A master's answer, and its stream, by hand.
 	w = begun(t)
-	w.Do(Act{Kind: Tick, N: 1})
+	w.Do(world.Act{Kind: world.Tick, N: 1})
 	m, _ = wire.Decode(w.Out()[0].Bytes)
 	b, _ = wire.Encode(auth.Message(m.ID, m.Q[0], auth.Answer(rootZone(t, 7), m.Q[0])), 512)
-	if !w.Do(Act{Kind: Raw, Bytes: b}) || !slices.Equal(kinds(w.Out()), []int{resolver.AskMaster, resolver.PullMaster}) {
+	if !w.Do(world.Act{Kind: world.Raw, Bytes: b}) || !slices.Equal(kinds(w.Out()), []int{resolver.AskMaster, resolver.PullMaster}) {
 		t.Errorf("%v", w.Out())
 	}
-	if !w.Do(Act{Kind: Raw, K: 1, Bytes: []byte{0, 0}}) || w.Resolver().Phase != 0 || len(w.Out()) != 2 {
+	if !w.Do(world.Act{Kind: world.Raw, K: 1, Bytes: []byte{0, 0}}) || w.Resolver().Phase != 0 || len(w.Out()) != 2 {
 		t.Errorf("%v", w.Resolver().Plan)
 	}
 }
 
 func TestServe(t *testing.T) { // P24.1
-	w, _ := New(40, 5, 100, hints())
+	w, _ := world.New(40, 5, 100, hints())
 	for i := range 20 {
 		if !w.Do(serve(h(i + 2))) {
 			t.Errorf("%d", i)
@@ -280,14 +291,14 @@ func TestServe(t *testing.T) { // P24.1
 		t.Error("more than 20")
 	}
 	l := []*zone.Zone{rootZone(t, 7)}
-	x, _ := New(40, 5, 100, hints())
+	x, _ := world.New(40, 5, 100, hints())
 	x.Do(serve(h(1), l...))
 	l[0] = nil
-	x.Run(query(1, "none.", 1), Act{Kind: Deliver})
+	x.Run(query(1, "none.", 1), world.Act{Kind: world.Deliver})
 	if !slices.Equal(told(t, x), []string{"2 0 c 1 3 0"}) {
 		t.Errorf("a list that was handed in is kept: %v", told(t, x))
 	}
-	x.Do(Act{Kind: Fall})
+	x.Do(world.Act{Kind: world.Fall})
 	if !x.Do(serve(h(1), comZone(t))) {
 		t.Error("without a resolver")
 	}
@@ -295,20 +306,20 @@ func TestServe(t *testing.T) { // P24.1
 
 func TestFallAndStart(t *testing.T) { // P24.1, P24.4
 	w := begun(t)
-	w.Run(Act{Kind: Tick, N: 1}, Act{Kind: Deliver}, Act{Kind: Deliver, N: 2}, query(1, "www.com.", 1))
-	if len(w.Out()) != 1 || w.Do(Act{Kind: Start}) {
+	w.Run(world.Act{Kind: world.Tick, N: 1}, world.Act{Kind: world.Deliver}, world.Act{Kind: world.Deliver, N: 2}, query(1, "www.com.", 1))
+	if len(w.Out()) != 1 || w.Do(world.Act{Kind: world.Start}) {
 		t.Fatalf("%v", w.Out())
 	}
-	if !w.Do(Act{Kind: Fall, Bytes: []byte{255}}) || w.Resolver() != nil || w.Disk().Up() || len(w.Out()) != 0 {
+	if !w.Do(world.Act{Kind: world.Fall, Bytes: []byte{255}}) || w.Resolver() != nil || w.Disk().Up() || len(w.Out()) != 0 {
 		t.Error("Fall")
 	}
 	for k := range 12 {
-		want := k == Serve || k == Plan
-		if k != Start && w.Do(Act{Kind: k, Server: Server{Addr: "s"}}) != want {
+		want := k == world.Serve || k == world.Plan
+		if k != world.Start && w.Do(world.Act{Kind: k, Server: world.Server{Addr: "s"}}) != want {
 			t.Errorf("kind %d without a resolver", k)
 		}
 	}
-	if !w.Do(Act{Kind: Start}) || w.Resolver() == nil || !w.Disk().Up() || w.Now() != 1 || w.Resolver().Open() != 0 {
+	if !w.Do(world.Act{Kind: world.Start}) || w.Resolver() == nil || !w.Disk().Up() || w.Now() != 1 || w.Resolver().Open() != 0 {
 		t.Error("Start")
 	}
 	if z, ok := w.Resolver().Held(); !ok || z.Soa().Serial != 7 || w.Resolver().Plan.Time != 1 {
@@ -319,8 +330,8 @@ func TestFallAndStart(t *testing.T) { // P24.1, P24.4
 		flag bool
 		want int
 	}{{9, true, 9}, {7, false, 9}, {-1, true, 9}, {api.MaxTime + 1, true, 9}, {api.MaxTime, true, api.MaxTime}, {0, true, 0}} {
-		w.Do(Act{Kind: Fall})
-		if !w.Do(Act{Kind: Start, N: c.n, Flag: c.flag}) || w.Now() != c.want {
+		w.Do(world.Act{Kind: world.Fall})
+		if !w.Do(world.Act{Kind: world.Start, N: c.n, Flag: c.flag}) || w.Now() != c.want {
 			t.Errorf("case %d: %d", i, w.Now())
 		}
 	}
@@ -330,8 +341,8 @@ func TestPlannedFalls(t *testing.T) { // P24.1, P24.4
 	for at := 1; at <= 4; at++ {
 		for _, mask := range []byte{0, 1, 2, 3, 255} {
 			w := begun(t)
-			w.Run(Act{Kind: Tick, N: 1}, Act{Kind: Deliver}, Act{Kind: Deliver, N: 2}, serve(h(1), rootZone(t, 8)), Act{Kind: Tick, N: 100}, Act{Kind: Deliver})
-			if !w.Do(Act{Kind: Plan, N: at, Bytes: []byte{mask}}) || !w.Do(Act{Kind: Deliver, N: 2}) {
+			w.Run(world.Act{Kind: world.Tick, N: 1}, world.Act{Kind: world.Deliver}, world.Act{Kind: world.Deliver, N: 2}, serve(h(1), rootZone(t, 8)), world.Act{Kind: world.Tick, N: 100}, world.Act{Kind: world.Deliver})
+			if !w.Do(world.Act{Kind: world.Plan, N: at, Bytes: []byte{mask}}) || !w.Do(world.Act{Kind: world.Deliver, N: 2}) {
 				t.Fatal("Plan")
 			}
 			if fell := !w.Disk().Up(); fell != (w.Resolver() == nil) || fell && len(w.Out()) != 0 {
@@ -339,9 +350,9 @@ func TestPlannedFalls(t *testing.T) { // P24.1, P24.4
 			}
 			fell := w.Resolver() == nil
 			if !fell {
-				w.Do(Act{Kind: Fall, Bytes: []byte{mask}})
+				w.Do(world.Act{Kind: world.Fall, Bytes: []byte{mask}})
 			}
-			w.Do(Act{Kind: Start})
+			w.Do(world.Act{Kind: world.Start})
 			z, ok := w.Resolver().Held()
 			if !ok || md.Check("\x00", z.Records()...) != api.OK || z.Soa().Serial != 8 && (z.Soa().Serial != 7 || !fell) {
 				t.Errorf("at %d, mask %d", at, mask)
@@ -359,7 +370,7 @@ func TestMostOut(t *testing.T) { // what is out
 	for i := range 30 {
 		l = append(l, a("a.", i+1))
 	}
-	w, _ := New(40, 5, 100, sets.Group(append(l, ns(".", "a."))...))
+	w, _ := world.New(40, 5, 100, sets.Group(append(l, ns(".", "a."))...))
 	for i := range api.MaxJobs {
 		w.Do(query(i, "x.", 1000+i))
 	}
@@ -368,7 +379,7 @@ func TestMostOut(t *testing.T) { // what is out
 		for _, o := range w.Out()[max(len(w.Out())-api.MaxJobs, 0):] {
 			all = append(all, string(o.Bytes))
 		}
-		w.Do(Act{Kind: Tick, N: 3})
+		w.Do(world.Act{Kind: world.Tick, N: 3})
 	}
 	for _, o := range w.Out()[len(w.Out())-api.MaxJobs:] {
 		all = append(all, string(o.Bytes))
@@ -386,7 +397,7 @@ func TestMostOut(t *testing.T) { // what is out
 
 func TestRun(t *testing.T) { // P24.2
 	w := begun(t)
-	l := slices.Repeat([]Act{{Kind: Tick, N: 1}, {Kind: 99}}, 300)
+	l := slices.Repeat([]world.Act{{Kind: world.Tick, N: 1}, {Kind: 99}}, 300)
 	if n := w.Run(l...); n != 250 || w.Now() != 250 {
 		t.Errorf("%d, %d", n, w.Now())
 	}
@@ -406,16 +417,16 @@ func TestBest(t *testing.T) { // P24.1
 		want *zone.Zone
 	}{
 		{"www.com.", api.A, []*zone.Zone{top, nil, com, sub}, com}, {"www.x.com.", api.A, []*zone.Zone{top, com, sub}, sub}, {"www.x.com.", api.A, []*zone.Zone{sub, com, top}, sub}, {"net.", api.A, []*zone.Zone{com, top}, top}, {"net.", api.A, []*zone.Zone{com, sub}, nil},
-		{"com.", api.A, []*zone.Zone{com, other}, com}, {"com.", api.A, []*zone.Zone{other, com}, other}, {"com.", api.DS, []*zone.Zone{com, top}, top}, {"com.", api.DS, []*zone.Zone{other, nil}, other}, {"www.com.", api.DS, []*zone.Zone{top, other}, other}, {"x.com.", api.DS, []*zone.Zone{sub, top, com}, com},
+		{"com.", api.A, []*zone.Zone{com, other}, com}, {"com.", api.A, []*zone.Zone{top, com}, com}, {"com.", api.NS, []*zone.Zone{com, top}, com}, {"com.", api.A, []*zone.Zone{other, com}, other}, {"com.", api.DS, []*zone.Zone{com, top}, top}, {"com.", api.DS, []*zone.Zone{other, nil}, other}, {"www.com.", api.DS, []*zone.Zone{top, other}, other}, {"x.com.", api.DS, []*zone.Zone{sub, top, com}, com},
 		{".", api.DS, []*zone.Zone{top}, top}, {"www.com.", api.A, nil, nil}, {"www.com.", api.A, []*zone.Zone{nil, nil}, nil},
 	} {
 		q := api.Question{Name: n(c.text), Type: c.kind, Class: 1}
-		got, want := auth.Message(1, q, Best(q, c.l...)), auth.Message(1, q, auth.Answer(c.want, q))
+		got, want := auth.Message(1, q, world.Best(q, c.l...)), auth.Message(1, q, auth.Answer(c.want, q))
 		if !wire.Same(got, want) {
 			t.Errorf("case %d: %v, not %v", i, got, want)
 		}
 	}
-	if r := Best(api.Question{Name: "x", Type: 1, Class: 1}, top); r.Kind != auth.Outside || r.Rcode != api.Refused {
+	if r := world.Best(api.Question{Name: "x", Type: 1, Class: 1}, top); r.Kind != auth.Outside || r.Rcode != api.Refused {
 		t.Errorf("%v", r)
 	}
 }
@@ -433,22 +444,22 @@ func TestWholeHoldsInEachWorld(t *testing.T) { // P24.4
 				w.Do(query(id, []string{"www.com.", "none.", "x.com.", "."}[rnd.Intn(4)], 1+rnd.Intn(2)))
 				open[fmt.Sprint(id)]++
 			case k < 12:
-				w.Do(Act{Kind: Deliver, K: rnd.Intn(3), N: rnd.Intn(60), Flag: rnd.Intn(5) == 0})
+				w.Do(world.Act{Kind: world.Deliver, K: rnd.Intn(3), N: rnd.Intn(60), Flag: rnd.Intn(5) == 0})
 			case k < 13:
-				w.Do(Act{Kind: Lose, K: rnd.Intn(3)})
+				w.Do(world.Act{Kind: world.Lose, K: rnd.Intn(3)})
 			case k < 17:
-				w.Do(Act{Kind: Tick, N: rnd.Intn(60)})
+				w.Do(world.Act{Kind: world.Tick, N: rnd.Intn(60)})
 			case k == 17:
 				serial++
 				w.Do(serve(h(1), rootZone(t, serial)))
 			case k == 18:
-				w.Do(Act{Kind: Plan, N: rnd.Intn(6), Bytes: []byte{byte(rnd.Intn(256))}})
+				w.Do(world.Act{Kind: world.Plan, N: rnd.Intn(6), Bytes: []byte{byte(rnd.Intn(256))}})
 			case k == 19 && rnd.Intn(4) == 0:
-				w.Do(Act{Kind: Fall, Bytes: []byte{byte(rnd.Intn(256))}})
+				w.Do(world.Act{Kind: world.Fall, Bytes: []byte{byte(rnd.Intn(256))}})
 			}
 			r := w.Resolver()
 			if r == nil {
-				if w.Do(Act{Kind: Start}); w.Resolver() == nil {
+				if w.Do(world.Act{Kind: world.Start}); w.Resolver() == nil {
 					t.Fatal("Start")
 				}
 				r = w.Resolver()
@@ -479,12 +490,12 @@ func TestWholeHoldsInEachWorld(t *testing.T) { // P24.4
 
 func TestListsAreNew(t *testing.T) { // P24.3
 	l, masters := hints(), []string{h(1)}
-	w, _ := New(40, 5, 100, l, masters...)
+	w, _ := world.New(40, 5, 100, l, masters...)
 	for i := range l {
 		l[i].Data[0] = "!"
 	}
 	masters[0] = "!"
-	w.Run(Act{Kind: Fall}, Act{Kind: Start}, query(1, "x.", 1), Act{Kind: Tick}, query(2, "x.", api.ANY))
+	w.Run(world.Act{Kind: world.Fall}, world.Act{Kind: world.Start}, query(1, "x.", 1), world.Act{Kind: world.Tick}, query(2, "x.", api.ANY))
 	out := w.Out()
 	if len(out) != 2 || out[0].To != h(1) || out[1].To != h(1) {
 		t.Fatalf("%v", out)
@@ -493,7 +504,7 @@ func TestListsAreNew(t *testing.T) { // P24.3
 	out[0].Bytes[0]++
 	out[1].To = "!"
 	x[0].Bytes[0]++
-	_ = append(x, Told{})
+	_ = append(x, world.Told{})
 	if o := w.Out(); o[0].Bytes[0] == out[0].Bytes[0] || o[1].To != h(1) || w.Told()[0].Bytes[0] == x[0].Bytes[0] {
 		t.Error("what is handed out is its own")
 	}
