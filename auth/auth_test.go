@@ -113,7 +113,7 @@ func TestGlue(t *testing.T) { // P11.2
 		t.Errorf("%v", keys)
 	}
 	alias := sets.Set{Key: key(ex, api.CNAME), Data: []string{at("ns")}}
-	if len(auth.Glue(z)) != 0 || len(auth.Glue(z, mx, alias)) != 0 {
+	if len(auth.Glue(z)) != 0 || len(auth.Glue(nil, x)) != 0 || len(auth.Glue(z, mx, alias)) != 0 {
 		t.Error("of none")
 	}
 }

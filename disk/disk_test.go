@@ -277,13 +277,14 @@ func TestCopy(t *testing.T) { // P13.4
 	// What is pending, and the mask of a plan, are no longer shared.
 	d.Crash()
 	d.Reboot()
+	d.Write(0, []byte("0"))
 	d.Write(0, []byte("1"))
 	d.Write(1, []byte("1"))
 	one, two := d.Copy(), d.Copy()
 	one.Write(0, []byte("2"))
 	two.Write(1, []byte("3"))
 	for _, x := range []*disk.Disk{d, one, two} {
-		x.Crash(7)
+		x.Crash(15)
 		x.Reboot()
 	}
 	if first(t, d)[:2] != "11" || first(t, one)[:2] != "21" || first(t, two)[:2] != "13" {

@@ -151,6 +151,9 @@ func TestMatch(t *testing.T) { // P20.2, P20.5
 	if x, ok := b.Match(w.Mark, m); ok || x != (table.Wait{}) {
 		t.Errorf("twice: %v", x)
 	}
+	if x, ok := b.Match(v.Mark, answer(v)); !ok || x != v || b.Len() != 0 {
+		t.Errorf("the first one: %v", x)
+	}
 }
 
 func TestExpireAndDrop(t *testing.T) { // P20.3

@@ -397,7 +397,7 @@ func TestMostOut(t *testing.T) { // what is out
 
 func TestRun(t *testing.T) { // P24.2
 	w := begun(t)
-	l := slices.Repeat([]world.Act{{Kind: world.Tick, N: 1}, {Kind: 99}}, 300)
+	l := slices.Repeat([]world.Act{{Kind: 99}, {Kind: world.Tick, N: 1}}, 300)
 	if n := w.Run(l...); n != 250 || w.Now() != 250 {
 		t.Errorf("%d, %d", n, w.Now())
 	}
