@@ -186,7 +186,7 @@ func TestLine(t *testing.T) { // P25.4
 		l    []sets.Set
 		want string
 	}{
-		{q, nil, "www.com. 1"}, {q, []sets.Set{s, {}, {Key: sets.Key{Type: -3}, Data: []string{"a"}}}, "www.com. 1 28:01ff 28: -3:61"}, {api.Question{Name: "", Type: -7}, nil, "? -7"}, {api.Question{Name: root}, nil, ". 0"}, {api.Question{Name: "\x01A\x00"}, []sets.Set{s}, "? 0 28:01ff 28:"},
+		{q, nil, "www.com. 1"}, {api.Question{Name: root, Type: 257}, []sets.Set{{Key: sets.Key{Type: 65535}, Data: []string{"\x10"}}}, ". 257 65535:10"}, {q, []sets.Set{s, {}, {Key: sets.Key{Type: -3}, Data: []string{"a"}}}, "www.com. 1 28:01ff 28: -3:61"}, {api.Question{Name: "", Type: -7}, nil, "? -7"}, {api.Question{Name: root}, nil, ". 0"}, {api.Question{Name: "\x01A\x00"}, []sets.Set{s}, "? 0 28:01ff 28:"},
 	} {
 		if got := script.Line(c.q, c.l...); got != c.want {
 			t.Errorf("%q, not %q", got, c.want)

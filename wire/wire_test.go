@@ -255,6 +255,9 @@ func TestDecodeOfLongNamesAndMessages(t *testing.T) { // P5.3
 	if e != api.OK || m.Q[0].Name != long || len(long) != 255 {
 		t.Errorf("%d", e)
 	}
+	if m, e := wire.Decode(message(1, 0, 0, 0, strings.Repeat("\x01a", 126)+"\x02aa\x00"+"\x00\x01\x00\x01")); e != api.ErrForm || !wire.Same(m, wire.Message{}) {
+		t.Errorf("256 bytes: %d", e)
+	}
 	// More than MaxMsg bytes that would else be a message.
 	record := "\x00\x00\x63\x00\x01\x00\x00\x00\x05\x03\xe8" + strings.Repeat("d", 1000)
 	if _, e := wire.Decode(message(0, 15, 0, 0, strings.Repeat(record, 15))); e != api.OK {
